@@ -64,6 +64,13 @@ def need_name(value, part):
         raise BadName(part)
 
 
+def need_unlike_names(value, part):
+    if not is_list(value) or not all([is_name(name) for name in value]):
+        raise BadName(part)
+    if len({name: True for name in value}) != len(value):
+        raise BadName(part)
+
+
 def need_setting(value, part):
     """The setting as a dict."""
     setting = setting_of(value)

@@ -8,73 +8,31 @@ the step below x on, but below x, so x is the least number above this mark that 
 Going up it is likewise.
 """
 
-from claimduel.marks import mark_in, marks_in, period_in
+from claimduel.marks import marks_in, period_in
 from claimduel.rests import rest_of_both
-from claimduel.shapes import COMPARISONS, NO, YES, rebuilt
-from claimduel.sums import factor_in, form_put
+from claimduel.seeking import some_number
+from claimduel.shapes import NO, YES, free_names
+from claimduel.spreads import by_rest, far_out, inner_of, marks_by, settle
+from claimduel.striking import SIDES
+from claimduel.sums import factor_in
 from claimduel.thinning import settled_whole
 
 OPPOSITE = {"left": "right", "right": "left"}
 
 
-def literals_of(claim):
-    """The literals of a spread claim."""
-    found = []
-    waiting = [claim]
-    while waiting:
-        here = waiting.pop()
-        if here[0] in ("and", "or"):
-            waiting.extend(here[1:])
-        else:
-            found.append(here)
-    return found
-
-
-def is_far(comparison, factor, side):
-    """Whether a comparison is so far to a side, by the factor of the name, which is not 0."""
-    return comparison[0] == "below" and (factor > 0) == (side == "left")
-
-
-def literal_at(literal, name, rest, side):
-    """The literal where the name leaves the rest by the period; far to a side if one is told."""
-    if literal[0] == "not":
-        return ("not", literal_at(literal[1], name, rest, side))
-    if literal[0] == "rests":
-        return rebuilt(literal, form_put(literal[2], name, (rest, ())), ())
-    if side is None or literal[0] not in COMPARISONS or factor_in(literal[1], name) == 0:
-        return literal
-    return YES if is_far(literal, factor_in(literal[1], name), side) else NO
-
-
-def claim_at(claim, name, rest, side):
-    """A spread claim where the name leaves the rest by the period; far to a side if one is told."""
-    if claim[0] not in ("and", "or"):
-        return literal_at(claim, name, rest, side)
-    parts = []
-    for part in claim[1:]:
-        parts.append(claim_at(part, name, rest, side))
-    return rebuilt(claim, None, parts)
-
-
 def turning_marks(claim, name, side):
     """The marks behind which a spread claim without divisions may turn to be so, coming from a side."""
     marks = {}
-    for literal in literals_of(claim):
-        inner = literal[1] if literal[0] == "not" else literal
-        factor = factor_in(inner[1], name) if inner[0] in COMPARISONS else 0
-        if factor != 0 and (literal[0] == "not" or inner[0] == "below"):
-            if literal[0] == "not" or not is_far(inner, factor, side):
-                marks[mark_in(inner[1], name)] = True
+    for literal, mark in marks_by(claim, name):
+        factor = factor_in(inner_of(literal)[1], name)
+        if literal[0] == "not" or (literal[0] == "below" and (factor > 0) != (side == "left")):
+            marks[mark] = True
     return sorted(marks)
 
 
 def marks_met(claim, name):
     """The marks of what a spread claim says is zero."""
-    marks = {}
-    for literal in literals_of(claim):
-        if literal[0] == "zero" and factor_in(literal[1], name) != 0:
-            marks[mark_in(literal[1], name)] = True
-    return sorted(marks)
+    return sorted({mark: True for literal, mark in marks_by(claim, name) if literal[0] == "zero"})
 
 
 def known_rest(claim, name):
@@ -93,9 +51,9 @@ def rows_at(less, name, rest, period):
     """
     marks = marks_in(less, name)
     options = []
-    for side in OPPOSITE:
+    for side in SIDES:
         rows = []
-        far = settled_whole(claim_at(less, name, rest, side))
+        far = settle(far_out(less, name, side))
         if far != NO:
             rows.append((side, rest, period, marks))
         if far == YES:
@@ -110,12 +68,14 @@ def rows_at(less, name, rest, period):
 def rows_of(plain, name):
     """As rows_for, for what is known to be a plain claim of tuples, and a name."""
     claim = settled_whole(plain)
+    if free_names(claim) == (name,):
+        number = some_number(claim, name)
+        return () if number is None else (("at", 1, (number, ())),)
     period = period_in(claim, name)
     start, step = known_rest(claim, name)
     rows = {}
     for rest in range(start, period, step):
-        less = settled_whole(claim_at(claim, name, rest, None))
-        found, is_sure = rows_at(less, name, rest, period)
+        found, is_sure = rows_at(by_rest(claim, name, rest), name, rest, period)
         if is_sure:
             return tuple(found)
         for row in found:

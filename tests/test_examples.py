@@ -4,7 +4,8 @@ import importlib
 import os
 import unittest
 
-MODULES = ("errors", "checks", "papers", "rests", "forms", "claims", "claim_texts", "plain", "marks", "rows")
+MODULES = ("errors", "checks", "papers", "rests", "forms", "claims", "claim_texts", "plain", "marks", "layouts", "rows",
+           "struck", "pieces", "counted", "meaning", "verdicts", "questions", "check_verdicts", "duels")
 
 
 def names_of_all():
