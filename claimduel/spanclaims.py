@@ -101,7 +101,7 @@ def settled_piece(piece, m):
 
 
 def parted(spans):
-    """The long pieces of spans as quadruples, and the short ones ahead of each one and at last, as (low, many, bits)."""
+    """The long pieces of spans, and the short ones ahead of each of them and at last, as triples (low, many, bits)."""
     m = spans[0]
     longs, shorts = [], [(None, 0, 0)]
     for piece in pieces_of(spans):

@@ -26,11 +26,13 @@ def every_nth(m, step, start):
 
 def bits_of(mask):
     """The numbers whose bits are set, ascending."""
-    return [at for at, sign in enumerate(f"{mask:b}"[::-1]) if sign == "1"]
+    signs = f"{mask:b}"
+    return [at for at, sign in enumerate(signs[::-1]) if sign == "1"]
 
 
 def many_bits(mask):
-    return f"{mask:b}".count("1")
+    signs = f"{mask:b}"
+    return signs.count("1")
 
 
 def turned_by(mask, m, start):
@@ -87,7 +89,7 @@ def merged_all(label, rows):
     """As merged, for one or more: by pairs, so that none is gone through again and again."""
     while len(rows) > 1:
         pairs = [rows[at:at + 2] for at in range(0, len(rows), 2)]
-        rows = [merged(label, *pair) if len(pair) == 2 else pair[0] for pair in pairs]
+        rows = [merged(label, pair[0], pair[1]) if len(pair) == 2 else pair[0] for pair in pairs]
     return rows[0]
 
 

@@ -12,6 +12,7 @@ from claimduel.atoms import slim
 from claimduel.marks import mark_in, period_in
 from claimduel.seeking import some_number
 from claimduel.shapes import NO, YES, free_names
+from claimduel.spans import is_endless, spans_of
 from claimduel.spreads import by_rest, changed, far_out, inner_of, joint, marks_by
 from claimduel.spreads import put_fraction, settle, shorter
 from claimduel.sums import factor_in, rest_without
@@ -31,7 +32,7 @@ def points_by(claim, name, side, period):
         elif literal[0] == "not":
             steps = [d * period]
         elif factor_in(literal[1], name) * sign < 0:
-            steps = range(1, d * period + 1)
+            steps = list(range(1, d * period + 1))
         for step in steps:
             points[d, (form[0] + sign * step, form[1])] = True
     return list(points)
@@ -154,6 +155,9 @@ def strike_all(claim, names):
 
 def strike_endless(claim, name):
     """A settled claim that is alike to: for endlessly many numbers of the name this settled claim is so."""
+    spans = spans_of(claim, name) if free_names(claim) == (name,) else None
+    if spans is not None:
+        return YES if is_endless(spans) else NO
     found = []
     for side in SIDES:
         found.extend(far_claims(claim, name, side))

@@ -92,3 +92,78 @@ def lists(value):
 
 def chance(seed):
     return random.Random(seed)
+
+
+def random_literal(chance, names, kinds=("below", "zero", "rests"), ms=(2, 3), factors=(-1, 1), span=9, must=(), two=None):
+    """A comparison or division over some of the names and all that must be in it, or the not of one.
+
+    The name two has 2 or -2 for its factor.
+    """
+    chosen = sorted({*chance.sample(list(names), chance.randint(1, len(names))), *must})
+    pairs = tuple((name, chance.choice((-2, 2) if name == two else factors)) for name in chosen)
+    kind, form = chance.choice(kinds), (chance.randint(-span, span), pairs)
+    literal = (kind, chance.choice(ms), form) if kind == "rests" else (kind, form)
+    return ("not", literal) if chance.random() < 0.4 else literal
+
+
+def random_tree(chance, literals):
+    """A claim of just these literals, joined by "and", "or", "not"."""
+    if len(literals) == 1:
+        return literals[0]
+    literals = chance.sample(literals, len(literals))
+    at = chance.randint(1, len(literals) - 1)
+    claim = (chance.choice(("and", "or")), random_tree(chance, literals[:at]), random_tree(chance, literals[at:]))
+    return ("not", claim) if chance.random() < 0.2 else claim
+
+
+def random_bound(chance, claim, names, labels=("some", "all", "endless", "count")):
+    """The claim with the names bound around it, the last one outermost."""
+    for name in names:
+        label = chance.choice(labels)
+        if label == "count":
+            rows = ((chance.choice((-2, -1, 1, 2)), name, claim),)
+            claim = (label, chance.choice(("below", "zero")), (chance.randint(-4, 4), ()), rows)
+        else:
+            claim = (label, name, claim)
+        claim = ("not", claim) if chance.random() < 0.3 else claim
+    return claim
+
+
+def random_number(chance):
+    """A number near 0, or far away."""
+    return chance.choice((chance.randint(-12, 12), chance.randint(-12, 12), chance.randint(-10 ** 40, 10 ** 40)))
+
+
+def random_setting(chance, names):
+    """Numbers near 0, far away, or near one another far away."""
+    base = chance.choice((0, 0, chance.randint(-10 ** 40, 10 ** 40)))
+    if chance.random() < 0.2:
+        return {name: random_number(chance) for name in names}
+    return {name: base + chance.randint(-12, 12) for name in names}
+
+
+def below(constant, **factors):
+    return ("below", (constant, tuple(sorted(factors.items()))))
+
+
+def zero(constant, **factors):
+    return ("zero", (constant, tuple(sorted(factors.items()))))
+
+
+def rests(m, constant, **factors):
+    return ("rests", m, (constant, tuple(sorted(factors.items()))))
+
+
+def from_to(name, low, high):
+    """The claim that a name is from low to below high."""
+    return ("and", ("not", below(-low, **{name: 1})), below(-high, **{name: 1}))
+
+
+BAD_CLAIMS = [("and", ("yes",)), ("rests", 1, (0, ())), ("some", "x", ("all", "x", ("yes",))), "yes", None, ("yes", ()),
+              ("below", (True, ())), Odd(), [Odd()], {}, ("count", "zero", (0, ()), ())]
+BAD_PLAIN = BAD_CLAIMS + [("some", "x", ("yes",)), ("not", ("endless", "y", ("no",))),
+                          ("count", "zero", (0, ()), ((1, "x", ("yes",)),))]
+BAD_NAMES = [None, True, 1, "", "X", "some", "x y", "1x", "abcdefghi", b"x", ("x",), ["x"], Odd()]
+BAD_SETTINGS = [None, 5, "x", [("x", True)], [("x", 1), ("x", 1)], {"X": 1}, [Odd()], Odd(), ("x", 1), {"x": 1.0},
+                {1: 1}, [("x",)], {"x": None}]
+BAD_NUMBERS = [None, True, False, 1.0, "1", (), [1], Odd()]

@@ -18,9 +18,34 @@ FUNCTIONS = {
     "claim_texts": {"form_text": "form", "claim_text": "claim", "read_form": "text", "read_claim": "text"},
     "plain": {"holds": "plain setting", "thinned": "plain"},
     "marks": {"marks_of": "plain name", "period_of": "plain name"},
+    "layouts": {"right_for": "plain name setting"},
     "rows": {"is_row": "value", "number_by": "row setting", "rows_for": "plain name"},
+    "struck": {"struck": "plain name", "struck_endless": "plain name", "all_struck": "plain names",
+               "far_at": "plain name side rest"},
+    "pieces": {"are_pieces": "value", "pieces_for": "plain name", "many_by": "pieces setting"},
+    "counted": {"counted": "kind form rows"},
+    "meaning": {"plain_of": "claim", "is_so": "claim setting"},
+    "verdicts": {"judged": "claim", "follows": "one other", "alike": "one other"},
+    "questions": {"all_for": "claim name setting", "least_for": "claim name setting", "greatest_for": "claim name setting",
+                  "many_for": "claim name setting", "told_by": "claim name", "without": "claim names",
+                  "between": "one other"},
+    "check_verdicts": {"shows_judged": "claim value", "shows_follows": "one other value", "shows_alike": "one other value",
+                       "shows_told": "claim name value"},
 }
-CLASSES = {"papers": {"Paper": "self word *parts", "Denial": "self word *parts"}}
+CLASSES = {
+    "papers": {"Paper": "self word *parts", "Denial": "self word *parts"},
+    "layouts": {"Layout": "self rows"},
+    "verdicts": {"Always": "self", "Sometimes": "self yes no", "Never": "self", "Follows": "self",
+                 "Unless": "self setting", "Alike": "self", "Unlike": "self setting"},
+    "questions": {"Told": "self rows", "Untold": "self setting one other"},
+    "duels": {"Duel": "self claim setting"},
+}
+METHODS = {
+    "papers": {"Paper": {"__eq__": "self other"}},
+    "layouts": {"Layout": {"has": "self number", "many": "self", "least": "self", "greatest": "self", "same": "self other",
+                           "__eq__": "self other"}},
+    "duels": {"Duel": {"move": "self move", "twin": "self"}},
+}
 
 
 def arguments(function):
@@ -43,6 +68,13 @@ class InterfaceTest(unittest.TestCase):
                 made = getattr(loaded, name)
                 self.assertEqual(arguments(made.__init__), told, name)
                 self.assertEqual(made.__module__, loaded.__name__)
+
+    def test_methods_stand_in_the_class_itself(self):
+        for module, classes in METHODS.items():
+            loaded = importlib.import_module("claimduel." + module)
+            for name, methods in classes.items():
+                for method, told in methods.items():
+                    self.assertEqual(arguments(vars(getattr(loaded, name))[method]), told, (name, method))
 
 
 if __name__ == "__main__":
