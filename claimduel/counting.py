@@ -17,7 +17,7 @@ from claimduel.rests import common_of, inverse_of, multiple_of
 from claimduel.shapes import NO, YES, free_names
 from claimduel.spans import many_in, spans_of
 from claimduel.spreads import by_rest, changed, far_out, inner_of, is_turning, joint
-from claimduel.spreads import literals_in, marks_by, put_form, settle, shorter
+from claimduel.spreads import literals_in, marks_by, open_rests, put_form, settle, shorter
 from claimduel.sums import factor_in, form_sum, form_times, rest_without
 from claimduel.thinning import key_of, turned
 
@@ -104,10 +104,10 @@ def turnings(low, high):
     return [(sign, claim) for sign, claim in pairs if claim != NO]
 
 
-def rest_groups(claim, name, period):
+def rest_groups(claim, name):
     """Pairs of what the claim is for some rests, settled, and these rests."""
     groups = {}
-    for rest in range(period):
+    for rest in open_rests(claim, name):
         here = by_rest(claim, name, rest)
         if here != NO:
             groups.setdefault(key_of(here), (here, []))[1].append(rest)
@@ -144,9 +144,9 @@ def signs_in(claim, name, guard):
     return [(here, signs) for here, signs, _ in found]
 
 
-def leaves_of(claim, name, period):
+def leaves_of(claim, name):
     """Pairs of a guard and a tuple of triples (cut, sign, rests), the cuts at which the claim turns for these rests."""
-    groups = rest_groups(claim, name, period)
+    groups = rest_groups(claim, name)
     guard = finite_claim(groups, name)
     found = [(guard, ())] if guard != NO else []
     for here, rests in groups:
@@ -210,7 +210,7 @@ def count_pieces(claim, name):
     claim = moved(claim, name)
     period = period_in(claim, name)
     groups = {}
-    for guard, signs in leaves_of(claim, name, period):
+    for guard, signs in leaves_of(claim, name):
         for here, d, form in leaf_pieces(guard, signs, period):
             groups.setdefault((d, form), []).append(here)
     return [(shorter(settle(joint("or", groups[key]))), *key) for key in groups]

@@ -9,10 +9,9 @@ Going up it is likewise.
 """
 
 from claimduel.marks import marks_in, period_in
-from claimduel.rests import rest_of_both
 from claimduel.seeking import some_number
 from claimduel.shapes import NO, YES, free_names
-from claimduel.spreads import by_rest, far_out, inner_of, marks_by, settle
+from claimduel.spreads import by_rest, far_out, inner_of, marks_by, open_rests, settle
 from claimduel.striking import SIDES
 from claimduel.sums import factor_in
 from claimduel.thinning import settled_whole
@@ -33,15 +32,6 @@ def turning_marks(claim, name, side):
 def marks_met(claim, name):
     """The marks of what a spread claim says is zero."""
     return sorted({mark: True for literal, mark in marks_by(claim, name) if literal[0] == "zero"})
-
-
-def known_rest(claim, name):
-    """The pair (rest, m) that a spread claim tells outright of each right number."""
-    found = (0, 1)
-    for part in claim[1:] if claim[0] == "and" else (claim,):
-        if part[0] == "rests" and part[2][1] == ((name, 1),):
-            found = rest_of_both(found, (-part[2][0] % part[1], part[1]))
-    return found
 
 
 def rows_at(less, name, rest, period):
@@ -72,9 +62,8 @@ def rows_of(plain, name):
         number = some_number(claim, name)
         return () if number is None else (("at", 1, (number, ())),)
     period = period_in(claim, name)
-    start, step = known_rest(claim, name)
     rows = {}
-    for rest in range(start, period, step):
+    for rest in open_rests(claim, name):
         found, is_sure = rows_at(by_rest(claim, name, rest), name, rest, period)
         if is_sure:
             return tuple(found)

@@ -6,7 +6,8 @@ spread; yes and no stand in none but by themselves.
 
 from claimduel.atoms import contrary_literal, slim
 from claimduel.facts import Facts
-from claimduel.marks import mark_in
+from claimduel.marks import mark_in, period_in
+from claimduel.rests import rest_of_both
 from claimduel.shapes import COMPARISONS, NO, YES, free_names
 from claimduel.spanclaims import claim_of_spans
 from claimduel.spans import spans_of
@@ -107,7 +108,7 @@ def put_form(literal, name, form):
         return contrary_literal(put_form(literal[1], name, form))
     if not asks_of(literal, name):
         return literal
-    return slim((*literal[:-1], form_put(literal[-1], name, form)))
+    return slim(literal[:-1] + (form_put(literal[-1], name, form),))
 
 
 def put_rest(literal, name, rest):
@@ -130,6 +131,22 @@ def put_far(literal, name, side):
 def by_rest(claim, name, rest):
     """The claim for the numbers that leave the rest by its period, settled."""
     return settle(changed(claim, lambda literal: put_rest(literal, name, rest)))
+
+
+def known_rest(claim, name):
+    """The pair (rest, m) that a claim tells outright of each right number."""
+    found = (0, 1)
+    for part in parts_for("and", claim):
+        if part[0] == "rests" and part[2][1] == ((name, 1),):
+            both = rest_of_both(found, (-part[2][0] % part[1], part[1]))
+            found = found if both is None else both
+    return found
+
+
+def open_rests(claim, name):
+    """Rests by the period of a claim, all that right numbers may leave."""
+    start, step = known_rest(claim, name)
+    return list(range(start, period_in(claim, name), step))
 
 
 def far_out(claim, name, side):

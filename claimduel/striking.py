@@ -12,9 +12,8 @@ from claimduel.atoms import slim
 from claimduel.marks import mark_in, period_in
 from claimduel.seeking import some_number
 from claimduel.shapes import NO, YES, free_names
-from claimduel.spans import is_endless, spans_of
 from claimduel.spreads import by_rest, changed, far_out, inner_of, joint, marks_by
-from claimduel.spreads import put_fraction, settle, shorter
+from claimduel.spreads import open_rests, put_fraction, settle, shorter
 from claimduel.sums import factor_in, rest_without
 from claimduel.thinning import parts_for
 
@@ -26,24 +25,46 @@ def points_by(claim, name, side, period):
     sign = 1 if side == "left" else -1
     points = {}
     for literal, (d, form) in marks_by(claim, name):
-        steps = []
-        if literal[0] == "zero":
-            steps = [0]
-        elif literal[0] == "not":
-            steps = [d * period]
-        elif factor_in(literal[1], name) * sign < 0:
-            steps = list(range(1, d * period + 1))
-        for step in steps:
+        first, last = steps_at(literal, name, side, d * period)
+        for step in range(first, last + 1):
             points[d, (form[0] + sign * step, form[1])] = True
     return list(points)
 
 
-def far_claims(claim, name, side):
-    """What the claim is far to a side, for each rest by its period, settled."""
-    far = far_out(claim, name, side)
-    if far == NO:
-        return []
-    return [by_rest(far, name, rest) for rest in range(period_in(far, name))]
+def steps_at(literal, name, side, most):
+    """The first and the last step away from the mark of a literal, for points; the last one is less for no steps."""
+    if literal[0] == "zero":
+        return 0, 0
+    if literal[0] == "not":
+        return most, most
+    is_wanted = (factor_in(literal[1], name) > 0) == (side == "right")
+    return 1, most if is_wanted else 0
+
+
+def many_points(claim, name, side):
+    """How many points there are, equal ones counted again."""
+    period, total = period_in(claim, name), 0
+    for literal, mark in marks_by(claim, name):
+        first, last = steps_at(literal, name, side, mark[0] * period)
+        total += last - first + 1
+    return total
+
+
+def strike_far(claim, name, side):
+    """A settled claim that says that for some rest the claim is so far to a side."""
+    far = settle(far_out(claim, name, side))
+    return strike(far, name) if name in free_names(far) else far
+
+
+def strike_rests(claim, name):
+    """A claim in which only divisions ask of the name, the name struck."""
+    found = []
+    for rest in open_rests(claim, name):
+        here = by_rest(claim, name, rest)
+        if here == YES:
+            return YES
+        found.append(here)
+    return joint("or", found)
 
 
 def at_point(claim, name, d, form):
@@ -60,8 +81,7 @@ def cost_of(claim, name):
     least = least_zero(claim, name)
     if least is not None:
         return least[0]
-    period = period_in(claim, name)
-    return min([len(points_by(claim, name, side, period)) for side in SIDES]) + period
+    return min([many_points(claim, name, side) for side in SIDES]) + period_in(claim, name)
 
 
 def least_zero(claim, name):
@@ -84,25 +104,20 @@ def strike_literal(literal, name):
 
 def strike_points(claim, name):
     """A settled claim, the name struck, by what is far, and by points."""
-    period = period_in(claim, name)
     options = []
     for side in SIDES:
-        far = far_claims(claim, name, side)
-        if YES in far:
+        far = strike_far(claim, name, side)
+        if far == YES:
             return YES
-        options.append((far, points_by(claim, name, side, period)))
-    far, points = min(options, key=many_in_both)
-    found = list(far)
-    for d, form in points:
+        options.append((many_points(claim, name, side) + len(parts_for("or", far)), side, far))
+    _, side, far = min(options)
+    found = [far]
+    for d, form in points_by(claim, name, side, period_in(claim, name)):
         here = at_point(claim, name, d, form)
         if here == YES:
             return YES
         found.append(here)
     return joint("or", found)
-
-
-def many_in_both(pair):
-    return len(pair[0]) + len(pair[1])
 
 
 def strike_within(claim, name):
@@ -113,8 +128,8 @@ def strike_within(claim, name):
         return strike_literal(claim, name)
     least = least_zero(claim, name)
     if least is not None:
-        return at_point(claim, name, *least)
-    return strike_points(claim, name)
+        return at_point(claim, name, least[0], least[1])
+    return strike_points(claim, name) if marks_by(claim, name) else strike_rests(claim, name)
 
 
 def strike(claim, name):
@@ -123,7 +138,7 @@ def strike(claim, name):
         parts = []
         for part in claim[1:]:
             parts.append(strike(part, name))
-        return shorter(joint("or", parts))
+        return shorter(settle(joint("or", parts)))
     inside, outside = [], []
     for part in parts_for("and", claim):
         row = inside if name in free_names(part) else outside
@@ -131,12 +146,14 @@ def strike(claim, name):
     if not inside:
         return claim
     if not outside:
-        return shorter(strike_within(claim, name))
+        return shorter(settle(strike_within(claim, name)))
     return shorter(settle(joint("and", outside + [strike(joint("and", inside), name)])))
 
 
 def cheapest(claim, names):
     """The name of these, each of which is free in the claim, that is struck with least to be done."""
+    if len(names) == 1:
+        return names[0]
     costs = []
     for name in names:
         parts = [part for part in parts_for("or", claim) if name in free_names(part)]
@@ -155,10 +172,4 @@ def strike_all(claim, names):
 
 def strike_endless(claim, name):
     """A settled claim that is alike to: for endlessly many numbers of the name this settled claim is so."""
-    spans = spans_of(claim, name) if free_names(claim) == (name,) else None
-    if spans is not None:
-        return YES if is_endless(spans) else NO
-    found = []
-    for side in SIDES:
-        found.extend(far_claims(claim, name, side))
-    return shorter(settle(joint("or", found)))
+    return shorter(settle(joint("or", [strike_far(claim, name, side) for side in SIDES])))
