@@ -12,9 +12,10 @@ from math import gcd
 
 from claimduel.atoms import contrary_literal, slim
 from claimduel.marks import mark_in, period_in
-from claimduel.restcases import axes_for, cases_by, claim_of_cases, worth_in
+from claimduel.restcases import axes_for, cases_by, claim_of_cases, many_cases, worth_in
 from claimduel.rests import common_of, inverse_of, multiple_of
 from claimduel.shapes import NO, YES, free_names
+from claimduel.spanclaims import divisors_of
 from claimduel.spans import many_in, spans_of
 from claimduel.spreads import by_rest, changed, far_out, inner_of, is_turning, joint
 from claimduel.spreads import literals_in, marks_by, open_rests, put_form, settle, shorter
@@ -23,6 +24,8 @@ from claimduel.thinning import key_of, turned
 
 FROM = "from"
 PAST = "past"
+# Cases of rests are gone through one by one up to so many.
+MOST_CASES = 150
 
 
 def moved(claim, name):
@@ -144,9 +147,59 @@ def signs_in(claim, name, guard):
     return [(here, signs) for here, signs, _ in found]
 
 
-def leaves_of(claim, name):
+def put_rests(literal, told):
+    """A literal, where the rests are told that all divisions ask for."""
+    if literal[0] == "not":
+        return contrary_literal(put_rests(literal[1], told))
+    if literal[0] != "rests":
+        return literal
+    return YES if worth_in(literal[2], told) % literal[1] == 0 else NO
+
+
+def groups_at(groups, told):
+    """The groups of rest_groups where the rests are told that all divisions ask for."""
+    found = {}
+    for claim, rests in groups:
+        here = settle(changed(claim, lambda literal: put_rests(literal, told)))
+        if here != NO:
+            found.setdefault(key_of(here), (here, []))[1].extend(rests)
+    return list(found.values())
+
+
+def parted_groups(groups):
+    """Pairs of a claim about rests of other names, and what the groups are where it is so.
+
+    Without divisions it is told at once which comparisons matter; but there may be too many cases.
+    """
+    wanted = []
+    for claim, _ in groups:
+        inner = [inner_of(literal) for literal in literals_in(claim)]
+        wanted.extend([(literal[2], literal[1]) for literal in inner if literal[0] == "rests"])
+    axes = axes_for(wanted)
+    if not axes or many_cases(axes) > MOST_CASES:
+        return [(YES, groups)]
+    found = {}
+    for case in cases_by(axes):
+        here = groups_at(groups, {core: rest for core, rest in zip(axes, case)})
+        key = tuple([(key_of(claim), tuple(rests)) for claim, rests in here])
+        found.setdefault(key, (here, []))[1].append(case)
+    return [(claim_of_cases(cases, list(axes.items())), here) for here, cases in found.values()]
+
+
+def by_least_period(groups, period):
+    """The groups, and the least divisor of the period by which they tell the same of each number."""
+    pattern = [None] * period
+    for at, (_, rests) in enumerate(groups):
+        for rest in rests:
+            pattern[rest] = at
+    for least in divisors_of(period):
+        if pattern[least:] == pattern[:period - least]:
+            return [(claim, [rest for rest in rests if rest < least]) for claim, rests in groups], least
+    return groups, period
+
+
+def leaves_of(groups, name):
     """Pairs of a guard and a tuple of triples (cut, sign, rests), the cuts at which the claim turns for these rests."""
-    groups = rest_groups(claim, name)
     guard = finite_claim(groups, name)
     found = [(guard, ())] if guard != NO else []
     for here, rests in groups:
@@ -210,7 +263,9 @@ def count_pieces(claim, name):
     claim = moved(claim, name)
     period = period_in(claim, name)
     groups = {}
-    for guard, signs in leaves_of(claim, name):
-        for here, d, form in leaf_pieces(guard, signs, period):
-            groups.setdefault((d, form), []).append(here)
+    for case, parts in parted_groups(rest_groups(claim, name)):
+        parts, least = by_least_period(parts, period)
+        for guard, signs in leaves_of(parts, name):
+            for here, d, form in leaf_pieces(settle(joint("and", [guard, case])), signs, least):
+                groups.setdefault((d, form), []).append(here)
     return [(shorter(settle(joint("or", groups[key]))), *key) for key in groups]
