@@ -144,12 +144,12 @@ def settled_pieces(spans):
         end, begin = drawn_in(here, short, other)
         low, many, bits = short
         if end == begin and here[2:] == other[2:]:
-            here = (here[0], other[1], *other[2:])
+            here = here[:1] + other[1:]
             continue
-        found.append((here[0], end, *here[2:]))
+        found.append((here[0], end) + here[2:])
         middle = bits >> (end - low) & full_mask(begin - end)
         found.extend([(one, two, 1, 1) for one, two in runs_of(end, begin - end, middle)])
-        here = (begin, other[1], *other[2:])
+        here = (begin,) + other[1:]
     return found + [here]
 
 

@@ -108,7 +108,7 @@ def spans_of(claim, name):
     m = period_in(claim, name)
     if m > MOST_BITS:
         return None
-    return (m, *lines_of(claim, m))
+    return (m,) + lines_of(claim, m)
 
 
 def pieces_of(spans):
@@ -126,18 +126,10 @@ def kept_mask(piece, m):
     return turned_by(seen, m, -low)
 
 
-def is_empty(spans):
-    return not any([kept_mask(piece, spans[0]) for piece in pieces_of(spans)])
-
-
-def is_endless(spans):
-    return spans[2][0] != 0 or spans[2][-1] != 0
-
-
 def many_in(spans):
     """How many numbers are right; None for endlessly many."""
     m = spans[0]
-    if is_endless(spans):
+    if spans[2][0] != 0 or spans[2][-1] != 0:
         return None
     total = 0
     for low, high, mask in pieces_of(spans)[1:-1]:
