@@ -1,29 +1,28 @@
 """How many numbers are right for a name, told by forms with guards.
 
-A *cut* is a triple (d, form, kind): as an integer it is the least number that is not below form / d
-if its kind is "from", the least one above form / d if its kind is "past". A comparison is so on one
-side of a cut, a zero between two. Of the numbers that leave one rest by the period those below a cut
-are told by its form and the rest of this form. All right ones are added up at the cuts at which the
-claim turns: those below a cut are added where the claim is so just below the cut and not from it on,
-and taken away where it is the other way round. So guards tell where the claim turns, and rests.
+Of the numbers that leave one rest by the period those below a cut are told by its form and the rest
+of this form. All right ones are added up at the cuts at which the claim turns: those below a cut are
+added where the claim is so just below the cut and not from it on, and taken away where it is the
+other way round. So guards tell where the claim turns, and rests. Zeros are left out there; by them
+single numbers are right, or are not, which are counted one by one.
 """
 
 from math import gcd
 
-from claimduel.atoms import contrary_literal, slim
-from claimduel.marks import mark_in, period_in
+from claimduel.atoms import contrary_literal
+from claimduel.cuts import FROM, signs_in
+from claimduel.marks import period_in
 from claimduel.restcases import axes_for, cases_by, claim_of_cases, many_cases, worth_in
 from claimduel.rests import common_of, inverse_of, multiple_of
 from claimduel.shapes import NO, YES, free_names
+from claimduel.singles import single_turns, with_singles, without_zeros
 from claimduel.spanclaims import divisors_of
 from claimduel.spans import many_in, spans_of
-from claimduel.spreads import by_rest, changed, far_out, inner_of, is_turning, joint
-from claimduel.spreads import literals_in, marks_by, open_rests, put_form, settle, shorter
+from claimduel.spreads import by_rest, changed, far_out, inner_of, joint
+from claimduel.spreads import literals_in, open_rests, put_form, settle, shorter
 from claimduel.sums import factor_in, form_sum, form_times, rest_without
 from claimduel.thinning import key_of, turned
 
-FROM = "from"
-PAST = "past"
 # Cases of rests are gone through one by one up to so many.
 MOST_CASES = 150
 
@@ -50,63 +49,6 @@ def moved(claim, name):
     return settle(changed(claim, lambda literal: put_form(literal, name, form)))
 
 
-def cuts_in(literal, name):
-    """The cuts of a comparison with this name."""
-    mark = mark_in(literal[1], name)
-    if literal[0] == "zero":
-        return [(*mark, FROM), (*mark, PAST)]
-    return [(*mark, FROM if factor_in(literal[1], name) > 0 else PAST)]
-
-
-def all_cuts(claim, name):
-    cuts = {}
-    for literal, _ in marks_by(claim, name):
-        for cut in cuts_in(inner_of(literal), name):
-            cuts[cut] = True
-    return sorted(cuts)
-
-
-def is_before(cut, other):
-    """A literal that says that a cut comes before another one; of equal ones any may be first, but always the same."""
-    form = form_sum(form_times(cut[1], other[0]), form_times(other[1], -cut[0]))
-    if cut[2] == other[2]:
-        is_strict = other < cut
-    else:
-        is_strict = cut[2] == PAST
-    return slim(("below", form if is_strict else (form[0] - 1, form[1])))
-
-
-def is_passed(cut, other, is_beyond):
-    """A literal that says that a cut is passed right below another one, or from it on if that is beyond."""
-    if cut == other:
-        return YES if is_beyond else NO
-    return is_before(cut, other)
-
-
-def literal_by(literal, name, cut, is_beyond):
-    """What a literal is right below a cut, or from it on if that is beyond."""
-    if literal[0] == "not":
-        return turned(literal_by(literal[1], name, cut, is_beyond))
-    if not is_turning(literal, name):
-        return literal
-    passed = [is_passed(one, cut, is_beyond) for one in cuts_in(literal, name)]
-    if literal[0] == "zero":
-        return joint("and", [passed[0], contrary_literal(passed[1])])
-    return contrary_literal(passed[0]) if factor_in(literal[1], name) > 0 else passed[0]
-
-
-def by_cut(claim, name, cut, is_beyond):
-    return settle(changed(claim, lambda literal: literal_by(literal, name, cut, is_beyond)))
-
-
-def turnings(low, high):
-    """Pairs of a sign and a claim that says that it is so: 1 for so below and not beyond, -1 for the other way, 0."""
-    pairs = [(1, settle(joint("and", [low, turned(high)]))), (-1, settle(joint("and", [turned(low), high])))]
-    is_same = [joint("and", [low, high]), joint("and", [turned(low), turned(high)])]
-    pairs.append((0, settle(joint("or", is_same))))
-    return [(sign, claim) for sign, claim in pairs if claim != NO]
-
-
 def rest_groups(claim, name):
     """Pairs of what the claim is for some rests, settled, and these rests."""
     groups = {}
@@ -123,28 +65,6 @@ def finite_claim(groups, name):
     for claim, _ in groups:
         parts.extend([turned(far_out(claim, name, "left")), turned(far_out(claim, name, "right"))])
     return settle(joint("and", parts))
-
-
-def signs_in(claim, name, guard):
-    """Pairs of a guard and a tuple of pairs (cut, sign), the cuts at which the claim turns then.
-
-    As the claim is not so far out, it turns to be so as often as not to be so.
-    """
-    cuts = all_cuts(claim, name)
-    found = [(guard, (), 0)]
-    for at, cut in enumerate(cuts):
-        options = turnings(by_cut(claim, name, cut, False), by_cut(claim, name, cut, True))
-        behind = len(cuts) - at - 1
-        longer = []
-        for here, signs, total in found:
-            for sign, option in options:
-                if not -behind <= total + sign <= behind:
-                    continue
-                more = settle(joint("and", [here, option]))
-                if more != NO:
-                    longer.append((more, signs + ((cut, sign),) if sign else signs, total + sign))
-        found = longer
-    return [(here, signs) for here, signs, _ in found]
 
 
 def put_rests(literal, told):
@@ -236,8 +156,8 @@ def total_of(signs, period, told):
     return whole // common, (total[0] // common, tuple([(name, factor // common) for name, factor in total[1]]))
 
 
-def leaf_pieces(guard, signs, period):
-    """Triples (guard, d, form) for one way of the claim to turn."""
+def leaf_pieces(guard, signs, period, turns):
+    """Triples (guard, d, form) for one way of the claim to turn, and all ways of single numbers to be right."""
     axes = axes_for([(cut[1], cut[0] * period) for cut, _, _ in signs])
     groups = {}
     for case in cases_by(axes):
@@ -246,8 +166,8 @@ def leaf_pieces(guard, signs, period):
     found = []
     for d, form in groups:
         here = settle(joint("and", [guard, claim_of_cases(groups[d, form], list(axes.items()))]))
-        if here != NO:
-            found.append((here, d, form))
+        for narrower, more in with_singles(here, turns) if here != NO else []:
+            found.append((narrower, d, (form[0] + more * d, form[1])))
     return found
 
 
@@ -261,11 +181,12 @@ def count_pieces(claim, name):
         many = many_in(spans_of(claim, name))
         return [] if many is None else [(YES, 1, (many, ()))]
     claim = moved(claim, name)
-    period = period_in(claim, name)
+    turns, base = single_turns(claim, name), without_zeros(claim, name)
+    period = period_in(base, name)
     groups = {}
-    for case, parts in parted_groups(rest_groups(claim, name)):
+    for case, parts in parted_groups(rest_groups(base, name)):
         parts, least = by_least_period(parts, period)
         for guard, signs in leaves_of(parts, name):
-            for here, d, form in leaf_pieces(settle(joint("and", [guard, case])), signs, least):
+            for here, d, form in leaf_pieces(settle(joint("and", [guard, case])), signs, least, turns):
                 groups.setdefault((d, form), []).append(here)
     return [(shorter(settle(joint("or", groups[key]))), *key) for key in groups]
