@@ -103,6 +103,21 @@ class PiecesForTest(unittest.TestCase):
                         claim = both([window, rests(m, constant, x=1, k=1)])
                         self.check(claim, "x", [{"n": n, "k": k} for n in range(-3, 4) for k in (-5, 0, 7)])
 
+    def test_rests_of_other_names(self):
+        luck = chance(124)
+        window = both([("not", below(0, n=-1, x=1)), below(-7, k=-1, x=1)])
+        sums = [rests(3, 0, k=1, n=1, x=1), rests(3, 1, k=-1, n=1, x=1), rests(3, 2, n=1, x=2), rests(2, 1, k=1, n=1, x=1)]
+        near = [{"n": n, "k": k} for n in range(-3, 3) for k in range(n - 6, n + 9)]
+        for _ in range(25):
+            parts = luck.sample(sums, 3) + [rests(3, luck.randint(0, 2), n=1), rests(2, 0, k=1)]
+            claim = both([window, random_tree(luck, [("not", part) if luck.random() < 0.5 else part for part in parts])])
+            self.check(claim, "x", near)
+        # For some rests of n the division of x does not matter.
+        claim = both([window, ("or", rests(3, 0, n=1), rests(4, 1, x=1))])
+        self.check(claim, "x", [{"n": n, "k": k} for n in range(-4, 4) for k in range(-9, 9)])
+        claim = both([window, ("or", both([rests(3, 0, n=1), rests(2, 1, x=1)]), rests(12, 5, k=1, n=2, x=1))])
+        self.check(claim, "x", [{"n": n, "k": k} for n in range(-4, 4) for k in range(-9, 9)])
+
     def test_edges(self):
         for claim, many in (
                 (("yes",), None), (("no",), 0), (zero(0, x=1), 1), (zero(1, x=2), 0), (below(0, x=1), None),
