@@ -97,7 +97,8 @@ def are_apart(rows):
         return False
     meeting = Meeting(rows)
     for row in rows:
-        if any([other[2] < row[2] and common_row(row, other) is not None for other in meeting.near(row)]):
+        # Rows of one step were compared above, and of unlike ones the lesser is looked for.
+        if any([common_row(row, other) is not None for other in meeting.near(row, row[2] - 1)]):
             return False
     return True
 
@@ -128,27 +129,36 @@ class Meeting:
 
     def __init__(self, rows):
         self.groups = by_steps(rows)
+        self.steps = sorted(self.groups)
         self.hulls = {step: hull_of(self.groups[step]) for step in self.groups}
         # (step, m): {rest: rows of this step that leave it by m, which divides the step}
         self.tables = {}
 
-    def near(self, row):
-        found = []
-        for step in self.groups:
+    def near(self, row, greatest):
+        """Those that may meet this row, of the steps up to the greatest one."""
+        found, rest = [], rest_in(row)
+        for step in self.steps:
+            if step > greatest:
+                return found
             if is_clear(self.hulls[step], row):
                 continue
             m = gcd(step, row[2])
             if (step, m) not in self.tables:
-                table = {}
-                for other in self.groups[step]:
-                    table.setdefault(rest_in(other) % m, []).append(other)
-                self.tables[step, m] = table
-            found.extend(self.tables[step, m].get(rest_in(row) % m, []))
+                self.tables[step, m] = self.table_by(step, m)
+            found.extend(self.tables[step, m].get(rest % m, []))
         return found
+
+    def table_by(self, step, m):
+        table = {}
+        for other in self.groups[step]:
+            table.setdefault(rest_in(other) % m, []).append(other)
+        return table
 
     def common(self, row):
         """The rows of what the row has in common with each of these."""
-        rows = [common_row(row, other) for other in self.near(row)]
+        if not self.steps:
+            return []
+        rows = [common_row(row, other) for other in self.near(row, self.steps[-1])]
         return [other for other in rows if other is not None]
 
 
