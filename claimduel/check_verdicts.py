@@ -2,10 +2,10 @@
 
 from claimduel.checks import is_integer, is_list, is_named_number, need_name
 from claimduel.claims import need_claim
-from claimduel.plainly import plain_in, with_numbers
+from claimduel.plainly import is_so_by, plain_in
 from claimduel.questions import Told, Untold
 from claimduel.rows import is_row, names_in_row
-from claimduel.shapes import YES, free_names
+from claimduel.shapes import free_names
 from claimduel.telling import setting_untold, two_right
 from claimduel.verdicts import Alike, Always, Follows, Never, Sometimes, Unless, Unlike
 from claimduel.verdicts import names_of_both, setting_apart, setting_unlike, setting_where
@@ -18,10 +18,6 @@ def table_for(value, names):
     if [name for name, _ in value] != list(names):
         return None
     return {name: number for name, number in value}
-
-
-def is_so_by(claim, table):
-    return plain_in(with_numbers(claim, table), True) == YES
 
 
 def shows_judged(claim, value):

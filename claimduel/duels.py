@@ -2,7 +2,7 @@
 
 from claimduel.checks import is_integer, is_list, is_within, need_setting, need_told
 from claimduel.claims import need_claim
-from claimduel.errors import BadMove, Misfit, Over
+from claimduel.errors import BadDuel, BadMove, Misfit, Over
 from claimduel.layouts import Layout
 from claimduel.papers import fixed
 from claimduel.plain import is_right
@@ -33,6 +33,14 @@ def need_move(value, part):
     if not is_move(value):
         raise BadMove(part)
     return fixed(value)
+
+
+def is_kept_by(claim, table, layouts):
+    """Whether the keeper of a count comparison has won if the doubter takes these layouts."""
+    _, kind, form, rows = claim
+    worth = form_by(form, table)[0]
+    worth += sum([row[0] * layout.many() for row, layout in zip(rows, layouts)])
+    return worth < 0 if kind == "below" else worth == 0
 
 
 class Duel:
@@ -134,10 +142,7 @@ class Duel:
         self.enter(index, claim)
 
     def move_take(self):
-        _, kind, form, rows = self.claim
-        worth = form_by(form, self.known)[0]
-        worth += sum([row[0] * layout.many() for row, layout in zip(rows, self.laid)])
-        self.finish(worth < 0 if kind == "below" else worth == 0)
+        self.finish(is_kept_by(self.claim, self.known, self.laid))
 
     def twin(self):
         other = Duel(self.claim, self.known)
@@ -145,3 +150,8 @@ class Duel:
         other.keeper, other.place, other.bound, other.laid = self.keeper, self.place, self.bound, self.laid
         other.kind, other.turn, other.winner, other.moves = self.kind, self.turn, self.winner, self.moves
         return other
+
+
+def need_duel(value, part):
+    if not isinstance(value, Duel):
+        raise BadDuel(part)

@@ -2,8 +2,8 @@
 
 from claimduel.checks import need_setting, need_told
 from claimduel.claims import need_claim
-from claimduel.plainly import plain_in, with_numbers
-from claimduel.shapes import YES, free_names
+from claimduel.plainly import is_so_by, plain_in
+from claimduel.shapes import free_names
 from claimduel.spreads import told_shortly
 
 
@@ -15,4 +15,4 @@ def is_so(claim, setting):
     claim = need_claim(claim, "claim")
     table = need_setting(setting, "setting")
     need_told(free_names(claim), table)
-    return plain_in(with_numbers(claim, table), True) == YES
+    return is_so_by(claim, table)

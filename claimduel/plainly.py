@@ -44,6 +44,17 @@ def plain_in(claim, wanted):
     return literal if wanted else contrary_literal(literal)
 
 
+def is_so_by(claim, table):
+    """Whether a claim is so, by a dict that tells all its free names."""
+    return plain_in(with_numbers(claim, table), True) == YES
+
+
+def right_in(claim, name, table, wanted):
+    """A settled claim of one name: that a claim, or its contrary, is so with it, and with the numbers of a dict."""
+    others = {other: table[other] for other in table if other != name}
+    return plain_in(with_numbers(claim, others), wanted)
+
+
 def turned_unless(wanted, claim):
     return claim if wanted else settle(turned(claim))
 

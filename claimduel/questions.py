@@ -5,7 +5,7 @@ from claimduel.claims import need_claim
 from claimduel.errors import Misfit, TooMany
 from claimduel.layouts import layout_of
 from claimduel.papers import Denial, Paper
-from claimduel.plainly import plain_in, with_numbers
+from claimduel.plainly import plain_in, right_in
 from claimduel.shapes import free_names
 from claimduel.spans import greatest_in, least_in, many_in, spans_of
 from claimduel.spreads import told_shortly
@@ -36,9 +36,8 @@ def asked(claim, name, setting):
     claim = need_claim(claim, "claim")
     need_name(name, "name")
     table = need_setting(setting, "setting")
-    others = {other: table[other] for other in table if other != name}
-    need_told([other for other in free_names(claim) if other != name], others)
-    return plain_in(with_numbers(claim, others), True)
+    need_told([other for other in free_names(claim) if other != name], table)
+    return right_in(claim, name, table, True)
 
 
 def asked_spans(claim, name, setting):

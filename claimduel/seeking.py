@@ -21,11 +21,17 @@ def seek(claim, name):
     if claim[0] == "or":
         return first_found(claim[1:], name)
     parts = parts_for("and", claim)
-    for at, part in enumerate(parts):
-        if part[0] == "or":
-            rest = parts[:at] + parts[at + 1:]
-            return first_found([settle(joint("and", [piece] + rest)) for piece in part[1:]], name)
-    return None if claim == NO else seek_by_trial(claim, parts, name)
+    # Fewest cases first: so most others are told by those that were taken.
+    options = sorted([(len(part), at) for at, part in enumerate(parts) if part[0] == "or"])
+    if not options:
+        return None if claim == NO else seek_by_trial(claim, parts, name)
+    at = options[0][1]
+    rest = parts[:at] + parts[at + 1:]
+    for piece in parts[at][1:]:
+        found = seek(settle(joint("and", [piece] + rest)), name)
+        if found is not None:
+            return found
+    return None
 
 
 def first_found(claims, name):

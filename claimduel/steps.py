@@ -192,3 +192,42 @@ def is_within_rows(rows, others):
     """Whether each number of these rows is in one of the other ones; both are layouts."""
     meeting = Meeting(others)
     return all([is_covered(row, meeting.common(row)) for row in rows])
+
+
+def uncovered_in(row, parts):
+    """The first number of a row with a first one that is in none of these parts of it; None if there is none.
+
+    The parts have ends, and no number in common.
+    """
+    first, last, step = row
+    if last is None:
+        last = max([part[1] for part in parts], default=first) + step
+    low, high = 0, (last - first) // step
+    if sum([many_up_to(part, last) for part in parts]) > high:
+        return None
+    while low < high:
+        middle = (low + high) // 2
+        end = first + middle * step
+        if sum([many_up_to(part, end) for part in parts]) <= middle:
+            high = middle
+        else:
+            low = middle + 1
+    return first + low * step
+
+
+def outside_of(row, meeting):
+    """A number of a row that is in none of other rows, None if there is none; the row or all others have their ends."""
+    if row[0] is None:
+        found = uncovered_in(turned_row(row), [turned_row(part) for part in meeting.common(row)])
+        return None if found is None else -found
+    return uncovered_in(row, meeting.common(row))
+
+
+def apart_in(rows, others):
+    """A number that is in just one of two layouts, one of which has no end that lacks; None if there is none."""
+    for ones, meeting in ((rows, Meeting(others)), (others, Meeting(rows))):
+        for row in ones:
+            found = outside_of(row, meeting)
+            if found is not None:
+                return found
+    return None

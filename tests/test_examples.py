@@ -5,7 +5,8 @@ import os
 import unittest
 
 MODULES = ("errors", "checks", "papers", "rests", "forms", "claims", "claim_texts", "plain", "marks", "layouts", "rows",
-           "struck", "pieces", "counted", "meaning", "verdicts", "questions", "check_verdicts", "duels")
+           "struck", "pieces", "counted", "meaning", "verdicts", "questions", "check_verdicts", "duels",
+           "moves", "books", "check_books", "rules", "programs")
 
 
 def names_of_all():

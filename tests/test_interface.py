@@ -31,6 +31,11 @@ FUNCTIONS = {
                   "between": "one other"},
     "check_verdicts": {"shows_judged": "claim value", "shows_follows": "one other value", "shows_alike": "one other value",
                        "shows_told": "claim name value"},
+    "moves": {"wins": "duel", "best": "duel"},
+    "books": {"given_by": "row name", "book_for": "claim hand", "written": "claim book", "by_book": "duel book"},
+    "check_books": {"shows_book": "claim setting value"},
+    "rules": {"rule_for": "claim name by", "added": "one other", "most_of": "rule", "growth_of": "rule",
+              "first_more": "one other", "parted_at": "one other"},
 }
 CLASSES = {
     "papers": {"Paper": "self word *parts", "Denial": "self word *parts"},
@@ -39,12 +44,18 @@ CLASSES = {
                  "Unless": "self setting", "Alike": "self", "Unlike": "self setting"},
     "questions": {"Told": "self rows", "Untold": "self setting one other"},
     "duels": {"Duel": "self claim setting"},
+    "books": {"Book": "self hand rows"},
+    "rules": {"Rule": "self rows"},
+    "programs": {"Program": "self inputs needs rows gives"},
 }
 METHODS = {
     "papers": {"Paper": {"__eq__": "self other"}},
     "layouts": {"Layout": {"has": "self number", "many": "self", "least": "self", "greatest": "self", "same": "self other",
                            "__eq__": "self other"}},
     "duels": {"Duel": {"move": "self move", "twin": "self"}},
+    "books": {"Book": {"__eq__": "self other"}},
+    "rules": {"Rule": {"at": "self number", "__eq__": "self other"}},
+    "programs": {"Program": {"__eq__": "self other"}},
 }
 
 

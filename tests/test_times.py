@@ -6,13 +6,18 @@ Mostly a call takes thousandths of a second; what is asked here is that none tak
 import time
 import unittest
 
+from claimduel.books import Book, book_for, written
+from claimduel.check_books import shows_book
 from claimduel.claims import both, contrary, free_in
 from claimduel.counted import counted
+from claimduel.duels import Duel
 from claimduel.layouts import Layout, right_for
 from claimduel.meaning import is_so, plain_of
+from claimduel.moves import best, wins
 from claimduel.pieces import pieces_for
 from claimduel.questions import all_for, between, many_for, told_by, without
 from claimduel.rows import rows_for
+from claimduel.rules import Rule, added, first_more, most_of, parted_at, rule_for
 from claimduel.struck import all_struck, struck, struck_endless
 from claimduel.verdicts import alike, follows, judged
 from support import below, chance, from_to, random_bound, random_literal, random_tree, rests, zero
@@ -153,6 +158,65 @@ class TimesTest(unittest.TestCase):
         rows = [(1000 * k, 1000 * k + 7 * (k + 3), k + 3) for k in range(100)]
         self.assertFalse(self.timed(self.timed(Layout, rows).same, Layout(rows[1:])))
         self.assertEqual(self.timed(pieces_for, from_to("x", -10 ** 59, 10 ** 59), "x"), ((("yes",), 1, (2 * 10 ** 59, ())),))
+
+    def play_out(self, claim, setting):
+        """Best moves of both hands, to the end."""
+        duel = Duel(claim, setting)
+        hand = self.timed(wins, duel)
+        while duel.kind != "over":
+            duel.move(self.timed(best, duel))
+            self.assertEqual(self.timed(wins, duel), hand)
+
+    def test_duels(self):
+        luck = chance(196)
+        for k in range(40):
+            literals = [random_literal(luck, "klnyx", ms=(2, 3, 4, 6, 12), factors=(-3, 3, 2), span=10 ** 32 - 1, must="x")
+                        for _ in range(8)]
+            claim = random_bound(luck, random_tree(luck, literals), "x", ("some", "all", "endless"))
+            self.play_out(claim, {name: luck.randint(-9, 9) * 10 ** 31 for name in free_in(claim)})
+            literals = [random_literal(luck, "n" + "wxyz", kinds=("below", "zero"), must="wxyz") for _ in range(3)]
+            claim = random_bound(luck, random_tree(luck, literals), "wxyz", ("some", "all", "endless"))
+            self.play_out(claim, {name: 10 ** 40 for name in free_in(claim)})
+        lay = ("count", "zero", (-420, ()), ((1, "x", both([from_to("x", 0, 10 ** 30), rests(420, 7, x=1)])),))
+        self.play_out(lay, {})
+
+    def test_books(self):
+        luck = chance(197)
+        for k in range(30):
+            literals = [random_literal(luck, "klnyx", ms=(2, 3, 4, 6, 12), factors=(-3, 3, 2), span=10 ** 32 - 1, must="x")
+                        for _ in range(8)]
+            claim = random_bound(luck, random_tree(luck, literals), "x", ("some", "all"))
+            setting = {name: luck.randint(-9, 9) * 10 ** 31 for name in free_in(claim)}
+            for hand in (0, 1):
+                book = self.timed(book_for, claim, hand)
+                self.assertLessEqual(sum(len(rows) for _, rows in book.rows), 200)
+                self.timed(shows_book, claim, setting, book)
+                self.timed(is_so, self.timed(written, claim, book), setting)
+        rows = [("left", k, 60 + k, ((1, (0, (("n", 1),))), (2, (k, (("n", -1),))))) for k in range(12)]
+        pair = ("all", "n", ("some", "x", ("and", below(-9, n=1, x=-2), below(0, n=1, x=1))))
+        self.timed(shows_book, pair, {}, Book(0, [((0,), rows)]))
+
+    def test_rules(self):
+        luck = chance(198)
+        for k in range(60):
+            factors = luck.choice(((-3, -2, -1, 1, 2, 3), (-5, -4, 3, 5), (-3, 2, 4)))
+            literals = [random_literal(luck, "nx", ms=(3, 4, 5, 12), factors=factors, span=10 ** 32 - 1, must="nx") for _ in range(4)]
+            self.timed(rule_for, random_tree(luck, literals), "x", "n")
+            literals = [random_literal(luck, "nxy", kinds=("below",), factors=(-3, -2, 1, 3), must="nxy") for _ in range(3)]
+            literals.append(random_literal(luck, "nxy", kinds=("rests",), ms=(5, 12), factors=(-3, 1, 2), must="nxy"))
+            self.timed(rule_for, ("some", "y", ("and", *literals)), "x", "n")
+        for coins in ((15, 14), (13, 11), (15, 4)):
+            pay = both([("not", below(0, b=1)), zero(-10 ** 31, a=coins[0], b=coins[1], n=-1)])
+            for claim in (both([("not", below(0, a=1)), ("some", "b", pay)]), ("some", "b", pay)):
+                rule = self.timed(rule_for, claim, "a", "n")
+                self.timed(first_more, rule, self.timed(added, rule, rule))
+                self.timed(parted_at, rule, self.timed(rule_for, claim, "n", "a"))
+        rows = [(None, 0, [(0, 0, 1)])] + [(k * 10 ** 29, (k + 1) * 10 ** 29 - 1, [(0, k, 1)] * 60) for k in range(1, 900)]
+        rows[1] = (1, 2 * 10 ** 29 - 1, [(0, 1, 1)] * 60)
+        long = self.timed(Rule, rows + [(9 * 10 ** 31, None, [(60, 0, 60)] * 420)])
+        for function in (added, first_more, parted_at):
+            self.timed(function, long, long)
+        self.timed(most_of, long)
 
 
 if __name__ == "__main__":
