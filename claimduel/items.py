@@ -33,6 +33,10 @@ class Items:
         """The item that comes next cannot stand, or it is missing."""
         raise BadText(0, self.reached)
 
+    def refuse_last(self):
+        """The item that was read last cannot stand."""
+        raise BadText(0, self.reached - 1)
+
     def read_word(self, words):
         """Reads one of these words."""
         item = self.seen()

@@ -49,18 +49,12 @@ def rows_in(value):
 
 
 def names_in_row(row):
-    """The names in the forms and claims of a row; those within it are not looked at."""
-    forms, claims = [], []
+    """The names in the form and the test of a row; those within it are not looked at."""
     if row[0] == "set":
-        forms = [row[2]]
-    elif row[0] == "if":
-        claims = [row[1]]
-    else:
-        forms, claims = [row[3]], [row[1], row[2]]
-    names = [name for form in forms for name, _ in form[1]]
-    for claim in claims:
-        names.extend(free_names(claim))
-    return names
+        return [name for name, _ in row[2][1]]
+    if row[0] == "if":
+        return list(free_names(row[1]))
+    return [name for name, _ in row[3][1]] + list(free_names(row[1]))
 
 
 def names_with(inputs, rows):
@@ -74,6 +68,10 @@ def names_with(inputs, rows):
             if row[4] in table:
                 return None
             table[row[4]] = True
+    # The document has a program that keeps what a name is that no row sets: such a name counts, too.
+    for row in rows:
+        if row[0] == "while":
+            table = {**table, **{name: True for name in free_names(row[2])}}
     return table
 
 

@@ -111,6 +111,19 @@ def spans_of(claim, name):
     return (m,) + lines_of(claim, m)
 
 
+def is_in_spans(spans, number):
+    """Whether a number is right."""
+    m, cuts, masks = spans
+    low, high = 0, len(cuts)
+    while low < high:
+        middle = (low + high) // 2
+        if number < cuts[middle]:
+            high = middle
+        else:
+            low = middle + 1
+    return masks[low] >> number % m & 1 == 1
+
+
 def pieces_of(spans):
     """The triples (low, high, mask): from low to below high, None for no end."""
     _, cuts, masks = spans

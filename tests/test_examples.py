@@ -6,7 +6,8 @@ import unittest
 
 MODULES = ("errors", "checks", "papers", "rests", "forms", "claims", "claim_texts", "plain", "marks", "layouts", "rows",
            "struck", "pieces", "counted", "meaning", "verdicts", "questions", "check_verdicts", "duels",
-           "moves", "books", "check_books", "rules", "programs")
+           "moves", "books", "check_books", "rules", "programs",
+           "runs", "wants", "check_programs", "pictures", "desk")
 
 
 def names_of_all():
