@@ -10,7 +10,7 @@ from claimduel.thinning import DUAL, parts_for, settled_whole, turned
 from claimduel.turns import loops_in
 
 # Claims of more literals are not made less.
-MOST_LITERALS = 300
+MOST_LITERALS = 1000
 
 
 def flat_joined(label, claims):

@@ -36,6 +36,10 @@ FUNCTIONS = {
     "check_books": {"shows_book": "claim setting value"},
     "rules": {"rule_for": "claim name by", "added": "one other", "most_of": "rule", "growth_of": "rule",
               "first_more": "one other", "parted_at": "one other"},
+    "runs": {"run": "program inputs fuel", "trial": "program place kind setting"},
+    "wants": {"wants_of": "program"},
+    "check_programs": {"judged_program": "program", "shows_program": "program value"},
+    "pictures": {"picture": "claim name setting first last", "layout_text": "layout", "setting_text": "setting"},
 }
 CLASSES = {
     "papers": {"Paper": "self word *parts", "Denial": "self word *parts"},
@@ -47,6 +51,9 @@ CLASSES = {
     "books": {"Book": "self hand rows"},
     "rules": {"Rule": "self rows"},
     "programs": {"Program": "self inputs needs rows gives"},
+    "runs": {"Run": "self outcome names spent"},
+    "check_programs": {"Stands": "self", "Breaks": "self place kind setting"},
+    "desk": {"Desk": "self"},
 }
 METHODS = {
     "papers": {"Paper": {"__eq__": "self other"}},
@@ -56,6 +63,7 @@ METHODS = {
     "books": {"Book": {"__eq__": "self other"}},
     "rules": {"Rule": {"at": "self number", "__eq__": "self other"}},
     "programs": {"Program": {"__eq__": "self other"}},
+    "desk": {"Desk": {"told": "self line", "back": "self", "again": "self", "twin": "self", "__len__": "self", "__eq__": "self other"}},
 }
 
 

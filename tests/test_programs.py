@@ -79,7 +79,7 @@ class ProgramTest(unittest.TestCase):
                     ("while", YES, YES, form, "w", [], []), ("while", None, YES, form, "w", []), ("while", YES, None, form, "w", []),
                     ("while", YES, YES, (0,), "w", []), ("while", YES, YES, form, "W", []), ("while", YES, YES, form, "w", None),
                     ("while", YES, YES, form, "w", [None]), ("while", zero(0, z=1), YES, form, "w", []),
-                    ("while", YES, zero(0, z=1), form, "w", []), ("while", YES, YES, (0, (("z", 1),)), "w", []),
+                    ("while", YES, YES, (0, (("z", 1),)), "w", []),
                     ("while", YES, ("all", "a", YES), form, "w", []), ("while", YES, YES, form, "a", []), ("while", YES, YES, form, "x", [SET]),
                     ("while", YES, YES, form, "w", [("set", "w", form)]), ("for", "x", form), Odd(), (Odd(),), ("set", Odd(), form),
                     ("set", "x", Odd()), ("if", Odd(), [], []), ("while", YES, YES, form, Odd(), []), {}, (b"set", "x", form)):
@@ -98,12 +98,19 @@ class ProgramTest(unittest.TestCase):
     def test_names(self):
         """The was of any loop may stand anywhere, names that are set later or elsewhere, too."""
         names = (0, (("a", 1), ("v", 1), ("w", 1), ("x", 1), ("y", 1)))
-        rows = [("set", "x", names), ("while", ("zero", names), ("below", names), names, "w", [("if", ("zero", names), [("set", "y", names)], [])]),
-                ("while", ("zero", names), ("below", names), names, "v", [])]
+        rows = [("set", "x", names), ("while", ("zero", names), YES, names, "w", [("if", ("zero", names), [("set", "y", names)], [])]),
+                ("while", ("zero", names), below(0, v=1, w=1), names, "v", [])]
         program = Program(["a"], YES, rows, ("zero", names))
         self.assertEqual(program.names, ("a", "v", "w", "x", "y"))
         self.refused("rows", rows=rows[:2])
         self.refused("rows", rows=[rows[0], *rows[2:]])
+
+    def test_a_name_that_is_only_kept(self):
+        """The document's example stuck keeps what a name is that no row sets: the name counts as one of the program."""
+        program = Program(["a"], YES, [("while", zero(0, a=1), zero(0, a=1, q=1), (0, ()), "w", [])], zero(0, q=1))
+        self.assertEqual(program.names, ("a", "q", "w"))
+        self.refused("rows", rows=[("while", zero(0, q=1), YES, (0, ()), "w", [])])
+        self.refused("needs", needs=zero(0, q=1), rows=program.rows)
 
     def test_forty_rows(self):
         self.assertEqual(len(Program([], YES, [SET] * 40, YES).rows), 40)

@@ -1,0 +1,85 @@
+"""A setting found at which a claim is so: case by case, as far as a number that was found is not right."""
+
+from claimduel.plain import is_right
+from claimduel.shapes import NO, free_names
+from claimduel.solving import solve
+from claimduel.spreads import inner_of, joint, settle
+from claimduel.sums import form_times
+from claimduel.thinning import parts_for
+
+# The not of a division is looked at rest by rest up to this m.
+MOST_RESTS = 12
+
+
+def named(literals):
+    """Pairs of each division among literals, or not of one with a great m, and a name for how often it goes in."""
+    found = []
+    for literal in literals:
+        if literal[0] == "rests" or is_great(literal):
+            # A number is no name, so it stands nowhere yet.
+            found.append((literal, f"{len(found)}"))
+    return found
+
+
+def is_great(literal):
+    """Whether it is the not of a division with too many rests to be looked at one by one."""
+    return literal[0] == "not" and literal[1][0] == "rests" and literal[1][1] > MOST_RESTS
+
+
+def found_for(literals):
+    """A dict of numbers for which all literals are so, but for nots that are looked at later; None if there is none."""
+    belows = [literal[1] for literal in literals if literal[0] == "below"]
+    zeros = [literal[1] for literal in literals if literal[0] == "zero"]
+    divisions = named(literals)
+    for literal, name in divisions:
+        _, m, (constant, pairs) = inner_of(literal)
+        rest = (constant, ((name, -m),) + pairs)
+        if literal[0] == "rests":
+            zeros.append(rest)
+        else:
+            belows.extend([(rest[0] - m, rest[1]), form_times(rest, -1)])
+    return solve(belows, zeros, len(divisions))
+
+
+def cases_of(part):
+    """Claims, one of which is so if an "or", or the not of a comparison or division, is so."""
+    if part[0] == "or":
+        return list(part[1:])
+    literal = part[1]
+    if literal[0] == "zero":
+        return [("below", literal[1]), ("below", form_times(literal[1], -1))]
+    _, m, (constant, pairs) = literal
+    return [("rests", m, ((constant - rest) % m, pairs)) for rest in range(1, m)]
+
+
+def many_cases(part):
+    if part[0] == "or":
+        return len(part) - 1
+    return 2 if part[1][0] == "zero" else part[1][1] - 1
+
+
+def find(claim, names):
+    """A dict of numbers for these names, at which a settled claim without others is so; None if there is none."""
+    if claim == NO:
+        return None
+    parts = parts_for("and", claim)
+    found = found_for(parts)
+    if found is None:
+        return None
+    table = {name: found.get(name, 0) for name in names}
+    wrong = [(many_cases(part), at) for at, part in enumerate(parts) if not is_right(part, table)]
+    if not wrong:
+        return table
+    at = min(wrong)[1]
+    rest = parts[:at] + parts[at + 1:]
+    for case in cases_of(parts[at]):
+        told = find(settle(joint("and", [case] + rest)), names)
+        if told is not None:
+            return told
+    return None
+
+
+def found_setting(claim, names):
+    """As right_setting: an ascending tuple of pairs, for just these names; None if there is none."""
+    table = find(claim, list(names) + list(free_names(claim)))
+    return None if table is None else tuple(sorted({name: table[name] for name in names}.items()))
