@@ -6,7 +6,8 @@ from claimduel.claims import need_claim
 from claimduel.duels import need_duel
 from claimduel.errors import BadBook, BadRow, Misfit, Over
 from claimduel.papers import fixed
-from claimduel.plainly import is_so_by, plain_in
+from claimduel.plain import is_right
+from claimduel.plainly import plain_in, right_in
 from claimduel.rows import is_row, names_in_row, need_row, told_by_row
 from claimduel.rowsets import rows_of
 from claimduel.shapes import contrary_of, every_part, joined, own_form, parts_of, rebuilt
@@ -93,11 +94,18 @@ def written(claim, book):
     return write_in(claim, (), dict(book.rows))
 
 
-def wins_by(duel, number):
-    """Whether the hand whose turn it is can win once it has named the number."""
+def first_winning(duel, rows):
+    """The first number that these rows give by which the hand can win; without one, the first one that they give."""
     _, name, part = duel.claim
-    is_wanted = duel.turn == duel.keeper
-    return is_so_by(part, {**dict(duel.setting), name: number}) == is_wanted
+    right = right_in(part, name, dict(duel.setting), duel.turn == duel.keeper)
+    first = None
+    for row in rows:
+        need_told(names_in_row(row), duel.known)
+        number = told_by_row(row, duel.known)
+        if number is not None and is_right(right, {name: number}):
+            return number
+        first = number if first is None else first
+    return first
 
 
 def by_book(duel, book):
@@ -108,11 +116,5 @@ def by_book(duel, book):
     table = dict(book.rows)
     if duel.kind != "name" or duel.claim[0] == "endless" or duel.turn != book.hand or duel.place not in table:
         raise Misfit("place")
-    first = None
-    for row in table[duel.place]:
-        need_told(names_in_row(row), duel.known)
-        number = told_by_row(row, duel.known)
-        if number is not None and wins_by(duel, number):
-            return ("name", number)
-        first = number if first is None else first
-    return None if first is None else ("name", first)
+    number = first_winning(duel, table[duel.place])
+    return None if number is None else ("name", number)

@@ -1,10 +1,10 @@
 """Programs judged: whether all their wants are always so."""
 
 from claimduel.checks import are_integers, setting_of
-from claimduel.finding import found_setting
 from claimduel.papers import Denial, Paper
 from claimduel.plain import is_right
 from claimduel.programs import need_program
+from claimduel.settings import right_setting
 from claimduel.spreads import settle
 from claimduel.thinning import turned
 from claimduel.wanting import WantClaims, WantForms, all_wants
@@ -29,7 +29,7 @@ def first_breaking(program):
     """The place, the kind and a setting of the first want that is not always so; None if all are."""
     for place, kind, claim in all_wants(program, WantClaims()):
         names = program.inputs if kind == "needs" else program.names
-        setting = found_setting(settle(turned(claim)), names)
+        setting = right_setting(settle(turned(claim)), names)
         if setting is not None:
             return place, kind, setting
     return None

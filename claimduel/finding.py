@@ -1,14 +1,14 @@
 """A setting found at which a claim is so: case by case, as far as a number that was found is not right."""
 
 from claimduel.plain import is_right
-from claimduel.shapes import NO, free_names
-from claimduel.solving import solve
+from claimduel.shapes import NO
+from claimduel.solving import fresh_name, solve
 from claimduel.spreads import inner_of, joint, settle
 from claimduel.sums import form_times
 from claimduel.thinning import parts_for
 
 # The not of a division is looked at rest by rest up to this m.
-MOST_RESTS = 12
+MOST_RESTS = 500
 
 
 def named(literals):
@@ -16,8 +16,7 @@ def named(literals):
     found = []
     for literal in literals:
         if literal[0] == "rests" or is_great(literal):
-            # A number is no name, so it stands nowhere yet.
-            found.append((literal, f"{len(found)}"))
+            found.append((literal, fresh_name(len(found))))
     return found
 
 
@@ -58,28 +57,35 @@ def many_cases(part):
     return 2 if part[1][0] == "zero" else part[1][1] - 1
 
 
-def find(claim, names):
-    """A dict of numbers for these names, at which a settled claim without others is so; None if there is none."""
-    if claim == NO:
-        return None
-    parts = parts_for("and", claim)
-    found = found_for(parts)
-    if found is None:
-        return None
-    table = {name: found.get(name, 0) for name in names}
-    wrong = [(many_cases(part), at) for at, part in enumerate(parts) if not is_right(part, table)]
-    if not wrong:
-        return table
-    at = min(wrong)[1]
-    rest = parts[:at] + parts[at + 1:]
-    for case in cases_of(parts[at]):
-        told = find(settle(joint("and", [case] + rest)), names)
-        if told is not None:
-            return told
-    return None
+class Search:
+    """Looks for numbers, case by case, as long as no more cases are looked at than it may."""
 
+    def __init__(self, names, most):
+        self.names = names
+        self.left = most
 
-def found_setting(claim, names):
-    """As right_setting: an ascending tuple of pairs, for just these names; None if there is none."""
-    table = find(claim, list(names) + list(free_names(claim)))
-    return None if table is None else tuple(sorted({name: table[name] for name in names}.items()))
+    def is_spent(self):
+        """Whether it has given up: nothing is told then by what it did not find."""
+        return self.left == 0
+
+    def find(self, claim):
+        """A dict of numbers for the names, at which a settled claim without others is so; None if there is none."""
+        if claim == NO or self.is_spent():
+            return None
+        self.left -= 1
+        parts = parts_for("and", claim)
+        found = found_for(parts)
+        if found is None:
+            return None
+        table = {name: found.get(name, 0) for name in self.names}
+        wrong = [(many_cases(part), at) for at, part in enumerate(parts) if not is_right(part, table)]
+        return self.find_case(parts, min(wrong)[1]) if wrong else table
+
+    def find_case(self, parts, at):
+        """As find, for the "and" of these parts, by the cases of one of them."""
+        rest = parts[:at] + parts[at + 1:]
+        for case in cases_of(parts[at]):
+            found = self.find(settle(joint("and", [case] + rest)))
+            if found is not None:
+                return found
+        return None

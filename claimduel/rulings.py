@@ -87,13 +87,11 @@ class Counting:
         return many_in((self.m,) + lines_of(claim, self.m))
 
     def entry(self, number, other):
-        """The entry that tells how many are right at two integers."""
+        """The entry that tells how many are right at an integer, and at a greater one."""
         many, later = self.at(number), self.at(other)
         if many is None or later is None:
             return None
         slope, d = later - many, other - number
-        if d < 0:
-            slope, d = -slope, -d
         return entry_by(slope, many * d - slope * number, d)
 
     def stretch(self, first, last, step):

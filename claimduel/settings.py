@@ -1,18 +1,31 @@
 """Settings found at which a claim is so."""
 
+from claimduel.finding import Search
 from claimduel.plainly import with_numbers
 from claimduel.seeking import some_number
 from claimduel.shapes import NO, free_names
 from claimduel.striking import cheapest, strike
 from claimduel.thinning import settled_whole
 
+# So many cases are looked at before the names are struck.
+MOST_CASES = 500
+
 
 def right_setting(claim, names):
     """An ascending tuple of pairs, for just these names, at which a settled claim is so; None if there is none.
 
-    The names are all that are free in the claim, or more. One after the other they are struck; then,
-    from the last one on, each gets a number that is right with those behind it.
+    The names are all that are free in the claim, or more.
     """
+    if len(free_names(claim)) > 1:
+        search = Search(list(names), MOST_CASES)
+        table = search.find(claim)
+        if table is not None or not search.is_spent():
+            return None if table is None else tuple(sorted(table.items()))
+    return struck_setting(claim, names)
+
+
+def struck_setting(claim, names):
+    """As right_setting: one after the other the names are struck, then each gets a number right with those behind it."""
     stages = []
     left = list(free_names(claim))
     while left:

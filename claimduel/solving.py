@@ -32,13 +32,55 @@ def opposite(pairs):
     return tuple([(name, -factor) for name, factor in pairs])
 
 
+def fresh_name(number):
+    """What is no name, so that it stands in no claim."""
+    return f"-{number}"
+
+
+def told_by_zero(form, fresh):
+    """The name with the least factor of a form that is to be 0, and the form that is put in for it.
+
+    A factor 1 lets it be told; otherwise it is told by the fresh name, so that the other factors get less.
+    """
+    least, name = min([(abs(factor), name) for name, factor in form[1]])
+    factor, rest = factor_in(form, name), rest_without(form, name)
+    if least == 1:
+        return name, form_times(rest, -factor)
+    wholes = [(other, -((2 * by + factor) // (2 * factor))) for other, by in rest[1]]
+    pairs = [(other, by) for other, by in wholes if by != 0]
+    return name, form_sum((0, ((fresh_name(fresh), 1),)), (0, tuple(pairs)))
+
+
+def put_all(forms, name, form):
+    return [form_put(other, name, form) for other in forms]
+
+
 def solve(belows, zeros, fresh):
     """A dict of integers for which the ones are below 0, the others 0; None if there are none.
 
-    Names that it does not tell may have any numbers. From fresh on numbers, as strings, are names of its own.
+    Names that it does not tell may have any numbers. From this number on all fresh names are its own.
     """
-    if zeros:
-        return solve_zero(belows, zeros, fresh)
+    told = []
+    while zeros:
+        literal = slim(("zero", zeros[0]))
+        if literal == NO:
+            return None
+        if literal == YES:
+            zeros = zeros[1:]
+            continue
+        name, form = told_by_zero(literal[1], fresh)
+        told.append((name, form))
+        belows, zeros, fresh = put_all(belows, name, form), put_all(zeros, name, form), fresh + 1
+    found = solve_belows(belows, fresh)
+    if found is None:
+        return None
+    for name, form in reversed(told):
+        found = {**found, name: worth_in(form, found)}
+    return found
+
+
+def solve_belows(belows, fresh):
+    """As solve, where nothing else is to be 0."""
     table = tightest(belows)
     if table is None:
         return None
@@ -47,31 +89,8 @@ def solve(belows, zeros, fresh):
         if opposite(pairs) in table and table[pairs] + table[opposite(pairs)] >= -2:
             if table[pairs] + table[opposite(pairs)] > -2:
                 return None
-            return solve_zero([(table[other], other) for other in table], [(table[pairs] + 1, pairs)], fresh)
+            return solve([(table[other], other) for other in table], [(table[pairs] + 1, pairs)], fresh)
     return solve_bounds(table, fresh) if table else {}
-
-
-def put_all(forms, name, form):
-    return [form_put(other, name, form) for other in forms]
-
-
-def solve_zero(belows, zeros, fresh):
-    """As solve, where something is to be 0: by it a name is told, or, for no factor 1, made less."""
-    literal = slim(("zero", zeros[0]))
-    if literal in (YES, NO):
-        return None if literal == NO else solve(belows, zeros[1:], fresh)
-    form = literal[1]
-    least, name = min([(abs(factor), name) for name, factor in form[1]])
-    factor = factor_in(form, name)
-    rest = rest_without(form, name)
-    if least == 1:
-        told, left, after = form_times(rest, -factor), zeros[1:], fresh
-    else:
-        whole = [(other, -((2 * by + factor) // (2 * factor))) for other, by in rest[1]]
-        pairs = [(other, by) for other, by in whole if by != 0]
-        told, left, after = form_sum((0, ((f"{fresh}", 1),)), (0, tuple(pairs))), [form] + zeros[1:], fresh + 1
-    found = solve(put_all(belows, name, told), put_all(left, name, told), after)
-    return None if found is None else {**found, name: worth_in(told, found)}
 
 
 def bounds_by(table, name):

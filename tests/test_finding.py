@@ -4,7 +4,7 @@ import time
 import unittest
 from itertools import product
 
-from claimduel.finding import found_setting
+from claimduel.settings import right_setting, struck_setting
 from claimduel.solving import solve
 from claimduel.thinning import settled_whole
 from reckoning import plain_so, worth_at
@@ -24,10 +24,11 @@ def boxed(luck, names, most):
 
 class FindingTest(unittest.TestCase):
     def check(self, claim, names, ranges=None):
-        found = found_setting(settled_whole(claim), names)
+        found = right_setting(settled_whole(claim), names)
         if found is not None:
             self.assertEqual([name for name, _ in found], sorted(names))
             self.assertTrue(plain_so(claim, dict(found)), (claim, found))
+            self.assertIsNotNone(struck_setting(settled_whole(claim), names) if len(names) < 3 else 0)
         if ranges is not None:
             by_trial = any(plain_so(claim, dict(zip(ranges, numbers))) for numbers in product(*ranges.values()))
             self.assertEqual(found is not None, by_trial, claim)
@@ -61,8 +62,8 @@ class FindingTest(unittest.TestCase):
         self.assertIsNone(self.check(("and", zero(0, x=4, y=6, z=10), rests(2, 1, x=2, y=3, z=5)), "xyz") and None)
         self.assertIsNone(self.check(("and", ("not", rests(10 ** 9, 0, x=1)), zero(0, x=1, y=-10 ** 9)), "xy"))
         self.assertIsNotNone(self.check(("and", ("not", rests(10 ** 9, 0, x=1)), zero(0, x=1, y=-10 ** 8)), "xy"))
-        self.assertEqual(found_setting(("yes",), ("x", "a")), (("a", 0), ("x", 0)))
-        self.assertIsNone(found_setting(("no",), ("x",)))
+        self.assertEqual(right_setting(("yes",), ("x", "a")), (("a", 0), ("x", 0)))
+        self.assertIsNone(right_setting(("no",), ("x",)))
         far = 10 ** 31
         self.check(("and", below(-far, x=3, y=-2), below(far, x=-3, y=2), ("not", zero(-far, x=3, y=-2)), rests(4, 1, x=1, y=1)), "xy")
 
