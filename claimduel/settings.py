@@ -25,7 +25,7 @@ def right_setting(claim, names):
 
 
 def struck_setting(claim, names):
-    """As right_setting: the names are struck one after the other; then each gets a number right with those behind it."""
+    """As right_setting: the names are struck one by one; then each gets a number right with those behind it."""
     stages = []
     left = list(free_names(claim))
     while left:
