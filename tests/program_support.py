@@ -23,17 +23,22 @@ TURN = (("set", "r", form(-3, r=1)), ("set", "q", form(1, q=1)))
 THIRDS = Program(["a"], not_below(0, a=1), [("set", "r", form(0, a=1)), ("while", LEFT, KEPT, form(0, r=1), "w", TURN)],
                  ("and", KEPT, below(-3, r=1)))
 # Counts i from 0 to n; s gets 2 each time.
-COUNT = Program(["n"], not_below(0, n=1), [("while", below(0, i=1, n=-1), ("and", zero(0, s=1, i=-2), not_below(0, n=1, i=-1)),
-                                            form(0, n=1, i=-1), "w", [("set", "i", form(1, i=1)), ("set", "s", form(2, s=1))])],
+COUNT = Program(["n"], not_below(0, n=1), [("while", below(0, i=1, n=-1),
+                                            ("and", zero(0, s=1, i=-2), not_below(0, n=1, i=-1)),
+                                            form(0, n=1, i=-1), "w",
+                                            [("set", "i", form(1, i=1)), ("set", "s", form(2, s=1))])],
                 zero(0, s=1, n=-2))
 # The greater one of two.
-GREATER = Program(["a", "b"], YES, [("if", below(0, a=1, b=-1), [("set", "m", form(0, b=1))], [("set", "m", form(0, a=1))])],
-                  ("and", not_below(0, m=1, a=-1), not_below(0, m=1, b=-1), ("or", zero(0, m=1, a=-1), zero(0, m=1, b=-1))))
+GREATER = Program(["a", "b"], YES, [("if", below(0, a=1, b=-1), [("set", "m", form(0, b=1))],
+                                     [("set", "m", form(0, a=1))])],
+                  ("and", not_below(0, m=1, a=-1), not_below(0, m=1, b=-1),
+                   ("or", zero(0, m=1, a=-1), zero(0, m=1, b=-1))))
 # A loop in a loop: j goes from 0 to 2 for each i.
 NESTED = Program(["n"], not_below(0, n=1), [
     ("while", below(0, i=1, n=-1), not_below(0, n=1, i=-1), form(0, n=1, i=-1), "w", [
         ("set", "j", form(0)),
-        ("while", below(-2, j=1), ("and", below(0, i=1, n=-1), zero(0, n=1, i=-1, w=-1), not_below(2, j=-1)), form(2, j=-1), "v",
+        ("while", below(-2, j=1), ("and", below(0, i=1, n=-1), zero(0, n=1, i=-1, w=-1), not_below(2, j=-1)),
+         form(2, j=-1), "v",
          [("set", "j", form(1, j=1))]),
         ("set", "i", form(1, i=1))])], zero(0, i=1, n=-1))
 # Never ends: what it tells to fall does not.

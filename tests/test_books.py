@@ -17,10 +17,14 @@ from support import random_form, random_literal, random_tree, rests, told, zero
 YES, NO = ("yes",), ("no",)
 HALVES = ("all", "n", ("some", "x", ("or", zero(0, n=-1, x=2), zero(-1, n=-1, x=2))))
 UP, DOWN = ("at", 2, (1, (("n", 1),))), ("at", 2, (0, (("n", 1),)))
-BAD_ROWS = [None, "left", ("at",), ("at", 0, (0, ())), ("at", True, (0, ())), ("at", 1, (0,)), ("at", 1, (0, ()), ()), ("up", 1, (0, ())),
-            ("left", 2, 2, ()), ("left", -1, 2, ()), ("left", 0, 0, ()), ("right", 0, 1, (1, (0, ()))), ("right", 0, 1, [(0, (0, ()))]),
-            ("right", True, 2, ()), ("left", 0, 1), ("left", 0, 1, (), ()), Odd(), [Odd()], {}, 1, b"at", ("at", 1, Odd())]
-WITHOUT_BOOKS = [("count", "zero", (0, ()), ((1, "x", YES),)), ("endless", "x", YES), ("and", YES, ("not", ("endless", "x", NO))),
+BAD_ROWS = [None, "left", ("at",), ("at", 0, (0, ())), ("at", True, (0, ())), ("at", 1, (0,)), ("at", 1, (0, ()), ()),
+            ("up", 1, (0, ())),
+            ("left", 2, 2, ()), ("left", -1, 2, ()), ("left", 0, 0, ()), ("right", 0, 1, (1, (0, ()))),
+            ("right", 0, 1, [(0, (0, ()))]),
+            ("right", True, 2, ()), ("left", 0, 1), ("left", 0, 1, (), ()), Odd(), [Odd()], {}, 1, b"at",
+            ("at", 1, Odd())]
+WITHOUT_BOOKS = [("count", "zero", (0, ()), ((1, "x", YES),)), ("endless", "x", YES),
+                 ("and", YES, ("not", ("endless", "x", NO))),
                  ("some", "y", ("count", "below", (0, ()), ((1, "x", YES),)))]
 
 
@@ -80,7 +84,8 @@ def wins_by_trial(claim, book, table, numbers, place=(), keeper=0):
         numbers_here = [number for number in numbers_here if number is not None]
     else:
         numbers_here = numbers
-    return (any if is_own else all)(wins_by_trial(claim[2], book, {**table, claim[1]: number}, numbers, place + (0,), keeper)
+    return (any if is_own else all)(wins_by_trial(claim[2], book, {**table, claim[1]: number}, numbers, place + (0,),
+                                                  keeper)
                                     for number in numbers_here)
 
 
@@ -114,7 +119,8 @@ class GivenTest(unittest.TestCase):
         self.check(("right", 0, 1, ((1, (4, ())),)), {})
         far = given_by(("left", 7, 10 ** 30, ((1, (0, (("n", 1),))), (10 ** 28 + 1, (5, ())))), "x")
         for n, number in ((-4, 7 - 10 ** 30), (8, 7 - 10 ** 30), (7 - 10 ** 30, 7 - 2 * 10 ** 30)):
-            self.assertEqual([k for k in (-3, -2, -1, 0, 1) if plain_so(far, {"n": n, "x": number + k * 10 ** 30})], [0])
+            self.assertEqual([k for k in (-3, -2, -1, 0, 1) if plain_so(far, {"n": n, "x": number + k * 10 ** 30})],
+                             [0])
             self.assertFalse(plain_so(far, {"n": n, "x": number + 1}))
 
     def test_wrong(self):
@@ -145,8 +151,10 @@ class BookTest(unittest.TestCase):
     def test_wrong(self):
         for value in [*BAD_NUMBERS, 2, -1, 10 ** 50]:
             self.assertEqual(told(Book, value, None), ("BadNumber", "hand"))
-        bad = [None, 5, "x", {}, {(): []}, [None], [()], [((),)], [((), (), ())], [((), None)], [(0, ())], [((-1,), ())], [((True,), ())],
-               [((1.0,), ())], [("0", ())], [((), ()), ([], ())], [((0, 1), ()), ([0, 1], (UP,))], [((), UP)], Odd(), [Odd()], [(Odd(), ())],
+        bad = [None, 5, "x", {}, {(): []}, [None], [()], [((),)], [((), (), ())], [((), None)], [(0, ())],
+               [((-1,), ())], [((True,), ())],
+               [((1.0,), ())], [("0", ())], [((), ()), ([], ())], [((0, 1), ()), ([0, 1], (UP,))], [((), UP)], Odd(),
+               [Odd()], [(Odd(), ())],
                [((), Odd())], [((), [Odd()])]] + [[((), [UP, value])] for value in BAD_ROWS]
         for value in bad:
             self.assertEqual(told(Book, 0, value), ("BadRow", "rows"), value)
@@ -184,7 +192,8 @@ class WrittenTest(unittest.TestCase):
         book = Book(0, [((1, 0), [("at", 1, (0, (("n", 1),)))])])
         found = written(claim, book)
         self.assertTrue(is_claim(found))
-        self.assertEqual((found[0], found[1], found[2][0], found[2][1][:2]), ("and", below(0, n=1), "not", ("all", "x")))
+        self.assertEqual((found[0], found[1], found[2][0], found[2][1][:2]),
+                         ("and", below(0, n=1), "not", ("all", "x")))
         inner = found[2][1][2]
         self.assertEqual((inner[0], inner[2]), ("or", claim[2][1][2]))
         for n, x in ((4, 4), (4, 5), (-1, 0)):
@@ -201,15 +210,20 @@ class WrittenTest(unittest.TestCase):
     def test_places_and_names(self):
         claim = ("and", ("some", "x", ("all", "y", below(0, n=1, x=1, y=1))), ("not", ("all", "z", below(0, k=1, z=1))))
         row, other = ("at", 1, (0, (("n", 1),))), ("at", 1, (0, (("k", 1),)))
-        for rows in ([((0,), [row]), ((1, 0), [other, row])], [((0,), []), ((1, 0), [])], [((1, 0), [other]), ((0,), [other])]):
+        for rows in ([((0,), [row]), ((1, 0), [other, row])], [((0,), []), ((1, 0), [])],
+                     [((1, 0), [other]), ((0,), [other])]):
             self.assertIsNone(told(written, claim, Book(0, rows)))
-        for rows in ([], [((0,), [row])], [((0,), [row]), ((1,), [])], [((0,), [row]), ((1, 0), []), ((0, 0), [])], [((0,), []), ((2, 0), [])],
-                     [((0,), [("at", 1, (0, (("x", 1),)))]), ((1, 0), [])], [((0,), [("at", 1, (0, (("y", 1),)))]), ((1, 0), [])],
-                     [((0,), [("at", 1, (0, (("z", 1),)))]), ((1, 0), [])], [((0,), []), ((1, 0), [("at", 1, (0, (("x", 1),)))])],
+        for rows in ([], [((0,), [row])], [((0,), [row]), ((1,), [])], [((0,), [row]), ((1, 0), []), ((0, 0), [])],
+                     [((0,), []), ((2, 0), [])],
+                     [((0,), [("at", 1, (0, (("x", 1),)))]), ((1, 0), [])],
+                     [((0,), [("at", 1, (0, (("y", 1),)))]), ((1, 0), [])],
+                     [((0,), [("at", 1, (0, (("z", 1),)))]), ((1, 0), [])],
+                     [((0,), []), ((1, 0), [("at", 1, (0, (("x", 1),)))])],
                      [((0,), [row, ("left", 0, 1, ((1, (0, ())), (1, (1, (("q", 1),)))))]), ((1, 0), [])]):
             self.assertEqual(told(written, claim=claim, book=Book(0, rows)), ("Misfit", "book"), rows)
             self.assertIs(shows_book(claim, {"k": 0, "n": 0}, Book(0, rows)), False)
-        for names, error in (("n", None), ("k", None), ("x", None), ("y", ("Misfit", "book")), ("z", ("Misfit", "book"))):
+        for names, error in (("n", None), ("k", None), ("x", None), ("y", ("Misfit", "book")),
+                             ("z", ("Misfit", "book"))):
             rows = [((0, 0), [("right", 0, 1, ((1, (0, ((names, 1),))),))])]
             self.assertEqual(told(written, claim, Book(1, rows)), error, names)
         self.assertEqual(told(written, claim, Book(1, [((0,), []), ((1, 0), [])])), ("Misfit", "book"))
@@ -217,7 +231,8 @@ class WrittenTest(unittest.TestCase):
     def test_what_a_written_claim_says(self):
         luck = chance(211)
         for _ in range(60):
-            claim = random_bound(luck, random_tree(luck, [random_literal(luck, "nxy") for _ in range(2)]), "yx"[:luck.randint(1, 2)], ("some", "all"))
+            claim = random_bound(luck, random_tree(luck, [random_literal(luck, "nxy") for _ in range(2)]),
+                                 "yx"[:luck.randint(1, 2)], ("some", "all"))
             hand = luck.randint(0, 1)
             rows = []
             for place, name, bound in places_by(claim, hand):
@@ -232,7 +247,8 @@ class WrittenTest(unittest.TestCase):
 
 class BookForTest(unittest.TestCase):
     def check(self, luck, claim):
-        settings = [{name: luck.choice((luck.randint(-9, 9), 10 ** 30 + luck.randint(-9, 9))) for name in free_in(claim)}
+        settings = [{name: luck.choice((luck.randint(-9, 9), 10 ** 30 + luck.randint(-9, 9)))
+                     for name in free_in(claim)}
                     for _ in range(3)]
         for hand in (0, 1):
             book = book_for(claim, hand)
@@ -272,9 +288,11 @@ class BookForTest(unittest.TestCase):
     def test_one_level(self):
         luck = chance(212)
         for _ in range(60):
-            literals = [random_literal(luck, "nxy", ms=(2, 3, 4), factors=(-3, -2, -1, 1, 2, 3)) for _ in range(luck.randint(1, 5))]
+            literals = [random_literal(luck, "nxy", ms=(2, 3, 4), factors=(-3, -2, -1, 1, 2, 3))
+                        for _ in range(luck.randint(1, 5))]
             claim = random_bound(luck, random_tree(luck, literals), "x", ("some", "all"))
-            self.check(luck, random_tree(luck, [claim, random_literal(luck, "ny"), ("not", random_bound(luck, literals[0], "x", ("all",)))]))
+            self.check(luck, random_tree(luck, [claim, random_literal(luck, "ny"),
+                                                ("not", random_bound(luck, literals[0], "x", ("all",)))]))
 
     def test_more_levels(self):
         luck = chance(213)
@@ -288,7 +306,8 @@ class BookForTest(unittest.TestCase):
     def test_many_rests(self):
         luck = chance(214)
         for _ in range(10):
-            literals = [random_literal(luck, "klnxy", ("below", "zero", "below"), factors=(-3, 3, 2), span=10 ** 32 - 1, must="x") for _ in range(6)]
+            literals = [random_literal(luck, "klnxy", ("below", "zero", "below"), factors=(-3, 3, 2), span=10 ** 32 - 1,
+                                       must="x") for _ in range(6)]
             literals += [random_literal(luck, "klnxy", ("rests",), (12,), (-3, 3, 2, 1), must="x") for _ in range(2)]
             self.check(luck, ("some", "x", random_tree(luck, literals)))
             self.check(luck, ("all", "x", ("or", *literals)))
@@ -311,7 +330,9 @@ class ShownTest(unittest.TestCase):
         luck = chance(215)
         bent = 0
         for _ in range(80):
-            claim = random_bound(luck, random_tree(luck, [random_literal(luck, "nxy", ("below", "zero")) for _ in range(2)]), "yx", ("some", "all"))
+            claim = random_bound(luck, random_tree(luck,
+                                                   [random_literal(luck, "nxy", ("below", "zero")) for _ in range(2)]),
+                                                   "yx", ("some", "all"))
             setting = {name: luck.randint(-9, 9) for name in free_in(claim)}
             for hand in (0, 1):
                 rows = [(place, list(told)) for place, told in book_for(claim, hand).rows]
@@ -335,8 +356,10 @@ class ShownTest(unittest.TestCase):
         """Rows with any m: at one level the numbers that they give are told at once."""
         luck = chance(216)
         for _ in range(10):
-            claim = ("some", "x", random_tree(luck, [random_literal(luck, "nx", ms=(3, 4), must="x") for _ in range(4)]))
-            rows = [random_row(luck, "n", ms=(7, 11, 10 ** 20, 10 ** 30 + 1), ds=(1, 2, 10 ** 15), span=10 ** 30) for _ in range(200)]
+            claim = ("some", "x", random_tree(luck, [random_literal(luck, "nx", ms=(3, 4), must="x")
+                                                     for _ in range(4)]))
+            rows = [random_row(luck, "n", ms=(7, 11, 10 ** 20, 10 ** 30 + 1), ds=(1, 2, 10 ** 15), span=10 ** 30)
+                    for _ in range(200)]
             book = Book(0, [((), rows)])
             for n in (0, 7, 10 ** 30):
                 numbers = [number_of(row, {"n": n}) if row[0] == "at" else number_by(row, {"n": n}) for row in rows]
@@ -347,7 +370,8 @@ class ShownTest(unittest.TestCase):
         claim = ("all", "n", ("some", "x", ("and", below(0, n=1, x=-1), below(-100, n=-1, x=1))))
         n = (0, (("n", 1),))
         for m, is_won in ((97, True), (99, True), (100, False)):
-            rows = [("right", 5, m, ((1, n),)), ("at", 7, (3, (("n", 1),))), ("left", 3, 11, ((2, n), (3, (4, (("n", -1),)))))]
+            rows = [("right", 5, m, ((1, n),)), ("at", 7, (3, (("n", 1),))),
+                    ("left", 3, 11, ((2, n), (3, (4, (("n", -1),)))))]
             self.assertIs(shows_book(claim, {}, Book(0, [((0,), rows)])), is_won)
         rows = [("at", d, (k, (("n", 1),))) for d, k in ((2, 100), (3, 200), (5, 300), (7, 400), (11, 500), (13, 600))]
         self.assertIs(shows_book(claim, {}, Book(0, [((0,), rows)])), False)
@@ -375,7 +399,8 @@ class ByBookTest(unittest.TestCase):
         self.assertEqual(by_book(duel, Book(0, [((), [five, wanting])])), ("name", 5))
         self.assertEqual(told(by_book, duel, Book(0, [((), [four, wanting, five])])), ("NoName", "m"))
         self.assertEqual(told(by_book, duel, Book(0, [((), [wanting])])), ("NoName", "m"))
-        self.assertEqual(told(by_book, Duel(claim, {"b": 1, "m": 2, "q": 3}), Book(0, [((), [wanting])])), ("NoName", "z"))
+        self.assertEqual(told(by_book, Duel(claim, {"b": 1, "m": 2, "q": 3}), Book(0, [((), [wanting])])),
+                         ("NoName", "z"))
         told_all = Duel(claim, {"b": 3, "m": 3, "q": 3, "z": 4})
         self.assertEqual(by_book(told_all, Book(0, [((), [wanting])])), ("name", 5))
 

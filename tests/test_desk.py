@@ -20,16 +20,21 @@ HALF = "some x : ( -1 n + 2 x + 0 = 0 or -1 n + 2 x + -1 = 0 )"
 WEEK = "( 7 | 1 x + 0 and not -1 d + 1 x + 0 < 0 and -1 d + 1 x + -7 < 0 )"
 NAMED = ("drop", "duel", "text", "plain", "free", "judge", "so", "many", "least", "greatest", "all", "grows", "picture")
 LINES = (
-    "claim n1 3 x + 2 [ many y : ( 5 | 1 y + 0 and not 1 x + -1 y + -4 < 0 ) ] + -4 = 0", "claim a some x : endless y : yes", "drop half", "duel half n 7",
-    "duel half z 9 n -7", "move part 0", "move name -12", "move doubt 1 -5", "move take", "move lay -", "move lay 0 10 5 , 12 12 1", "move lay . -3 2 / 4 . 7 , 5 5 1 / -",
-    "reply", "stop", "names", "text half", "plain half", "free half", "judge half", "so half n 3 x 4", "so half", "follows half pay", "alike half pay", "many half n",
-    "many week x d 10", "least week x d 10", "greatest week x d -4 x 3", "all week x d 10", "grows week x d", "picture week x -3 12 d 5", "picture half n 0 0", "turn",
+    "claim n1 3 x + 2 [ many y : ( 5 | 1 y + 0 and not 1 x + -1 y + -4 < 0 ) ] + -4 = 0",
+    "claim a some x : endless y : yes", "drop half", "duel half n 7",
+    "duel half z 9 n -7", "move part 0", "move name -12", "move doubt 1 -5", "move take", "move lay -",
+    "move lay 0 10 5 , 12 12 1", "move lay . -3 2 / 4 . 7 , 5 5 1 / -",
+    "reply", "stop", "names", "text half", "plain half", "free half", "judge half", "so half n 3 x 4", "so half",
+    "follows half pay", "alike half pay", "many half n",
+    "many week x d 10", "least week x d 10", "greatest week x d -4 x 3", "all week x d 10", "grows week x d",
+    "picture week x -3 12 d 5", "picture half n 0 0", "turn",
     "wins", "left", "moves")
 
 
 def filled():
     desk = Desk()
-    for line in ("claim pay " + COINS, "claim half " + HALF, "claim week " + WEEK, "claim gap ( not 1 n + 0 < 0 and not " + COINS + " )"):
+    for line in ("claim pay " + COINS, "claim half " + HALF, "claim week " + WEEK,
+                 "claim gap ( not 1 n + 0 < 0 and not " + COINS + " )"):
         desk.told(line)
     return desk
 
@@ -69,18 +74,24 @@ class LinesTest(unittest.TestCase):
             self.refused(line + "  x", len(items))
             self.refused(" " + line, 0)
             self.refused("x " + line, 0)
-        for line in ("claim", "claim x", "drop", "duel", "duel half n", "move", "move part", "move name", "move doubt", "move doubt 1", "move lay", "move lay 1",
-                     "move lay 1 2", "move lay .", "move lay . 2", "move lay 1 .", "move lay 1 1 1 ,", "move lay 1 1 1 /", "move lay - /", "text", "plain", "free",
-                     "judge", "so", "so half n", "so half n 1 x", "follows", "follows half", "alike", "alike half", "many", "many half", "many half n x", "least half",
-                     "greatest half", "all half", "grows", "grows half", "grows half n", "picture", "picture half", "picture half n", "picture half n 1",
+        for line in ("claim", "claim x", "drop", "duel", "duel half n", "move", "move part", "move name", "move doubt",
+                     "move doubt 1", "move lay", "move lay 1",
+                     "move lay 1 2", "move lay .", "move lay . 2", "move lay 1 .", "move lay 1 1 1 ,",
+                     "move lay 1 1 1 /", "move lay - /", "text", "plain", "free",
+                     "judge", "so", "so half n", "so half n 1 x", "follows", "follows half", "alike", "alike half",
+                     "many", "many half", "many half n x", "least half",
+                     "greatest half", "all half", "grows", "grows half", "grows half n", "picture", "picture half",
+                     "picture half n", "picture half n 1",
                      "picture half n 1 2 x", "claim x 2 x + 1 <", "claim x some", "claim x not"):
             self.refused(line, len(line.split(" ")))
 
     def test_words(self):
-        for line in ("", "Claim x yes", "claims", "claim,", "back", "again", "-", "5", "yes", "and", "move part 1 ", " ", "part 1", "name 4", "some x : yes"):
+        for line in ("", "Claim x yes", "claims", "claim,", "back", "again", "-", "5", "yes", "and", "move part 1 ",
+                     " ", "part 1", "name 4", "some x : yes"):
             item = {"move part 1 ": 3}.get(line, 0)
             self.refused(line, item)
-        for value in [None, 5, b"names", ["names"], ("turn",), True, Odd(), [Odd()], {}, *[value for value in ODD_VALUES if not isinstance(value, str)]]:
+        for value in [None, 5, b"names", ["names"], ("turn",), True, Odd(), [Odd()], {},
+                      *[value for value in ODD_VALUES if not isinstance(value, str)]]:
             self.refused(value, 0)
 
     def test_names_of_claims(self):
@@ -99,11 +110,14 @@ class LinesTest(unittest.TestCase):
     def test_integers(self):
         most, far = "9" * 60, "1" + "0" * 60
         for number in (most, "-" + most, "0", "-5"):
-            for line in ("move name {}", "move doubt 0 {}", "so half n {}", "duel half n {}", "picture half n {} 5", "claim x 1 x + {} < 0"):
+            for line in ("move name {}", "move doubt 0 {}", "so half n {}", "duel half n {}", "picture half n {} 5",
+                         "claim x 1 x + {} < 0"):
                 self.stands(line.format(number))
         for number in (far, "-" + far, "+5", "05", "-0", "-", "5.0", "1e3", "", "x", "--5", "00", "\u0665", "5\n"):
-            for line, item in (("move name {}", 2), ("move doubt 0 {}", 3), ("move part {}", 2), ("move doubt {} 5", 2), ("so half n {}", 3), ("so half n 1 x {} y 5", 5),
-                               ("picture half n {} 5", 3), ("picture half n 5 {}", 4), ("picture half n 5 6 z {}", 6), ("move lay {} 5 1", 2), ("move lay 0 {} 1", 3),
+            for line, item in (("move name {}", 2), ("move doubt 0 {}", 3), ("move part {}", 2), ("move doubt {} 5", 2),
+                               ("so half n {}", 3), ("so half n 1 x {} y 5", 5),
+                               ("picture half n {} 5", 3), ("picture half n 5 {}", 4), ("picture half n 5 6 z {}", 6),
+                               ("move lay {} 5 1", 2), ("move lay 0 {} 1", 3),
                                ("move lay 0 5 {}", 4), ("claim x 1 x + {} < 0", 5)):
                 if number == "-" and line == "move lay {} 5 1":
                     self.refused(line.format(number), 3)
@@ -126,18 +140,23 @@ class LinesTest(unittest.TestCase):
         self.refused("so half some 1", 2)
 
     def test_texts(self):
-        for text in ("( yes and no or yes )", "all x : some x : yes", "2 x + 1 <", "1 | 2 x + 0", "2 y + 1 x + 0 = 0", "0 x + 1 < 0", "( yes )", "yes yes", "",
+        for text in ("( yes and no or yes )", "all x : some x : yes", "2 x + 1 <", "1 | 2 x + 0", "2 y + 1 x + 0 = 0",
+                     "0 x + 1 < 0", "( yes )", "yes yes", "",
                      "some x yes", "1 x + 1 < 1", "not", "maybe", "2 [ many x : yes ] + 0 = 0 )", "not " * 80 + "yes"):
             _, _, item = told(read_claim, text)
             self.refused("claim q " + text, item + 2)
         self.stands("claim q " + "not " * 79 + "yes")
 
     def test_layouts(self):
-        for text in ("-", "0 0 1", "0 0 7", "-5 10 3", ". 5 1", "5 . 9", ". 4 2 , 6 . 2", "1 9 2 , 2 8 2 , 11 11 1", "12 12 1 , 0 10 5", "- / - / 3 3 1"):
+        for text in ("-", "0 0 1", "0 0 7", "-5 10 3", ". 5 1", "5 . 9", ". 4 2 , 6 . 2", "1 9 2 , 2 8 2 , 11 11 1",
+                     "12 12 1 , 0 10 5", "- / - / 3 3 1"):
             self.stands("move lay " + text)
-        for text, item in ((". . 1", 1), ("5 4 1", 1), ("0 5 2", 2), ("0 5 0", 2), ("0 0 0", 2), ("0 4 -2", 2), (". 5 0", 2), ("5 . 0", 2), ("0 4 2 , 4 8 2", 6),
-                           ("0 4 2 , 1 1 1 , 4 4 1", 10), (". 5 1 , 3 3 1", 6), ("0 . 2 , 1 . 3", 6), ("- -", 1), ("- , 1 1 1", 1), ("0 0 1 ; 1 1 1", 3),
-                           ("0 0 1 1 1 1", 3), (", 0 0 1", 0), ("/ 0 0 1", 0), ("0 0 1 / / -", 4), ("0 4 2 , 4 8 2 / -", 6), ("3 - 1", 1), ("0 0 1 , -", 4),
+        for text, item in ((". . 1", 1), ("5 4 1", 1), ("0 5 2", 2), ("0 5 0", 2), ("0 0 0", 2), ("0 4 -2", 2),
+                           (". 5 0", 2), ("5 . 0", 2), ("0 4 2 , 4 8 2", 6),
+                           ("0 4 2 , 1 1 1 , 4 4 1", 10), (". 5 1 , 3 3 1", 6), ("0 . 2 , 1 . 3", 6), ("- -", 1),
+                           ("- , 1 1 1", 1), ("0 0 1 ; 1 1 1", 3),
+                           ("0 0 1 1 1 1", 3), (", 0 0 1", 0), ("/ 0 0 1", 0), ("0 0 1 / / -", 4),
+                           ("0 4 2 , 4 8 2 / -", 6), ("3 - 1", 1), ("0 0 1 , -", 4),
                            ("0 0 1 , 0 0 1", 6), ("x 0 1", 0), ("0 x 1", 1), ("0 0 x", 2), ("0 .. 1", 1)):
             self.refused("move lay " + text, item + 2)
         rows = " , ".join(f"{k} {k} 1" for k in range(1000))
@@ -164,21 +183,27 @@ class AnswersTest(unittest.TestCase):
     def test_examples_by_hand(self):
         desk = filled()
         for line, answer in (
-                ("names", "gap half pay week"), ("text half", HALF), ("free week", "d x"), ("free pay", "n"), ("so pay n 7", "no"), ("so pay x 1 n 8", "yes"),
-                ("judge half", "always"), ("follows gap half", "yes"), ("alike pay pay", "yes"), ("many gap n", "4"), ("many pay n", "endless"), ("least gap n", "1"),
-                ("greatest gap n", "7"), ("least pay n", "0"), ("greatest pay n", "-"), ("least half n", "-"), ("all week x d 10", "14 14 7"), ("grows week x d", "none"),
-                ("picture gap n 0 9", ".##.#..#.."), ("picture week x 13 15 d 10", ".#."), ("many half q n 3", "endless"), ("many pay q n 7", "0")):
+                ("names", "gap half pay week"), ("text half", HALF), ("free week", "d x"), ("free pay", "n"),
+                ("so pay n 7", "no"), ("so pay x 1 n 8", "yes"),
+                ("judge half", "always"), ("follows gap half", "yes"), ("alike pay pay", "yes"), ("many gap n", "4"),
+                ("many pay n", "endless"), ("least gap n", "1"),
+                ("greatest gap n", "7"), ("least pay n", "0"), ("greatest pay n", "-"), ("least half n", "-"),
+                ("all week x d 10", "14 14 7"), ("grows week x d", "none"),
+                ("picture gap n 0 9", ".##.#..#.."), ("picture week x 13 15 d 10", ".#."),
+                ("many half q n 3", "endless"), ("many pay q n 7", "0")):
             found = desk.told(line)
             if line.startswith("all"):
                 self.assertIn(found, ("14 14 7", "14 14 1"))
             else:
                 self.assertEqual(found, answer, line)
         self.assertEqual(desk.told("claim no1 no"), "-")
-        for line, answer in (("free no1", "-"), ("judge no1", "never"), ("many no1 x", "0"), ("all no1 x", "-"), ("least no1 x", "-"), ("plain no1", "no")):
+        for line, answer in (("free no1", "-"), ("judge no1", "never"), ("many no1 x", "0"), ("all no1 x", "-"),
+                             ("least no1 x", "-"), ("plain no1", "no")):
             self.assertEqual(desk.told(line), answer)
         self.assertEqual(Desk().told("names"), "-")
         self.assertEqual(desk.told("claim all1 yes"), "-")
-        self.assertEqual((desk.told("follows all1 no1"), desk.told("alike no1 all1"), desk.told("follows no1 all1")), ("no : -", "no : -", "yes"))
+        self.assertEqual((desk.told("follows all1 no1"), desk.told("alike no1 all1"), desk.told("follows no1 all1")),
+                         ("no : -", "no : -", "yes"))
         self.assertEqual(len(desk), 6)
 
     def test_asks_as_the_functions_tell(self):
@@ -187,7 +212,8 @@ class AnswersTest(unittest.TestCase):
             desk = Desk()
             claims = {}
             for name in ("one", "other"):
-                claim = random_bound(luck, random_tree(luck, [random_literal(luck, "nxy", must="x") for _ in range(2)]), "y")
+                claim = random_bound(luck, random_tree(luck, [random_literal(luck, "nxy", must="x") for _ in range(2)]),
+                                     "y")
                 claims[name] = claim
                 desk.told(f"claim {name} {claim_text(claim)}")
             one, other = claims["one"], claims["other"]
@@ -204,7 +230,8 @@ class AnswersTest(unittest.TestCase):
                 expected += f" : {table_text(verdict.yes)} : {table_text(verdict.no)}"
             self.assertEqual(desk.told("judge one"), expected)
             for word, paper in (("follows", follows(one, other)), ("alike", alike(one, other))):
-                self.assertEqual(desk.told(f"{word} one other"), "yes" if paper else "no : " + table_text(paper.setting))
+                self.assertEqual(desk.told(f"{word} one other"),
+                                 "yes" if paper else "no : " + table_text(paper.setting))
             many, least, greatest = (function(one, "x", setting) for function in (many_for, least_for, greatest_for))
             self.assertEqual(desk.told("many one x " + text), "endless" if many is None else str(many))
             self.assertEqual(desk.told("least one x " + text), "-" if least is None else str(least))
@@ -218,17 +245,25 @@ class AnswersTest(unittest.TestCase):
         desk = filled()
         desk.told("claim three ( 1 x + 0 < 0 or 1 y + 1 z + 0 = 0 )")
         for line, error in (
-                ("so half x 1", ("NoName", "n")), ("duel half", ("NoName", "n")), ("many week x", ("NoName", "d")), ("least week d", ("NoName", "x")),
-                ("all three y x 1", ("NoName", "z")), ("picture week d 0 5", ("NoName", "x")), ("picture week d 5 4", ("BadNumber", "last")),
-                ("picture week d 0 200", ("BadNumber", "last")), ("grows week x x", ("Misfit", "by")), ("grows three x y", ("Misfit", "claim")),
-                ("grows week d q", ("Misfit", "claim")), ("move part 0", ("Nothing",)), ("reply", ("Nothing",)), ("stop", ("Nothing",)), ("turn", ("Nothing",)),
-                ("wins", ("Nothing",)), ("left", ("Nothing",)), ("moves", ("Nothing",)), ("drop none", ("NoName", "none")), ("duel none n 1", ("NoName", "none")),
-                ("text none", ("NoName", "none")), ("follows none half", ("NoName", "none")), ("follows half none", ("NoName", "none")),
-                ("alike b a", ("NoName", "b")), ("so none", ("NoName", "none")), ("grows none x x", ("NoName", "none")), ("picture none x 5 4", ("NoName", "none"))):
+                ("so half x 1", ("NoName", "n")), ("duel half", ("NoName", "n")), ("many week x", ("NoName", "d")),
+                ("least week d", ("NoName", "x")),
+                ("all three y x 1", ("NoName", "z")), ("picture week d 0 5", ("NoName", "x")),
+                ("picture week d 5 4", ("BadNumber", "last")),
+                ("picture week d 0 200", ("BadNumber", "last")), ("grows week x x", ("Misfit", "by")),
+                ("grows three x y", ("Misfit", "claim")),
+                ("grows week d q", ("Misfit", "claim")), ("move part 0", ("Nothing",)), ("reply", ("Nothing",)),
+                ("stop", ("Nothing",)), ("turn", ("Nothing",)),
+                ("wins", ("Nothing",)), ("left", ("Nothing",)), ("moves", ("Nothing",)),
+                ("drop none", ("NoName", "none")), ("duel none n 1", ("NoName", "none")),
+                ("text none", ("NoName", "none")), ("follows none half", ("NoName", "none")),
+                ("follows half none", ("NoName", "none")),
+                ("alike b a", ("NoName", "b")), ("so none", ("NoName", "none")), ("grows none x x", ("NoName", "none")),
+                ("picture none x 5 4", ("NoName", "none"))):
             self.assertEqual(told(desk.told, line), error, line)
         self.assertEqual(len(desk), 5)
         desk.told("duel half n 7")
-        for line, error in (("move part 0", ("Misfit", "kind")), ("move take", ("Misfit", "kind")), ("move lay -", ("Misfit", "kind"))):
+        for line, error in (("move part 0", ("Misfit", "kind")), ("move take", ("Misfit", "kind")),
+                            ("move lay -", ("Misfit", "kind"))):
             self.assertEqual(told(desk.told, line), error)
         desk.told("move name 4")
         self.assertEqual(told(desk.told, "move part 2"), ("Misfit", "index"))
@@ -237,23 +272,28 @@ class AnswersTest(unittest.TestCase):
             self.assertEqual(told(desk.told, line), ("Over",))
         desk.told("claim count 1 [ many x : " + WEEK + " ] + -1 = 0")
         desk.told("duel count d 10")
-        for line, error in (("move lay - / -", ("Misfit", "layouts")), ("move lay 0 . 1", ("Misfit", "layouts")), ("move lay . 0 1", ("Misfit", "layouts"))):
+        for line, error in (("move lay - / -", ("Misfit", "layouts")), ("move lay 0 . 1", ("Misfit", "layouts")),
+                            ("move lay . 0 1", ("Misfit", "layouts"))):
             self.assertEqual(told(desk.told, line), error)
         desk.told("move lay 14 14 1")
         self.assertEqual(told(desk.told, "move doubt 1 3"), ("Misfit", "index"))
-        self.assertEqual(desk.log[-3:], ("claim count 1 [ many x : " + WEEK + " ] + -1 = 0", "duel count d 10", "move lay 14 14 1"))
+        self.assertEqual(desk.log[-3:], ("claim count 1 [ many x : " + WEEK + " ] + -1 = 0", "duel count d 10",
+                                         "move lay 14 14 1"))
 
     def test_a_duel(self):
         desk = filled()
         for line, answer in (
-                ("duel half z 3 n 7", "0 name"), ("left", HALF + " : n 7"), ("wins", "0"), ("moves", "-"), ("reply", "name 4"), ("turn", "0 part"), ("drop half", "-"),
-                ("wins", "0"), ("claim half no", "-"), ("moves", "name 4"), ("move part 1", "over 0"), ("turn", "over 0"), ("wins", "0"), ("moves", "name 4 / part 1"),
+                ("duel half z 3 n 7", "0 name"), ("left", HALF + " : n 7"), ("wins", "0"), ("moves", "-"),
+                ("reply", "name 4"), ("turn", "0 part"), ("drop half", "-"),
+                ("wins", "0"), ("claim half no", "-"), ("moves", "name 4"), ("move part 1", "over 0"),
+                ("turn", "over 0"), ("wins", "0"), ("moves", "name 4 / part 1"),
                 ("left", "-1 n + 2 x + -1 = 0 : n 7 x 4"), ("stop", "-")):
             self.assertEqual(desk.told(line), answer, line)
         self.assertEqual(told(desk.told, "stop"), ("Nothing",))
         desk.told("claim count 1 d + 1 [ many x : " + WEEK + " ] + 2 [ many y : no ] + -11 = 0")
         for line, answer in (
-                ("duel count d 10", "0 lay"), ("wins", "0"), ("move lay 10 16 3 , 11 11 1 / -", "1 doubt"), ("wins", "1"), ("move doubt 0 14", "0 part"),
+                ("duel count d 10", "0 lay"), ("wins", "0"), ("move lay 10 16 3 , 11 11 1 / -", "1 doubt"),
+                ("wins", "1"), ("move doubt 0 14", "0 part"),
                 ("moves", "lay 10 16 3 , 11 11 1 / - / doubt 0 14"), ("wins", "1"), ("reply", None), ("wins", "1")):
             found = desk.told(line)
             if answer is not None:
@@ -391,7 +431,8 @@ class DeskTest(unittest.TestCase):
         for _ in range(10):
             desk = filled()
             for _ in range(40):
-                line = luck.choice(("duel half n 7", "duel pay n 8", "duel gap n 4", "reply", "reply", "move name 3", "move part 0", "move part 1", "drop half", "stop",
+                line = luck.choice(("duel half n 7", "duel pay n 8", "duel gap n 4", "reply", "reply", "move name 3",
+                                    "move part 0", "move part 1", "drop half", "stop",
                                     "claim half " + HALF, "claim pay yes", "back", "again"))
                 if line in ("back", "again"):
                     told(desk.back if line == "back" else desk.again)
@@ -414,7 +455,8 @@ class DeskTest(unittest.TestCase):
                 answer = desk.told(f"duel c n {n}")
                 while not answer.startswith("over"):
                     self.assertEqual(desk.told("wins"), str(hand))
-                    desk.told("reply" if answer[0] == str(hand) or n % 2 else "move " + ("name 1" if answer[2:] == "name" else "part 0"))
+                    desk.told("reply" if answer[0] == str(hand)
+                              or n % 2 else "move " + ("name 1" if answer[2:] == "name" else "part 0"))
                     answer = desk.told("turn")
                 self.assertEqual(answer, f"over {hand}")
                 self.assertEqual(desk.told(f"so c n {n}"), "yes" if hand == 0 else "no")

@@ -41,7 +41,8 @@ class FindingTest(unittest.TestCase):
             names = "xyz"[:luck.randint(1, 3)]
             ranges, literals = boxed(luck, names, 5)
             factors = luck.choice(((-1, 1), (-3, -2, 2, 3), (-7, 7, 5, -5, 4)))
-            more = [random_literal(luck, names, ms=(2, 3, 5, 13, 20), factors=factors, span=12) for _ in range(luck.randint(1, 5))]
+            more = [random_literal(luck, names, ms=(2, 3, 5, 13, 20), factors=factors, span=12)
+                    for _ in range(luck.randint(1, 5))]
             inner = ("and", *more) if len(more) > 1 and luck.random() < 0.6 else random_tree(luck, more)
             many[self.check(("and", *literals, inner), names, ranges) is None] += 1
         self.assertGreater(min(many.values()), 100)
@@ -50,7 +51,8 @@ class FindingTest(unittest.TestCase):
         luck = chance(271)
         for _ in range(300):
             names = "wxyz"[:luck.randint(1, 4)]
-            literals = [random_literal(luck, names, ms=(2, 3, 7), factors=(-5, -3, -1, 1, 2, 4)) for _ in range(luck.randint(2, 6))]
+            literals = [random_literal(luck, names, ms=(2, 3, 7), factors=(-5, -3, -1, 1, 2, 4))
+                        for _ in range(luck.randint(2, 6))]
             self.check(random_tree(luck, literals), names)
 
     def test_by_hand(self):
@@ -65,7 +67,8 @@ class FindingTest(unittest.TestCase):
         self.assertEqual(right_setting(("yes",), ("x", "a")), (("a", 0), ("x", 0)))
         self.assertIsNone(right_setting(("no",), ("x",)))
         far = 10 ** 31
-        self.check(("and", below(-far, x=3, y=-2), below(far, x=-3, y=2), ("not", zero(-far, x=3, y=-2)), rests(4, 1, x=1, y=1)), "xy")
+        self.check(("and", below(-far, x=3, y=-2), below(far, x=-3, y=2), ("not", zero(-far, x=3, y=-2)),
+                    rests(4, 1, x=1, y=1)), "xy")
 
     def test_solving(self):
         luck = chance(272)
@@ -81,7 +84,8 @@ class FindingTest(unittest.TestCase):
             near = product(range(-9, 10), repeat=len(names))
             if found is None:
                 self.assertFalse(any(all(worth_at(other, dict(zip(names, numbers))) < 0 for other in belows)
-                                     and all(worth_at(other, dict(zip(names, numbers))) == 0 for other in zeros) for numbers in near))
+                                     and all(worth_at(other, dict(zip(names, numbers))) == 0 for other in zeros)
+                                     for numbers in near))
             else:
                 table = {**{name: 0 for name in names}, **found}
                 self.assertTrue(all(worth_at(other, table) < 0 for other in belows), (belows, zeros, found))
@@ -90,7 +94,8 @@ class FindingTest(unittest.TestCase):
     def test_times(self):
         luck = chance(273)
         for _ in range(40):
-            literals = [random_literal(luck, "wxyz", factors=(-3, -2, -1, 1, 2, 3), ms=(2, 3, 4), must="wx") for _ in range(12)]
+            literals = [random_literal(luck, "wxyz", factors=(-3, -2, -1, 1, 2, 3), ms=(2, 3, 4), must="wx")
+                        for _ in range(12)]
             start = time.perf_counter()
             self.check(random_tree(luck, literals), "wxyz")
             self.check(("and", *literals[:7]), "wxyz")

@@ -26,10 +26,12 @@ FUNCTIONS = {
     "counted": {"counted": "kind form rows"},
     "meaning": {"plain_of": "claim", "is_so": "claim setting"},
     "verdicts": {"judged": "claim", "follows": "one other", "alike": "one other"},
-    "questions": {"all_for": "claim name setting", "least_for": "claim name setting", "greatest_for": "claim name setting",
+    "questions": {"all_for": "claim name setting", "least_for": "claim name setting",
+                  "greatest_for": "claim name setting",
                   "many_for": "claim name setting", "told_by": "claim name", "without": "claim names",
                   "between": "one other"},
-    "check_verdicts": {"shows_judged": "claim value", "shows_follows": "one other value", "shows_alike": "one other value",
+    "check_verdicts": {"shows_judged": "claim value", "shows_follows": "one other value",
+                       "shows_alike": "one other value",
                        "shows_told": "claim name value"},
     "moves": {"wins": "duel", "best": "duel"},
     "books": {"given_by": "row name", "book_for": "claim hand", "written": "claim book", "by_book": "duel book"},
@@ -57,13 +59,15 @@ CLASSES = {
 }
 METHODS = {
     "papers": {"Paper": {"__eq__": "self other"}},
-    "layouts": {"Layout": {"has": "self number", "many": "self", "least": "self", "greatest": "self", "same": "self other",
+    "layouts": {"Layout": {"has": "self number", "many": "self", "least": "self", "greatest": "self",
+                           "same": "self other",
                            "__eq__": "self other"}},
     "duels": {"Duel": {"move": "self move", "twin": "self"}},
     "books": {"Book": {"__eq__": "self other"}},
     "rules": {"Rule": {"at": "self number", "__eq__": "self other"}},
     "programs": {"Program": {"__eq__": "self other"}},
-    "desk": {"Desk": {"told": "self line", "back": "self", "again": "self", "twin": "self", "__len__": "self", "__eq__": "self other"}},
+    "desk": {"Desk": {"told": "self line", "back": "self", "again": "self", "twin": "self", "__len__": "self",
+                      "__eq__": "self other"}},
 }
 
 

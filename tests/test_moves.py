@@ -19,7 +19,8 @@ def layout(*numbers):
 
 
 def stand(duel):
-    return (duel.claim, duel.setting, duel.keeper, duel.place, duel.bound, duel.laid, duel.kind, duel.turn, duel.winner, duel.moves)
+    return (duel.claim, duel.setting, duel.keeper, duel.place, duel.bound, duel.laid, duel.kind, duel.turn, duel.winner,
+            duel.moves)
 
 
 def drawn_layout(luck, right):
@@ -41,7 +42,8 @@ def drawn_move(luck, duel):
     if duel.kind == "part":
         return ("part", luck.randrange(len(duel.claim) - 1))
     if duel.kind == "name":
-        return ("name", luck.choice((luck.randint(-6, 6), luck.randint(-40, 40), luck.choice((-1, 1)) * 10 ** luck.randint(3, 40))))
+        return ("name", luck.choice((luck.randint(-6, 6), luck.randint(-40, 40),
+                                     luck.choice((-1, 1)) * 10 ** luck.randint(3, 40))))
     if duel.kind == "lay":
         return ("lay", [drawn_layout(luck, all_for(part, name, duel.setting)) for _, name, part in duel.claim[3]])
     if luck.random() < 0.3:
@@ -111,16 +113,19 @@ class MovesTest(unittest.TestCase):
     def play_all(self, luck, claim):
         names = free_in(claim)
         for player in PLAYERS:
-            setting = {name: luck.choice((luck.randint(-9, 9), luck.randint(-9, 9), 10 ** 30 + luck.randint(-9, 9))) for name in names}
+            setting = {name: luck.choice((luck.randint(-9, 9), luck.randint(-9, 9), 10 ** 30 + luck.randint(-9, 9)))
+                       for name in names}
             self.play(luck, claim, setting, player)
             self.play(luck, contrary(claim), setting, player)
 
     def test_one_level(self):
         luck = chance(200)
         for _ in range(60):
-            literals = [random_literal(luck, "nxy", ms=(2, 3, 4), factors=(-3, -2, -1, 1, 2, 3)) for _ in range(luck.randint(1, 5))]
+            literals = [random_literal(luck, "nxy", ms=(2, 3, 4), factors=(-3, -2, -1, 1, 2, 3))
+                        for _ in range(luck.randint(1, 5))]
             claim = random_bound(luck, random_tree(luck, literals), "x", ("some", "all", "endless"))
-            self.play_all(luck, random_tree(luck, [claim, random_literal(luck, "ny"), ("not", random_literal(luck, "n"))]))
+            self.play_all(luck, random_tree(luck, [claim, random_literal(luck, "ny"),
+                                                   ("not", random_literal(luck, "n"))]))
 
     def test_more_levels(self):
         luck = chance(201)
@@ -134,9 +139,11 @@ class MovesTest(unittest.TestCase):
     def test_how_manys(self):
         luck = chance(202)
         for k in range(40):
-            inner = ("and", random_literal(luck, "nx", ("below",), must="x"), random_literal(luck, "kx", ("below",), must="x"))
+            inner = ("and", random_literal(luck, "nx", ("below",), must="x"),
+                     random_literal(luck, "kx", ("below",), must="x"))
             if k % 2:
-                inner = ("and", from_to("x", luck.randint(-9, 3), luck.randint(-3, 9)), random_literal(luck, "nx", must="x", ms=(2, 3, 4)))
+                inner = ("and", from_to("x", luck.randint(-9, 3), luck.randint(-3, 9)),
+                         random_literal(luck, "nx", must="x", ms=(2, 3, 4)))
             rows = [(luck.choice((-2, -1, 1, 2)), "x", inner)]
             if k % 3 == 0:
                 rows.append((luck.choice((-1, 1)), "y", from_to("y", -2, luck.randint(-2, 4))))
@@ -159,12 +166,14 @@ class MovesTest(unittest.TestCase):
             self.play_all(luck, ("all", "n", ("or", below(-40, n=1), claim)))
             self.play_all(luck, ("endless", "n", claim))
             self.play_all(luck, ("endless", "n", ("and", ("not", below(0, n=1)), ("not", claim))))
-            self.play_all(luck, ("count", "zero", (-4, ()), ((1, "n", ("and", ("not", below(0, n=1)), ("not", claim))),)))
+            self.play_all(luck, ("count", "zero", (-4, ()),
+                                 ((1, "n", ("and", ("not", below(0, n=1)), ("not", claim))),)))
 
     def test_divisions(self):
         luck = chance(204)
         for _ in range(20):
-            literals = [random_literal(luck, "x", ("rests",), (3, 4, 5, 7, 60, 84, 105, 420), (1, 2, 3)) for _ in range(6)]
+            literals = [random_literal(luck, "x", ("rests",), (3, 4, 5, 7, 60, 84, 105, 420), (1, 2, 3))
+                        for _ in range(6)]
             self.play_all(luck, random_bound(luck, random_tree(luck, literals), "x"))
 
     def test_against_trial(self):
@@ -193,7 +202,8 @@ class MovesTest(unittest.TestCase):
 
     def test_endless_bounds(self):
         right = both([("not", below(0, x=1)), rests(5, 2, x=1)])
-        for claim, numbers in ((("endless", "x", right), (3, 8, 13)), (("endless", "x", ("not", below(0, x=-1))), (-1, -10 ** 30))):
+        for claim, numbers in ((("endless", "x", right), (3, 8, 13)),
+                               (("endless", "x", ("not", below(0, x=-1))), (-1, -10 ** 30))):
             for bound in (0, 1, -1, 7, -7, 10 ** 40, -10 ** 40):
                 duel = Duel(claim, {})
                 self.assertEqual((wins(duel), duel.turn), (0, 1))
@@ -211,7 +221,8 @@ class MovesTest(unittest.TestCase):
             self.assertEqual((wins(duel), duel.turn), (1, 0))
             self.assertEqual(best(duel)[0], "name")
         # A bound that is too near lets the keeper win, though the claim is not so.
-        for bound, hand, numbers in ((7, 0, (-7,)), (-7, 0, (-7,)), (5, 0, (-7, -6, -5)), (8, 1, None), (0, 0, range(-7, 4)), (-3, 0, None)):
+        for bound, hand, numbers in ((7, 0, (-7,)), (-7, 0, (-7,)), (5, 0, (-7, -6, -5)), (8, 1, None),
+                                     (0, 0, range(-7, 4)), (-3, 0, None)):
             duel = Duel(few, {})
             duel.move(("name", bound))
             self.assertEqual(wins(duel), hand)
@@ -224,7 +235,8 @@ class MovesTest(unittest.TestCase):
         self.assertTrue(move[1][0].same(layout))
 
     def test_layouts_laid(self):
-        week = ("count", "zero", (-1, ()), ((1, "x", both([rests(7, 0, x=1), below(-1, d=1, x=-1), below(-7, d=-1, x=1)])),))
+        week = ("count", "zero", (-1, ()), ((1, "x", both([rests(7, 0, x=1), below(-1, d=1, x=-1),
+                                                           below(-7, d=-1, x=1)])),))
         for d in (10, -10 ** 40, 10 ** 30 + 3):
             duel = Duel(week, {"d": d})
             monday = next(x for x in range(d, d + 7) if x % 7 == 0)
@@ -245,7 +257,8 @@ class MovesTest(unittest.TestCase):
                 other.move(move)
                 self.assertEqual(wins(other), hand)
         # Rows of many numbers, with one number more or less, far away.
-        great = ("count", "below", (-10 ** 50, ()), ((1, "x", both([from_to("x", 0, 6 * 10 ** 30 + 1), rests(2, 0, x=1)])),))
+        great = ("count", "below", (-10 ** 50, ()), ((1, "x",
+                                                      both([from_to("x", 0, 6 * 10 ** 30 + 1), rests(2, 0, x=1)])),))
         duel = Duel(great, {})
         self.assert_laid(best(duel), Layout([(0, 6 * 10 ** 30, 2)]))
         for rows, number in (([(0, 6 * 10 ** 30, 2)], None), ([(0, 6 * 10 ** 30 - 2, 2)], 6 * 10 ** 30),

@@ -19,16 +19,19 @@ class PictureTest(unittest.TestCase):
         self.assertEqual(picture(GAP, "n", {"n": 4, "q": 1}, -3, 1), "....#")
         self.assertEqual(picture(("yes",), "n", (), -10 ** 40, -10 ** 40 + 2), "###")
         self.assertEqual(picture(("no",), "n", (), 7, 7), ".")
-        self.assertEqual(picture(zero(-10 ** 40, n=1, x=1), name="x", setting=[("n", 3)], first=10 ** 40 - 5, last=10 ** 40), "..#...")
+        self.assertEqual(picture(zero(-10 ** 40, n=1, x=1), name="x", setting=[("n", 3)], first=10 ** 40 - 5,
+                                 last=10 ** 40), "..#...")
 
     def test_at_random(self):
         luck = chance(250)
         for _ in range(150):
-            claim = random_tree(luck, [random_literal(luck, "nxy", ms=(2, 3, 4, 12), factors=(-3, -2, -1, 1, 2, 3)) for _ in range(4)])
+            claim = random_tree(luck, [random_literal(luck, "nxy", ms=(2, 3, 4, 12), factors=(-3, -2, -1, 1, 2, 3))
+                                       for _ in range(4)])
             first = luck.choice((luck.randint(-30, 9), -10 ** 40, 10 ** 40 - 3))
             last = first + luck.choice((0, 1, 30, 199))
             setting = {"n": luck.randint(-9, 9), "y": luck.choice((3, -10 ** 40, 10 ** 40))}
-            signs = "".join("#" if plain_so(claim, {**setting, "x": number}) else "." for number in range(first, last + 1))
+            signs = "".join("#" if plain_so(claim, {**setting, "x": number}) else "."
+                            for number in range(first, last + 1))
             self.assertEqual(picture(claim, "x", setting, first, last), signs)
 
     def test_bound_names(self):
@@ -63,14 +66,17 @@ class PictureTest(unittest.TestCase):
 
 class TextsTest(unittest.TestCase):
     def test_layouts(self):
-        for rows, text in (([], "-"), ([(3, 3, 1)], "3 3 1"), ([(12, 12, 1), (0, 10, 5), (None, -3, 2)], ". -3 2 , 0 10 5 , 12 12 1"),
-                           ([(0, None, 1)], "0 . 1"), ([(None, -10 ** 40, 7)], f". -{10 ** 40} 7"), ([(2, None, 2), (1, None, 2)], "1 . 2 , 2 . 2")):
+        for rows, text in (([], "-"), ([(3, 3, 1)], "3 3 1"),
+                           ([(12, 12, 1), (0, 10, 5), (None, -3, 2)], ". -3 2 , 0 10 5 , 12 12 1"),
+                           ([(0, None, 1)], "0 . 1"), ([(None, -10 ** 40, 7)], f". -{10 ** 40} 7"),
+                           ([(2, None, 2), (1, None, 2)], "1 . 2 , 2 . 2")):
             self.assertEqual(layout_text(Layout(rows)), text)
         for value in [*ODD_VALUES, Odd(), Layout]:
             self.assertEqual(told(layout_text, layout=value), ("BadLayout", "layout"))
 
     def test_settings(self):
-        for value, text in (({}, "-"), ((), "-"), ({"y": 4, "x": -1}, "x -1 y 4"), ([["b1", 0]], "b1 0"), ([("z", 10 ** 40), ("a", 1)], f"a 1 z {10 ** 40}")):
+        for value, text in (({}, "-"), ((), "-"), ({"y": 4, "x": -1}, "x -1 y 4"), ([["b1", 0]], "b1 0"),
+                            ([("z", 10 ** 40), ("a", 1)], f"a 1 z {10 ** 40}")):
             self.assertEqual(setting_text(value), text)
         for value in BAD_SETTINGS:
             self.assertEqual(told(setting_text, setting=value), ("BadSetting", "setting"))

@@ -44,21 +44,24 @@ class ProgramTest(unittest.TestCase):
         self.assertEqual((empty.inputs, empty.needs, empty.rows, empty.gives, empty.names), ((), YES, (), YES, ()))
         six = Program(["a", "b", "c", "d", "e", "f"], zero(0, a=1, f=1), [], zero(0, b=1))
         self.assertEqual(six.names, ("a", "b", "c", "d", "e", "f"))
-        for rows in ([("if", YES, [], [])], [("while", YES, YES, (0, ()), "w", [])], [("if", zero(0, x=1), [SET], [SET])]):
+        for rows in ([("if", YES, [], [])], [("while", YES, YES, (0, ()), "w", [])],
+                     [("if", zero(0, x=1), [SET], [SET])]):
             self.assertIsNone(told(Program, [], YES, rows, YES))
 
     def refused(self, part, inputs=("a",), needs=YES, rows=(), gives=YES):
         self.assertEqual(told(Program, inputs, needs, rows, gives), ("BadProgram", part), (inputs, needs, rows, gives))
 
     def test_inputs(self):
-        for inputs in (["a", "a"], ["a", "b", "c", "d", "e", "f", "g"], ["A"], ["some"], [1], "a", None, {"a": 1}, [("a",)], Odd(), [Odd()]):
+        for inputs in (["a", "a"], ["a", "b", "c", "d", "e", "f", "g"], ["A"], ["some"], [1], "a", None, {"a": 1},
+                       [("a",)], Odd(), [Odd()]):
             self.refused("inputs", inputs, None, None, None)
         for value in ODD_VALUES:
             if not isinstance(value, (list, tuple)) or len(value) != 0 and not isinstance(value[0], str):
                 self.refused("inputs", value, None, None, None)
 
     def test_needs_and_gives(self):
-        bad = [None, "yes", ("and", YES), ("some", "a", YES), ("count", "zero", (0, ()), ((1, "a", YES),)), below(0, b=1), Odd(), [Odd()],
+        bad = [None, "yes", ("and", YES), ("some", "a", YES), ("count", "zero", (0, ()), ((1, "a", YES),)),
+               below(0, b=1), Odd(), [Odd()],
                ("or", YES, zero(0, a=1, b=1)), ("yes", 1), zero(0, w=1)]
         for value in bad:
             self.refused("needs", needs=value, rows=None, gives=None)
@@ -72,17 +75,26 @@ class ProgramTest(unittest.TestCase):
 
     def test_rows_bent(self):
         form = (0, (("a", 1),))
-        for row in (None, (), "set", ("set",), ("set", "x"), ("set", "X", form), ("set", "x", (0,)), ("set", "x", form, 1), ("Set", "x", form),
-                    ("set", "x", (0, (("z", 1),))), ("set", 1, form), ("if", YES, []), ("if", YES, [], [], []), ("if", None, [], []),
-                    ("if", ("some", "a", YES), [], []), ("if", YES, None, []), ("if", YES, [], None), ("if", YES, [None], []),
-                    ("if", YES, [], [()]), ("if", zero(0, z=1), [], []), ("if", YES, SET, []), ("while", YES, YES, form, "w"),
-                    ("while", YES, YES, form, "w", [], []), ("while", None, YES, form, "w", []), ("while", YES, None, form, "w", []),
-                    ("while", YES, YES, (0,), "w", []), ("while", YES, YES, form, "W", []), ("while", YES, YES, form, "w", None),
+        for row in (None, (), "set", ("set",), ("set", "x"), ("set", "X", form), ("set", "x", (0,)),
+                    ("set", "x", form, 1), ("Set", "x", form),
+                    ("set", "x", (0, (("z", 1),))), ("set", 1, form), ("if", YES, []), ("if", YES, [], [], []),
+                    ("if", None, [], []),
+                    ("if", ("some", "a", YES), [], []), ("if", YES, None, []), ("if", YES, [], None),
+                    ("if", YES, [None], []),
+                    ("if", YES, [], [()]), ("if", zero(0, z=1), [], []), ("if", YES, SET, []),
+                    ("while", YES, YES, form, "w"),
+                    ("while", YES, YES, form, "w", [], []), ("while", None, YES, form, "w", []),
+                    ("while", YES, None, form, "w", []),
+                    ("while", YES, YES, (0,), "w", []), ("while", YES, YES, form, "W", []),
+                    ("while", YES, YES, form, "w", None),
                     ("while", YES, YES, form, "w", [None]), ("while", zero(0, z=1), YES, form, "w", []),
                     ("while", YES, YES, (0, (("z", 1),)), "w", []),
-                    ("while", YES, ("all", "a", YES), form, "w", []), ("while", YES, YES, form, "a", []), ("while", YES, YES, form, "x", [SET]),
-                    ("while", YES, YES, form, "w", [("set", "w", form)]), ("for", "x", form), Odd(), (Odd(),), ("set", Odd(), form),
-                    ("set", "x", Odd()), ("if", Odd(), [], []), ("while", YES, YES, form, Odd(), []), {}, (b"set", "x", form)):
+                    ("while", YES, ("all", "a", YES), form, "w", []), ("while", YES, YES, form, "a", []),
+                    ("while", YES, YES, form, "x", [SET]),
+                    ("while", YES, YES, form, "w", [("set", "w", form)]), ("for", "x", form), Odd(), (Odd(),),
+                    ("set", Odd(), form),
+                    ("set", "x", Odd()), ("if", Odd(), [], []), ("while", YES, YES, form, Odd(), []), {},
+                    (b"set", "x", form)):
             self.refused("rows", rows=[SET, row], gives=None)
             self.refused("rows", rows=[("if", YES, [], [SET, row])], gives=None)
             self.refused("rows", rows=[("while", YES, YES, form, "v", [row])], gives=None)
@@ -98,7 +110,8 @@ class ProgramTest(unittest.TestCase):
     def test_names(self):
         """The was of any loop may stand anywhere, names that are set later or elsewhere, too."""
         names = (0, (("a", 1), ("v", 1), ("w", 1), ("x", 1), ("y", 1)))
-        rows = [("set", "x", names), ("while", ("zero", names), YES, names, "w", [("if", ("zero", names), [("set", "y", names)], [])]),
+        rows = [("set", "x", names), ("while", ("zero", names), YES, names, "w",
+                                      [("if", ("zero", names), [("set", "y", names)], [])]),
                 ("while", ("zero", names), below(0, v=1, w=1), names, "v", [])]
         program = Program(["a"], YES, rows, ("zero", names))
         self.assertEqual(program.names, ("a", "v", "w", "x", "y"))

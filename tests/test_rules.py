@@ -66,7 +66,8 @@ class RuleTest(unittest.TestCase):
     def test_what_is_told(self):
         rows = [[None, -1, [(0, 0, 1)]], (0, 9, [None, [3, -3, 6]]), (10, None, [(1, 2, 2), (1, 1, 2)])]
         rule = Rule(rows)
-        self.assertEqual(rule.rows, ((None, -1, ((0, 0, 1),)), (0, 9, (None, (3, -3, 6))), (10, None, ((1, 2, 2), (1, 1, 2)))))
+        self.assertEqual(rule.rows, ((None, -1, ((0, 0, 1),)), (0, 9, (None, (3, -3, 6))),
+                                     (10, None, ((1, 2, 2), (1, 1, 2)))))
         self.assertEqual([rule.at(n) for n in (-10 ** 40, -1, 0, 1, 2, 3, 9, 10, 11, 10 ** 40)],
                          [0, 0, None, 0, None, 1, 4, 6, 6, 5 * 10 ** 39 + 1])
         self.assertEqual(rule, Rule(lists(rule.rows)))
@@ -88,16 +89,24 @@ class RuleTest(unittest.TestCase):
     def test_stretches_bent(self):
         zero_row = [(0, 0, 1)]
         for rows in ([], [(0, None, zero_row)], [(None, 0, zero_row)], [(None, 0, zero_row), (2, None, zero_row)],
-                     [(None, 0, zero_row), (0, None, zero_row)], [(None, 0, zero_row), (1, None, zero_row), (2, None, zero_row)],
+                     [(None, 0, zero_row), (0, None, zero_row)],
+                     [(None, 0, zero_row), (1, None, zero_row), (2, None, zero_row)],
                      [(None, None, zero_row), (None, None, zero_row)], [(None, 0, zero_row), (None, None, zero_row)],
-                     [(None, 0, zero_row), (1, 0, zero_row), (1, None, zero_row)], [(None, 3, zero_row), (4, 3, zero_row), (4, None, zero_row)],
-                     [(1, None, zero_row), (None, 0, zero_row)], [(None, None, [])], [(None, None)], [(None, None, zero_row, 1)],
-                     [(None, None, (0, 0, 1))], [(None, None, [(0, 0)])], [(None, None, [(0, 0, 0)])], [(None, None, [(0, 0, -1)])],
+                     [(None, 0, zero_row), (1, 0, zero_row), (1, None, zero_row)],
+                     [(None, 3, zero_row), (4, 3, zero_row), (4, None, zero_row)],
+                     [(1, None, zero_row), (None, 0, zero_row)], [(None, None, [])], [(None, None)],
+                     [(None, None, zero_row, 1)],
+                     [(None, None, (0, 0, 1))], [(None, None, [(0, 0)])], [(None, None, [(0, 0, 0)])],
+                     [(None, None, [(0, 0, -1)])],
                      [(None, None, [(0, True, 1)])], [(None, None, [(False, 0, 1)])], [(None, None, [(0, 0, True)])],
-                     [(None, None, [(0, 0, 1.0)])], [(None, True, zero_row), (2, None, zero_row)], [(None, 0.0, zero_row), (1, None, zero_row)],
-                     [(None, None, [0])], [(None, None, [(0, None, 1)])], [(None, None, [False])], None, 5, "x", {}, (None, None, zero_row),
-                     [None], [()], Odd(), [Odd()], [(None, None, Odd())], [(None, None, [Odd()])], [(Odd(), None, zero_row)],
-                     [(None, None, [(0, 0, Odd())])], [(None, Odd(), zero_row)], [(0, 5, zero_row)], [(-5, None, zero_row)]):
+                     [(None, None, [(0, 0, 1.0)])], [(None, True, zero_row), (2, None, zero_row)],
+                     [(None, 0.0, zero_row), (1, None, zero_row)],
+                     [(None, None, [0])], [(None, None, [(0, None, 1)])], [(None, None, [False])], None, 5, "x", {},
+                     (None, None, zero_row),
+                     [None], [()], Odd(), [Odd()], [(None, None, Odd())], [(None, None, [Odd()])],
+                     [(Odd(), None, zero_row)],
+                     [(None, None, [(0, 0, Odd())])], [(None, Odd(), zero_row)], [(0, 5, zero_row)],
+                     [(-5, None, zero_row)]):
             self.is_refused(rows)
         for value in ODD_VALUES:
             self.is_refused(value)
@@ -105,19 +114,24 @@ class RuleTest(unittest.TestCase):
     def test_entries_that_are_none(self):
         """Entries that are no integer, or below 0, somewhere in their stretch, near or very far."""
         far = 10 ** 40
-        for entries in ([(1, 0, 1)], [(-1, 0, 1)], [(0, -1, 1)], [(0, 1, 2)], [(0, 0, 1), (1, 1, 1)], [None, (0, -2, 2)]):
+        for entries in ([(1, 0, 1)], [(-1, 0, 1)], [(0, -1, 1)], [(0, 1, 2)], [(0, 0, 1), (1, 1, 1)],
+                        [None, (0, -2, 2)]):
             self.is_refused([(None, None, entries)])
-        for entries in ([(1, 0, 2)], [(-1, far, 1)], [(1, -1, 1)], [(0, -1, 1)], [(1, 0, 2), (1, 0, 2)], [(1, 0, 3), (1, 0, 3), (1, 1, 3)]):
+        for entries in ([(1, 0, 2)], [(-1, far, 1)], [(1, -1, 1)], [(0, -1, 1)], [(1, 0, 2), (1, 0, 2)],
+                        [(1, 0, 3), (1, 0, 3), (1, 1, 3)]):
             self.is_refused([(None, -1, [None]), (0, None, entries)])
-        for entries, is_right in (([(-1, far, 1)], True), ([(-1, far - 1, 1)], False), ([(1, 0, 1)], True), ([(2, -1, 1)], False),
-                                  ([(1, 0, 2), (1, 1, 2)], True), ([(1, 0, 2), (1, 0, 2)], False), ([(-1, far, 2), (-1, far - 1, 2)], True),
+        for entries, is_right in (([(-1, far, 1)], True), ([(-1, far - 1, 1)], False), ([(1, 0, 1)], True),
+                                  ([(2, -1, 1)], False),
+                                  ([(1, 0, 2), (1, 1, 2)], True), ([(1, 0, 2), (1, 0, 2)], False),
+                                  ([(-1, far, 2), (-1, far - 1, 2)], True),
                                   ([(-1, far, 2), (-1, far + 1, 2)], True), ([(-1, far, 2), (-1, far - 3, 2)], False)):
             rows = [(None, -1, [None]), (0, far, entries), (far + 1, None, [None])]
             if is_right:
                 self.assertEqual(Rule(rows).at(far), told_at(rows, far))
             else:
                 self.is_refused(rows)
-        for entries, is_right in (([(-1, 0, 1)], True), ([(-1, -1, 1)], True), ([(-1, -2, 1)], False), ([(1, far, 1)], False), ([(0, 0, 7)], True),
+        for entries, is_right in (([(-1, 0, 1)], True), ([(-1, -1, 1)], True), ([(-1, -2, 1)], False),
+                                  ([(1, far, 1)], False), ([(0, 0, 7)], True),
                                   ([(-1, 1, 2), (-1, 1, 2)], False), ([(-1, 0, 2), (-1, 1, 2)], True)):
             rows = [(None, -1, entries), (0, None, [None])]
             if is_right:
@@ -134,7 +148,8 @@ class RuleTest(unittest.TestCase):
         for _ in range(2000):
             first = luck.randint(-6, 6)
             last = first + luck.randint(0, 9)
-            entries = [luck.choice((None, (luck.randint(-3, 3), luck.randint(-6, 18), luck.randint(1, 3)))) for _ in range(luck.randint(1, 3))]
+            entries = [luck.choice((None, (luck.randint(-3, 3), luck.randint(-6, 18), luck.randint(1, 3))))
+                       for _ in range(luck.randint(1, 3))]
             is_right = True
             for n in range(first, last + 1):
                 entry = entries[n % len(entries)]
@@ -174,7 +189,8 @@ class TwoRulesTest(unittest.TestCase):
             points = [*range(-60, 61), 10 ** 30, 10 ** 30 + 7, -10 ** 30, -10 ** 30 - 5]
             self.check(one, other, points, 400)
             found[first_more(one, other) is None] += 1
-            twin = Rule([(first, last, [entry and tuple(3 * number for number in entry) for entry in (*entries, *entries)])
+            twin = Rule([(first, last, [entry and tuple(3 * number for number in entry)
+                                        for entry in (*entries, *entries)])
                          for first, last, entries in one.rows])
             self.assertIsNone(parted_at(one, twin))
             self.assertIsNone(first_more(one, twin))
@@ -205,11 +221,15 @@ class TwoRulesTest(unittest.TestCase):
         self.assertEqual((first_more(line, step), first_more(step, line)), (far + 1, None))
         slow = Rule([(None, -1, [(0, 0, 1)]), (0, None, [(1, 2 * far, 2), (1, 2 * far - 1, 2)])])
         self.assertEqual((first_more(line, slow), first_more(slow, line)), (2 * far + 1, None))
-        self.assertEqual(parted_at(line, Rule([(None, -1, [(0, 0, 1)]), (0, far, [(1, 0, 1)]), (far + 1, None, [(1, 0, 1)])])), None)
-        self.assertEqual((first_more(ENDLESS, line), first_more(line, ENDLESS), first_more(ENDLESS, ENDLESS)), (0, None, None))
+        self.assertEqual(parted_at(line, Rule([(None, -1, [(0, 0, 1)]), (0, far, [(1, 0, 1)]),
+                                               (far + 1, None, [(1, 0, 1)])])), None)
+        self.assertEqual((first_more(ENDLESS, line), first_more(line, ENDLESS), first_more(ENDLESS, ENDLESS)),
+                         (0, None, None))
         some = Rule([(None, far, [None, (0, 4, 1)]), (far + 1, None, [(0, 5, 1)])])
-        self.assertEqual((first_more(ENDLESS, some), first_more(some, ZEROS), first_more(ENDLESS, ZEROS)), (far + 1, 0, 0))
-        self.assertEqual((parted_at(ENDLESS, ENDLESS), parted_at(some, ENDLESS) % 2, most_of(added(line, step))), (None, 1, None))
+        self.assertEqual((first_more(ENDLESS, some), first_more(some, ZEROS), first_more(ENDLESS, ZEROS)),
+                         (far + 1, 0, 0))
+        self.assertEqual((parted_at(ENDLESS, ENDLESS), parted_at(some, ENDLESS) % 2, most_of(added(line, step))),
+                         (None, 1, None))
 
     def test_some_rests_are_more(self):
         one = Rule([(None, -1, [(0, 0, 1)]), (0, None, [(1, 0, 2), (1, -1, 2)])])
@@ -229,7 +249,8 @@ class TwoRulesTest(unittest.TestCase):
                 ([(None, 0, [(-1, 0, 1)]), (1, None, [(0, 3, 1)])], None, "none"),
                 ([(None, 0, [(0, 4, 1)]), (1, far, [(1, 0, 1)]), (far + 1, None, [(0, 3, 1)])], far, "none"),
                 ([(None, 0, [(0, 4, 1)]), (1, far, [(-1, far, 1)]), (far + 1, None, [(0, 3, 1)])], far - 1, "none"),
-                ([(None, 0, [(0, 4, 1)]), (1, far, [(1, 0, 2), (0, 0, 1)]), (far + 1, None, [(0, 3, 1)])], far // 2, "none"),
+                ([(None, 0, [(0, 4, 1)]), (1, far, [(1, 0, 2), (0, 0, 1)]), (far + 1, None, [(0, 3, 1)])], far // 2,
+                 "none"),
                 ([(None, 0, [(0, 4, 1)]), (1, None, [(0, 0, 1), (1, 0, 1)])], None, "straight"),
                 ([(None, 0, [(0, 4, 1)]), (1, None, [None, (1, 0, 1)])], None, "endless"),
                 ([(None, 3, [(0, 1, 1)]), (4, 5, [None, (0, 5, 1), (0, 6, 1)]), (6, None, [(0, 2, 1)])], 6, "none")):
@@ -240,7 +261,8 @@ class TwoRulesTest(unittest.TestCase):
             rule = random_rule(luck)
             points = range(-60, 61)
             values = [rule.at(n) for n in points]
-            far_values = [rule.at(n) for n in (10 ** 30, 10 ** 30 + 1, 10 ** 30 + 2, 10 ** 30 + 3, -10 ** 30, -10 ** 30 - 1, -10 ** 30 - 2, -10 ** 30 - 3)]
+            far_values = [rule.at(n) for n in (10 ** 30, 10 ** 30 + 1, 10 ** 30 + 2, 10 ** 30 + 3, -10 ** 30,
+                                               -10 ** 30 - 1, -10 ** 30 - 2, -10 ** 30 - 3)]
             known = values + far_values
             expected = None if None in known or max(known) > 10 ** 20 else max(known)
             self.assertEqual(most_of(rule), expected)
@@ -249,7 +271,8 @@ class TwoRulesTest(unittest.TestCase):
             self.assertEqual(growth_of(rule), growth)
 
     def test_many_stretches_and_entries(self):
-        many = Rule([(None, 0, [(0, 0, 1)])] + [(k, k, [(0, k, 1)]) for k in range(1, 2000)] + [(2000, None, [(1, 0, 1)])])
+        many = Rule([(None, 0, [(0, 0, 1)])] + [(k, k, [(0, k, 1)])
+                                                for k in range(1, 2000)] + [(2000, None, [(1, 0, 1)])])
         self.assertEqual((many.at(1234), growth_of(many), most_of(many)), (1234, "straight", None))
         line = Rule([(None, -1, [(0, 0, 1)]), (0, None, [(1, 0, 1)])])
         self.assertIsNone(parted_at(many, line))
@@ -280,52 +303,63 @@ class RuleForTest(unittest.TestCase):
     def test_plain(self):
         luck = chance(225)
         for _ in range(150):
-            literals = [random_literal(luck, "nx", ms=(2, 3, 4, 6), factors=(-3, -2, -1, 1, 2, 3), must="x") for _ in range(luck.randint(1, 4))]
+            literals = [random_literal(luck, "nx", ms=(2, 3, 4, 6), factors=(-3, -2, -1, 1, 2, 3), must="x")
+                        for _ in range(luck.randint(1, 4))]
             self.check(random_tree(luck, literals))
 
     def test_finitely_many(self):
         luck = chance(226)
         for _ in range(100):
-            literals = [random_literal(luck, "nx", ("below",), factors=factors, must="x") for factors in ((1, 2, 3), (-1, -2, -3))]
+            literals = [random_literal(luck, "nx", ("below",), factors=factors, must="x")
+                        for factors in ((1, 2, 3), (-1, -2, -3))]
             literals = [literal[1] if literal[0] == "not" else literal for literal in literals]
             literals += [random_literal(luck, "nx", ms=(2, 3, 4, 5), factors=(-2, -1, 1, 2)) for _ in range(2)]
             claim = ("and", *literals[:2], random_tree(luck, literals[2:]))
             rule = self.check(claim)
             self.assertIsNone(parted_at(rule, rule_for(plain_of(claim), "x", "n")))
-            self.assertIsNone(parted_at(rule, rule_for(("not", ("not", ("or", claim, ("and", claim, literals[2])))), "x", "n")))
+            self.assertIsNone(parted_at(rule, rule_for(("not", ("not", ("or", claim, ("and", claim, literals[2])))),
+                                                       "x", "n")))
 
     def test_far_constants(self):
         far = 10 ** 32 - 1
         claim = ("and", below(-far, n=1, x=2), below(0, x=-3, n=-1), ("not", rests(3, 1, n=1, x=1)))
-        points = [*range(-9, 10)] + [at + k for at in (far, -2 * far, 3 * far, -3 * far, far // 2) for k in range(-7, 8)]
+        points = [*range(-9, 10)] + [at + k for at in (far, -2 * far, 3 * far, -3 * far, far // 2)
+                                     for k in range(-7, 8)]
         self.check(claim, points=points)
         self.check(both([from_to("x", -far, far), below(0, n=-3, x=2)]), points=points)
 
     def test_one_level(self):
         luck = chance(227)
         for _ in range(60):
-            literals = [random_literal(luck, "nxy", ms=(2, 3, 4), factors=(-2, -1, 1, 2), must="y") for _ in range(luck.randint(2, 4))]
+            literals = [random_literal(luck, "nxy", ms=(2, 3, 4), factors=(-2, -1, 1, 2), must="y")
+                        for _ in range(luck.randint(2, 4))]
             literals += [("not", below(0, n=-1, x=1)), ("not", below(-9, x=-2, n=-1))]
             inner = random_tree(luck, literals[:-2])
             self.check(("and", *literals[-2:], random_bound(luck, inner, "y", ("some", "all"))))
             self.check(random_bound(luck, random_tree(luck, literals[:3]), "y"))
 
     def test_how_manys(self):
-        claim = ("count", "below", (-2, (("n", 1),)), ((1, "y", both([from_to("y", 0, 9), below(0, x=1, y=-2), below(0, x=-1, n=-1, y=1)])),))
+        claim = ("count", "below", (-2, (("n", 1),)), ((1, "y",
+                                                        both([from_to("y", 0, 9), below(0, x=1, y=-2),
+                                                              below(0, x=-1, n=-1, y=1)])),))
         self.check(claim)
         self.check(both([from_to("x", -5, 30), claim]))
         self.check(both([from_to("x", -5, 30), ("not", claim)]))
 
     def test_payings(self):
         for coins in ((3, 5), (15, 14), (4, 6), (1, 15), (7, 7)):
-            pay = ("and", ("not", below(0, a=1)), ("some", "b", ("and", ("not", below(0, b=1)), zero(0, a=coins[0], b=coins[1], n=-1))))
+            pay = ("and", ("not", below(0, a=1)), ("some", "b",
+                                                   ("and", ("not", below(0, b=1)),
+                                                    zero(0, a=coins[0], b=coins[1], n=-1))))
             rule = rule_for(pay, "a", "n")
             for n in [*range(-5, 80), 10 ** 5]:
                 self.assertEqual(rule.at(n), sum((n - coins[0] * a) % coins[1] == 0 for a in range(n // coins[0] + 1)))
             both_ways = rule.at(10 ** 40 * lcm(*coins))
             self.assertEqual(both_ways, 10 ** 40 + 1)
             self.assertEqual(growth_of(rule), "straight")
-            turned = ("and", ("not", below(0, b=1)), ("some", "a", ("and", ("not", below(0, a=1)), zero(0, a=-coins[0], b=-coins[1], n=1))))
+            turned = ("and", ("not", below(0, b=1)), ("some", "a",
+                                                      ("and", ("not", below(0, a=1)),
+                                                       zero(0, a=-coins[0], b=-coins[1], n=1))))
             # Each way to pay n is told by its a, and by its b as well.
             self.assertIsNone(parted_at(rule, rule_for(turned, "b", "n")))
             self.assertEqual([rule_for(pay, "n", "a").at(a) for a in (-1, 0, 10 ** 30)], [0, None, None])
@@ -355,7 +389,8 @@ class RuleForTest(unittest.TestCase):
     def test_many_for(self):
         luck = chance(229)
         for _ in range(30):
-            claim = random_bound(luck, random_tree(luck, [random_literal(luck, "nxy", must="y") for _ in range(3)]), "y", ("some", "all"))
+            claim = random_bound(luck, random_tree(luck, [random_literal(luck, "nxy", must="y") for _ in range(3)]),
+                                 "y", ("some", "all"))
             claim = both([from_to("x", -9, luck.randint(0, 9)), claim])
             rule = rule_for(claim, "x", "n")
             for n in (-8, 0, 3, 10 ** 30):

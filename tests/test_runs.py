@@ -71,16 +71,21 @@ class TrialTest(unittest.TestCase):
         self.assertEqual(trial(THIRDS, [1], "turn", setting), ((1,), (("a", 7), ("q", 2), ("r", 1), ("w", 4))))
         self.assertEqual(trial(THIRDS, (1,), "end", setting), (None, tuple(setting.items())))
         names = {"i": 1, "j": 1, "n": 5, "v": 3, "w": 8}
-        self.assertEqual(trial(NESTED, (0,), "turn", names), ((0, 0, 1), (("i", 1), ("j", 0), ("n", 5), ("v", 3), ("w", 4))))
-        self.assertEqual(trial(NESTED, (0, 0, 1), "turn", names), ((0, 0, 1), (("i", 1), ("j", 2), ("n", 5), ("v", 1), ("w", 8))))
-        self.assertEqual(trial(NESTED, (0, 0, 1), "end", names), ((0,), (("i", 2), ("j", 1), ("n", 5), ("v", 3), ("w", 8))))
+        self.assertEqual(trial(NESTED, (0,), "turn", names),
+                         ((0, 0, 1), (("i", 1), ("j", 0), ("n", 5), ("v", 3), ("w", 4))))
+        self.assertEqual(trial(NESTED, (0, 0, 1), "turn", names),
+                         ((0, 0, 1), (("i", 1), ("j", 2), ("n", 5), ("v", 1), ("w", 8))))
+        self.assertEqual(trial(NESTED, (0, 0, 1), "end", names),
+                         ((0,), (("i", 2), ("j", 1), ("n", 5), ("v", 3), ("w", 8))))
         self.assertEqual(trial(NESTED, (0,), "end", names), (None, tuple(names.items())))
-        self.assertEqual(trial(NESTED, (), "needs", {"n": 2}), ((0,), (("i", 0), ("j", 0), ("n", 2), ("v", 0), ("w", 0))))
+        self.assertEqual(trial(NESTED, (), "needs", {"n": 2}),
+                         ((0,), (("i", 0), ("j", 0), ("n", 2), ("v", 0), ("w", 0))))
         self.assertEqual(trial(GREATER, (), "needs", {"a": 2, "b": 5, "m": 9}), (None, (("a", 2), ("b", 5), ("m", 5))))
 
     def test_behind_an_if(self):
         loop = ("while", YES, YES, form(0, x=1), "w", [])
-        rows = [("if", YES, [("set", "x", form(1)), loop, ("set", "x", form(2, x=1))], [("set", "y", form(1))]), ("set", "y", form(5, x=1)),
+        rows = [("if", YES, [("set", "x", form(1)), loop, ("set", "x", form(2, x=1))], [("set", "y", form(1))]),
+                ("set", "y", form(5, x=1)),
                 ("while", YES, YES, form(0), "v", [])]
         program = Program([], YES, rows, YES)
         names = {"v": 0, "w": 0, "x": 10, "y": 0}
@@ -104,9 +109,12 @@ class TrialTest(unittest.TestCase):
     def test_wrong(self):
         for value in BAD_SETTINGS:
             self.assertEqual(told(trial, THIRDS, None, None, value), ("BadSetting", "setting"))
-        for place, kind in (((), "falls"), ((1,), "needs"), ((0,), "turn"), ((1, 0), "turn"), ((1, 0, 0), "end"), ((2,), "end"), ((-1,), "turn"),
-                            ((True,), "turn"), ((1.0,), "turn"), (1, "turn"), (None, "needs"), ((), None), ((1,), "Turn"), ((1,), ""),
-                            ("1", "turn"), ((1,), Odd()), (Odd(), "turn"), ((Odd(),), "turn"), ({}, "needs"), ((1,), ["turn"])):
+        for place, kind in (((), "falls"), ((1,), "needs"), ((0,), "turn"), ((1, 0), "turn"), ((1, 0, 0), "end"),
+                            ((2,), "end"), ((-1,), "turn"),
+                            ((True,), "turn"), ((1.0,), "turn"), (1, "turn"), (None, "needs"), ((), None),
+                            ((1,), "Turn"), ((1,), ""),
+                            ("1", "turn"), ((1,), Odd()), (Odd(), "turn"), ((Odd(),), "turn"), ({}, "needs"),
+                            ((1,), ["turn"])):
             self.assertEqual(told(trial, THIRDS, place, kind, {}), ("Misfit", "want"), (place, kind))
         self.assertEqual(told(trial, THIRDS, (), "needs", {"q": 1, "r": 1, "w": 1}), ("NoName", "a"))
         self.assertEqual(told(trial, THIRDS, (1,), "falls", {"a": 1, "w": 1}), ("NoName", "q"))

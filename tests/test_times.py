@@ -40,7 +40,8 @@ class TimesTest(unittest.TestCase):
     def test_one_level(self):
         luck = chance(190)
         for k in range(60):
-            literals = [random_literal(luck, "klnyx", ms=(2, 3, 4, 6, 12), factors=(-3, 3, 2), span=10 ** 32 - 1, must="x")
+            literals = [random_literal(luck, "klnyx", ms=(2, 3, 4, 6, 12), factors=(-3, 3, 2), span=10 ** 32 - 1,
+                                       must="x")
                         for _ in range(8)]
             inner = ("and", *literals) if k % 4 == 0 else random_tree(luck, literals)
             for label in ("some", "all", "endless"):
@@ -49,10 +50,12 @@ class TimesTest(unittest.TestCase):
                 self.timed(function, inner, "x")
 
     def test_one_level_by_hand(self):
-        sides = [below(1, n=1, x=3), below(2, k=1, x=3), below(3, x=3, y=1), below(5, k=1, n=2, x=-3), below(5, l=2, x=-3),
+        sides = [below(1, n=1, x=3), below(2, k=1, x=3), below(3, x=3, y=1), below(5, k=1, n=2, x=-3),
+                 below(5, l=2, x=-3),
                  below(7, n=1, x=-3, y=-2)]
         both_ways = ("and", *sides, rests(12, 1, n=1, x=1), rests(4, 0, l=1, x=1))
-        clauses = ("and", ("or", sides[0], sides[3]), ("or", sides[1], sides[4]), ("or", rests(12, 1, n=1, x=1), sides[5]),
+        clauses = ("and", ("or", sides[0], sides[3]), ("or", sides[1], sides[4]),
+                   ("or", rests(12, 1, n=1, x=1), sides[5]),
                    ("or", rests(4, 0, l=1, x=1), sides[2]))
         for inner in (both_ways, clauses, contrary(clauses), contrary(both_ways)):
             for label in ("some", "all", "endless"):
@@ -62,7 +65,8 @@ class TimesTest(unittest.TestCase):
     def test_one_name(self):
         luck = chance(191)
         for _ in range(30):
-            literals = [random_literal(luck, "x", ms=(2, 3, 4, 6, 12), factors=(-3, 3, 2), span=10 ** 32 - 1) for _ in range(8)]
+            literals = [random_literal(luck, "x", ms=(2, 3, 4, 6, 12), factors=(-3, 3, 2), span=10 ** 32 - 1)
+                        for _ in range(8)]
             claim = random_tree(luck, literals)
             self.timed(judged, claim)
             self.timed(pieces_for, claim, "x")
@@ -71,7 +75,8 @@ class TimesTest(unittest.TestCase):
     def test_divisions_alone(self):
         luck = chance(192)
         for _ in range(30):
-            literals = [random_literal(luck, "x", kinds=("rests",), ms=(4, 12, 20, 35, 84, 105, 420), factors=(-3, 1, 2),
+            literals = [random_literal(luck, "x", kinds=("rests",), ms=(4, 12, 20, 35, 84, 105, 420),
+                                       factors=(-3, 1, 2),
                                        span=420) for _ in range(12)]
             claim = random_tree(luck, literals)
             for function in (struck, struck_endless, rows_for, pieces_for):
@@ -85,7 +90,8 @@ class TimesTest(unittest.TestCase):
         luck = chance(193)
         for _ in range(150):
             two = luck.choice("klnxy")
-            literals = [random_literal(luck, "klnxy", kinds=("below", "below", "zero"), must="klnxy", two=two) for _ in range(3)]
+            literals = [random_literal(luck, "klnxy", kinds=("below", "below", "zero"), must="klnxy", two=two)
+                        for _ in range(3)]
             literals.append(random_literal(luck, "klnxy", kinds=("rests",), ms=(3,), must="klnxy", two=two))
             inner = random_tree(luck, literals)
             self.ask_all(random_bound(luck, inner, "yx", ("some", "all", "endless")))
@@ -142,7 +148,8 @@ class TimesTest(unittest.TestCase):
         luck = chance(195)
         for _ in range(60):
             one = random_tree(luck, [random_literal(luck, "kn", ms=(3,), must="kn", two="k") for _ in range(2)])
-            other = random_tree(luck, [random_literal(luck, "kn", kinds=("below", "zero"), must="kn", two="k") for _ in range(2)])
+            other = random_tree(luck, [random_literal(luck, "kn", kinds=("below", "zero"), must="kn", two="k")
+                                       for _ in range(2)])
             self.timed(alike, one, other)
             if self.timed(follows, one, both([one, other])):
                 self.timed(between, one, both([one, other]))
@@ -157,7 +164,8 @@ class TimesTest(unittest.TestCase):
         self.assertTrue(self.timed(Layout([(None, -1, 1), (0, None, 1)]).same, layout))
         rows = [(1000 * k, 1000 * k + 7 * (k + 3), k + 3) for k in range(100)]
         self.assertFalse(self.timed(self.timed(Layout, rows).same, Layout(rows[1:])))
-        self.assertEqual(self.timed(pieces_for, from_to("x", -10 ** 59, 10 ** 59), "x"), ((("yes",), 1, (2 * 10 ** 59, ())),))
+        self.assertEqual(self.timed(pieces_for, from_to("x", -10 ** 59, 10 ** 59), "x"),
+                         ((("yes",), 1, (2 * 10 ** 59, ())),))
 
     def play_out(self, claim, setting):
         """Best moves of both hands, to the end."""
@@ -170,7 +178,8 @@ class TimesTest(unittest.TestCase):
     def test_duels(self):
         luck = chance(196)
         for k in range(40):
-            literals = [random_literal(luck, "klnyx", ms=(2, 3, 4, 6, 12), factors=(-3, 3, 2), span=10 ** 32 - 1, must="x")
+            literals = [random_literal(luck, "klnyx", ms=(2, 3, 4, 6, 12), factors=(-3, 3, 2), span=10 ** 32 - 1,
+                                       must="x")
                         for _ in range(8)]
             claim = random_bound(luck, random_tree(luck, literals), "x", ("some", "all", "endless"))
             self.play_out(claim, {name: luck.randint(-9, 9) * 10 ** 31 for name in free_in(claim)})
@@ -183,7 +192,8 @@ class TimesTest(unittest.TestCase):
     def test_books(self):
         luck = chance(197)
         for k in range(30):
-            literals = [random_literal(luck, "klnyx", ms=(2, 3, 4, 6, 12), factors=(-3, 3, 2), span=10 ** 32 - 1, must="x")
+            literals = [random_literal(luck, "klnyx", ms=(2, 3, 4, 6, 12), factors=(-3, 3, 2), span=10 ** 32 - 1,
+                                       must="x")
                         for _ in range(8)]
             claim = random_bound(luck, random_tree(luck, literals), "x", ("some", "all"))
             setting = {name: luck.randint(-9, 9) * 10 ** 31 for name in free_in(claim)}
@@ -200,9 +210,11 @@ class TimesTest(unittest.TestCase):
         luck = chance(198)
         for k in range(60):
             factors = luck.choice(((-3, -2, -1, 1, 2, 3), (-5, -4, 3, 5), (-3, 2, 4)))
-            literals = [random_literal(luck, "nx", ms=(3, 4, 5, 12), factors=factors, span=10 ** 32 - 1, must="nx") for _ in range(4)]
+            literals = [random_literal(luck, "nx", ms=(3, 4, 5, 12), factors=factors, span=10 ** 32 - 1, must="nx")
+                        for _ in range(4)]
             self.timed(rule_for, random_tree(luck, literals), "x", "n")
-            literals = [random_literal(luck, "nxy", kinds=("below",), factors=(-3, -2, 1, 3), must="nxy") for _ in range(3)]
+            literals = [random_literal(luck, "nxy", kinds=("below",), factors=(-3, -2, 1, 3), must="nxy")
+                        for _ in range(3)]
             literals.append(random_literal(luck, "nxy", kinds=("rests",), ms=(5, 12), factors=(-3, 1, 2), must="nxy"))
             self.timed(rule_for, ("some", "y", ("and", *literals)), "x", "n")
         for coins in ((15, 14), (13, 11), (15, 4)):
@@ -211,7 +223,8 @@ class TimesTest(unittest.TestCase):
                 rule = self.timed(rule_for, claim, "a", "n")
                 self.timed(first_more, rule, self.timed(added, rule, rule))
                 self.timed(parted_at, rule, self.timed(rule_for, claim, "n", "a"))
-        rows = [(None, 0, [(0, 0, 1)])] + [(k * 10 ** 29, (k + 1) * 10 ** 29 - 1, [(0, k, 1)] * 60) for k in range(1, 900)]
+        rows = [(None, 0, [(0, 0, 1)])] + [(k * 10 ** 29, (k + 1) * 10 ** 29 - 1, [(0, k, 1)] * 60)
+                                           for k in range(1, 900)]
         rows[1] = (1, 2 * 10 ** 29 - 1, [(0, 1, 1)] * 60)
         long = self.timed(Rule, rows + [(9 * 10 ** 31, None, [(60, 0, 60)] * 420)])
         for function in (added, first_more, parted_at):

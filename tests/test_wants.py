@@ -29,7 +29,8 @@ def free_names(claim):
 
 def drawn(luck, names):
     base = luck.choice((0, 0, 0, 10 ** 40))
-    return {name: luck.choice((base + luck.randint(-7, 7), base + luck.randint(-7, 7), random_number(luck))) for name in names}
+    return {name: luck.choice((base + luck.randint(-7, 7), base + luck.randint(-7, 7), random_number(luck)))
+            for name in names}
 
 
 class WantsTest(unittest.TestCase):
@@ -47,11 +48,14 @@ class WantsTest(unittest.TestCase):
                 self.assertEqual(comes_out_well(program, place, kind, setting), is_so, (place, kind, setting))
 
     def test_by_hand(self):
-        self.assertEqual([row[:2] for row in wants_of(THIRDS)], [((), "needs"), ((1,), "falls"), ((1,), "turn"), ((1,), "end")])
-        kinds = [((0,), "falls"), ((0,), "turn"), ((0,), "end"), ((0, 0, 1), "falls"), ((0, 0, 1), "turn"), ((0, 0, 1), "end")]
+        self.assertEqual([row[:2] for row in wants_of(THIRDS)],
+                         [((), "needs"), ((1,), "falls"), ((1,), "turn"), ((1,), "end")])
+        kinds = [((0,), "falls"), ((0,), "turn"), ((0,), "end"), ((0, 0, 1), "falls"), ((0, 0, 1), "turn"),
+                 ((0, 0, 1), "end")]
         self.assertEqual([row[:2] for row in wants_of(NESTED)], [((), "needs"), *kinds])
         self.assertEqual([row[:2] for row in wants_of(Program([], YES, [], YES))], [((), "needs")])
-        settings = [{"a": 3, "q": 0, "r": 3, "w": 3}, {"a": 7, "q": 1, "r": 4, "w": 0}, {"a": -1, "q": 1, "r": -4, "w": 0}]
+        settings = [{"a": 3, "q": 0, "r": 3, "w": 3}, {"a": 7, "q": 1, "r": 4, "w": 0},
+                    {"a": -1, "q": 1, "r": -4, "w": 0}]
         self.check(THIRDS, settings)
         self.check(STUCK, settings)
         self.assertEqual([holds(claim, settings[0]) for _, _, claim in wants_of(STUCK)], [True, True, False, True])
@@ -60,7 +64,8 @@ class WantsTest(unittest.TestCase):
         def loop(was, rows):
             return ("while", YES, YES, form(0), was, rows)
 
-        rows = [("if", YES, [loop("w", [loop("v", [])])], [("if", YES, [], [loop("u", [])])]), loop("s", [("if", YES, [], [loop("t", [])])])]
+        rows = [("if", YES, [loop("w", [loop("v", [])])], [("if", YES, [], [loop("u", [])])]),
+                loop("s", [("if", YES, [], [loop("t", [])])])]
         found = wants_of(Program([], YES, rows, YES))
         self.assertEqual([place for place, kind, _ in found if kind in ("needs", "turn")],
                          [(), (0, 0, 0), (0, 0, 0, 0, 0), (0, 1, 0, 1, 0), (1,), (1, 0, 0, 1, 0)])
@@ -83,9 +88,12 @@ class WantsTest(unittest.TestCase):
         """Whatever program is passed: rows in a row, ifs in a row, numbers of many digits."""
         names = ("a", "b", "c", "d", "e", "f")
         doubled = Program(names, YES, [("set", "a", form(1, a=10 ** 30, b=2)) for _ in range(40)], below(-3, a=1))
-        down = Program(["a"], YES, [("if", not_below(-3, a=1), [("set", "a", form(-3, a=1))], []) for _ in range(20)], below(-3, a=1))
-        parted = Program(names, YES, [("if", below(k, **{names[k % 6]: 1}), [("set", "x", form(k, x=1))], []) for k in range(10)], below(0, x=1))
-        kept = Program(names, YES, [("if", below(k, a=1, b=-1), [("set", "x", form(k))], [("set", "x", form(2, x=1))]) for k in range(13)],
+        down = Program(["a"], YES, [("if", not_below(-3, a=1), [("set", "a", form(-3, a=1))], []) for _ in range(20)],
+                       below(-3, a=1))
+        parted = Program(names, YES, [("if", below(k, **{names[k % 6]: 1}), [("set", "x", form(k, x=1))], [])
+                                      for k in range(10)], below(0, x=1))
+        kept = Program(names, YES, [("if", below(k, a=1, b=-1), [("set", "x", form(k))], [("set", "x", form(2, x=1))])
+                                    for k in range(13)],
                        zero(0, a=1))
         luck = chance(242)
         for program in (doubled, down, parted, kept):
@@ -93,7 +101,8 @@ class WantsTest(unittest.TestCase):
             found = wants_of(program)
             self.assertLess(time.perf_counter() - start, 2)
             for _ in range(10):
-                setting = {name: luck.randint(-9, 9) if luck.random() < 0.8 else luck.randint(-10 ** 30, 10 ** 30) for name in program.names}
+                setting = {name: luck.randint(-9, 9) if luck.random() < 0.8 else luck.randint(-10 ** 30, 10 ** 30)
+                           for name in program.names}
                 done = run(program, [setting[name] for name in program.inputs], 5000)
                 self.assertEqual(holds(found[0][2], setting), plain_so(program.gives, dict(done.names)))
 
@@ -121,10 +130,12 @@ class JudgedTest(unittest.TestCase):
         setting = dict(paper.setting)
         self.assertEqual(paper.setting, tuple(sorted(setting.items())))
         self.assertLessEqual(set(setting), set(program.names))
-        as_told = next(claim for place, kind, claim in wants_as_told(program) if (place, kind) == (paper.place, paper.kind))
+        as_told = next(claim for place, kind, claim in wants_as_told(program)
+                       if (place, kind) == (paper.place, paper.kind))
         self.assertLessEqual(free_names(as_told), set(setting))
         self.assertFalse(plain_so(as_told, setting))
-        self.assertFalse(comes_out_well(program, paper.place, paper.kind, {**{name: 0 for name in program.names}, **setting}))
+        self.assertFalse(comes_out_well(program, paper.place, paper.kind,
+                                        {**{name: 0 for name in program.names}, **setting}))
 
     def test_papers(self):
         stands, breaks = Stands(), Breaks([1], "turn", [["a", 1]])
@@ -201,16 +212,22 @@ class JudgedTest(unittest.TestCase):
         right = {"a": 3, "q": 0, "r": 3, "w": 3}
         shown = [
             (Breaks([1], "turn", right), True), (Breaks((1,), "turn", lists(tuple(right.items()))), True),
-            (Breaks((1,), "turn", {**right, "zz": 10 ** 40}), True), (Breaks((1,), "turn", {"a": 6, "q": 1, "r": 3, "w": 10 ** 40}), True),
+            (Breaks((1,), "turn", {**right, "zz": 10 ** 40}), True),
+            (Breaks((1,), "turn", {"a": 6, "q": 1, "r": 3, "w": 10 ** 40}), True),
             (Breaks((1,), "turn", {"a": 6, "q": 1, "r": 3}), False), (Breaks((1,), "turn", {**right, "a": 4}), False),
-            (Breaks((1,), "end", right), False), (Breaks((1,), "falls", right), False), (Breaks((), "turn", right), False),
-            (Breaks((), "needs", right), False), (Breaks((0,), "turn", right), False), (Breaks((True,), "turn", right), False),
-            (Breaks((1.0,), "turn", right), False), (Breaks(1, "turn", right), False), (Breaks((1,), "Turn", right), False),
+            (Breaks((1,), "end", right), False), (Breaks((1,), "falls", right), False),
+            (Breaks((), "turn", right), False),
+            (Breaks((), "needs", right), False), (Breaks((0,), "turn", right), False),
+            (Breaks((True,), "turn", right), False),
+            (Breaks((1.0,), "turn", right), False), (Breaks(1, "turn", right), False),
+            (Breaks((1,), "Turn", right), False),
             (Breaks((1,), None, right), False), (Breaks((1,), "turn", None), False), (Breaks((1,), "turn", ()), False),
             (Breaks((1,), "turn", {**right, "a": True}), False), (Breaks((1,), "turn", {**right, "A": 1}), False),
             (Breaks((1,), "turn", [*right.items(), ("a", 3)]), False), (Breaks(Odd(), "turn", right), False),
-            (Breaks((1,), Odd(), right), False), (Breaks((1,), "turn", Odd()), False), (Breaks((1,), "turn", [Odd()]), False),
-            (Stands(), False), (Denial("breaks", (1,), "turn", tuple(right.items())), False), (None, False), (True, False),
+            (Breaks((1,), Odd(), right), False), (Breaks((1,), "turn", Odd()), False),
+            (Breaks((1,), "turn", [Odd()]), False),
+            (Stands(), False), (Denial("breaks", (1,), "turn", tuple(right.items())), False), (None, False),
+            (True, False),
         ]
         as_told = dict((row[:2], row[2]) for row in wants_as_told(STUCK))[(1,), "turn"]
         for paper, is_right in shown:
