@@ -89,8 +89,10 @@ def put_side(claim, name, row):
     found = []
     for mark in marks:
         outer = is_outer(mark, marks, side)
+        if outer == NO:
+            continue
         d, form = mark
-        for by in range(1, d * m + 1) if outer != NO else []:
+        for by in range(1, d * m + 1):
             # The number is form / d less by / d: the nearest one that leaves the rest.
             near = (form[0] - sign * by, form[1])
             leaves = slim(("rests", d * m, (near[0] - d * rest, near[1]))) if d * m > 1 else YES

@@ -114,7 +114,7 @@ def by_least_period(groups, period):
             pattern[rest] = at
     for least in divisors_of(period):
         if pattern[least:] == pattern[:period - least]:
-            return [(claim, [rest for rest in rests if rest < least]) for claim, rests in groups], least
+            return [(claim, [low for low in rests if low < least]) for claim, rests in groups], least
     return groups, period
 
 

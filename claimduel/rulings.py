@@ -13,6 +13,7 @@ from claimduel.shapes import COMPARISONS, NO, YES
 from claimduel.spans import lines_of, many_in
 from claimduel.spreads import inner_of, literals_in
 from claimduel.stretches import entry_by, lessened, merged_rows
+from claimduel.striking import strike_endless
 from claimduel.sums import factor_in
 from claimduel.thinning import DUAL
 
@@ -80,19 +81,24 @@ class Counting:
         self.name = name
         self.by = by
         self.m = period_in(claim, name)
+        self.asked = period_in(claim, by)
+        # By rests of the other name how many more are right a step on, in the stretch that is looked at.
+        self.growths = {}
 
     def at(self, number):
         """How many are right at an integer; None for endlessly many."""
         claim = claim_at(self.claim, self.name, self.by, number)
         return many_in((self.m,) + lines_of(claim, self.m))
 
-    def entry(self, number, other):
-        """The entry that tells how many are right at an integer, and at a greater one."""
-        many, later = self.at(number), self.at(other)
-        if many is None or later is None:
-            return None
-        slope, d = later - many, other - number
-        return entry_by(slope, many * d - slope * number, d)
+    def growth(self, number, step):
+        """By how much more are right at the integer that is a step greater, where not endlessly many are.
+
+        It hangs on what divisions ask of the other name, not on all rests by the step.
+        """
+        key = number % self.asked
+        if key not in self.growths:
+            self.growths[key] = self.at(number + step) - self.at(number)
+        return self.growths[key]
 
     def stretch(self, first, last, step):
         """The stretch from first to last, where all integers of one rest by the step have one form."""
@@ -101,9 +107,13 @@ class Counting:
         start = first
         if first is None:
             start = 0 if last is None else last - 2 * step + 1
+        self.growths = {}
         entries = [None] * step
         for number in range(start, start + step):
-            entries[number % step] = self.entry(number, number + step)
+            many = self.at(number)
+            if many is not None:
+                slope = self.growth(number, step)
+                entries[number % step] = entry_by(slope, many * step - slope * number, step)
         return (first, last, lessened(entries))
 
     def short_stretch(self, first, last):
@@ -116,6 +126,8 @@ class Counting:
 
 def rows_of_rule(claim, name, by):
     """The stretches of a rule: how many numbers are right for the name in a settled claim, by the other name."""
+    if strike_endless(claim, name) == YES:
+        return [(None, None, [None])]
     counting = Counting(claim, name, by)
     cuts, step = cuts_in(claim, name, by), period_by(claim, name, by)
     rows = []
