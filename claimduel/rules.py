@@ -9,7 +9,7 @@ from claimduel.rests import multiple_of
 from claimduel.rulings import rows_of_rule
 from claimduel.shapes import free_names
 from claimduel.stretches import are_stretches, both_rows, entry_by, first_with, last_with
-from claimduel.stretches import lessened, parted_in, starts_in, stretch_at, told_by_entry
+from claimduel.stretches import lessened, parted_numbers, starts_in, stretch_at, tidy_rows, told_by_entry
 
 
 class Rule:
@@ -66,8 +66,8 @@ def added(one, other):
         sums = [None] * (high - low)
         for start in range(low, high):
             sums[start % len(sums)] = sum_of(entries[start % len(entries)], others[start % len(others)])
-        rows.append((first, last, lessened(sums)))
-    return Rule(rows)
+        rows.append((first, last, sums))
+    return Rule(tidy_rows(rows))
 
 
 def most_in(first, last, entries):
@@ -149,8 +149,7 @@ def first_more(one, other):
 def parted_at(one, other):
     need_rule(one, "one")
     need_rule(other, "other")
-    for row in shared_rows(one, other):
-        found = parted_in(*row)
-        if found is not None:
-            return found
+    for first, last, entries, others in shared_rows(one, other):
+        for number in parted_numbers((first, last, entries), others, True):
+            return number
     return None

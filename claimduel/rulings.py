@@ -12,7 +12,7 @@ from claimduel.rests import multiple_of
 from claimduel.shapes import COMPARISONS, NO, YES
 from claimduel.spans import lines_of, many_in
 from claimduel.spreads import inner_of, literals_in
-from claimduel.stretches import entry_by, lessened, merged_rows
+from claimduel.stretches import entry_by, tidy_rows
 from claimduel.striking import strike_endless
 from claimduel.sums import factor_in
 from claimduel.thinning import DUAL
@@ -114,14 +114,14 @@ class Counting:
             if many is not None:
                 slope = self.growth(number, step)
                 entries[number % step] = entry_by(slope, many * step - slope * number, step)
-        return (first, last, lessened(entries))
+        return (first, last, entries)
 
     def short_stretch(self, first, last):
         entries = [None] * (last - first + 1)
         for number in range(first, last + 1):
             many = self.at(number)
             entries[number % len(entries)] = None if many is None else (0, many, 1)
-        return (first, last, lessened(entries))
+        return (first, last, entries)
 
 
 def rows_of_rule(claim, name, by):
@@ -133,4 +133,4 @@ def rows_of_rule(claim, name, by):
     rows = []
     for first, last in zip([None] + cuts, [cut - 1 for cut in cuts] + [None]):
         rows.append(counting.stretch(first, last, step))
-    return merged_rows(rows)
+    return tidy_rows(rows)

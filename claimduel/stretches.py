@@ -143,28 +143,51 @@ def starts_in(first, last, step):
     return first, first + step if last is None else min(first + step, last + 1)
 
 
-def parted_in(first, last, entries, others):
-    """An integer of a stretch at which its entries and other ones tell unlike things; None if there is none."""
+def are_unlike_at(entry, other, number):
+    """Whether two entries tell unlike things at an integer; one that is not for it may tell a fraction there."""
+    if entry is None or other is None:
+        return entry != other
+    return (entry[0] * number + entry[1]) * other[2] != (other[0] * number + other[1]) * entry[2]
+
+
+def unlike_in(first, last, start, further, entry, other):
+    """An integer of a stretch, start or further on, at which two entries tell unlike things; None if there is none.
+
+    By one form each, they tell the same of all that leave the rest of start if they do of both.
+    """
+    if entry == other:
+        return None
+    if are_unlike_at(entry, other, start):
+        return start
+    number = start + further
+    if (first is not None and number < first) or (last is not None and number > last):
+        return None
+    return number if are_unlike_at(entry, other, number) else None
+
+
+def parted_numbers(stretch, others, is_first):
+    """An integer of a stretch, alone in a list, at which other entries tell unlike things; none if there is none.
+
+    The first that is found; or else the outermost one, the least if the stretch has a first integer.
+    """
+    first, last, entries = stretch
     step = multiple_of([len(entries), len(others)])
     low, high = starts_in(first, last, step)
-    # By one form each, they tell the same of all that leave a rest if they do of two of these.
     further = -step if first is None and last is not None else step
+    found = []
     for start in range(low, high):
         entry, other = entries[start % len(entries)], others[start % len(others)]
-        if entry == other:
-            continue
-        if told_by_entry(entry, start) != told_by_entry(other, start):
-            return start
-        is_alone = first is not None and last is not None and start + step > last
-        if not is_alone and told_by_entry(entry, start + further) != told_by_entry(other, start + further):
-            return start + further
-    return None
+        number = unlike_in(first, last, start, further, entry, other)
+        if number is not None:
+            found.append(number)
+            if is_first:
+                return found
+    return [max(found) if further < 0 else min(found)] if found else []
 
 
 def is_told_by(stretch, entries):
     """Whether other entries tell the same in a stretch."""
-    first, last, own = stretch
-    return parted_in(first, last, own, entries) is None
+    return parted_numbers(stretch, entries, True) == []
 
 
 def merged_rows(rows):
@@ -178,3 +201,35 @@ def merged_rows(rows):
         else:
             found.append((first, last, entries))
     return found
+
+
+def drawn_on(rows):
+    """Stretches that tell the same, the first one as long as its entries do."""
+    first, last, entries = rows[0]
+    for at in range(1, len(rows)):
+        for number in parted_numbers(rows[at], entries, False):
+            return [(first, number - 1, entries), (number,) + rows[at][1:]] + rows[at + 1:]
+        last = rows[at][1]
+    return [(first, last, entries)]
+
+
+def turned_rows(rows):
+    """The stretches that tell of each integer what these tell of it with its sign turned."""
+    found = []
+    for first, last, entries in reversed(rows):
+        own = [None] * len(entries)
+        for rest, entry in enumerate(entries):
+            own[-rest % len(own)] = None if entry is None else (-entry[0], entry[1], entry[2])
+        found.append((None if last is None else -last, None if first is None else -first, own))
+    return found
+
+
+def tidy_rows(rows):
+    """Stretches that tell the same: mostly equal ones for what tells the same everywhere.
+
+    The first one is as long as its entries do, then the last one.
+    """
+    rows = drawn_on(merged_rows([(first, last, lessened(entries)) for first, last, entries in rows]))
+    if len(rows) < 3:
+        return rows
+    return rows[:1] + turned_rows(drawn_on(turned_rows(rows[1:])))

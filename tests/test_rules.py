@@ -196,6 +196,19 @@ class TwoRulesTest(unittest.TestCase):
             self.assertIsNone(first_more(one, twin))
         self.assertGreater(min(found.values()), 30)
 
+    def test_sums_in_any_order(self):
+        """Entries that stand for no integer of their stretch may tell fractions: no sum takes them on."""
+        luck = chance(2221)
+        nothing = Rule([(None, 0, [(0, 0, 3)] * 2), (1, None, [(0, 0, 1)])])
+        for _ in range(200):
+            one, other = random_rule(luck), random_rule(luck)
+            sums = added(one, other), added(added(nothing, one), other), added(other, added(one, nothing))
+            for summed in sums:
+                self.assertIsNone(parted_at(summed, sums[0]))
+                for n in range(-50, 50):
+                    left, right = one.at(n), other.at(n)
+                    self.assertEqual(summed.at(n), None if left is None or right is None else left + right)
+
     def test_parted_at_one_integer(self):
         luck = chance(223)
         for _ in range(100):
