@@ -8,7 +8,7 @@ from claimduel.plainly import plain_in
 from claimduel.rests import multiple_of
 from claimduel.rulings import rows_of_rule
 from claimduel.shapes import free_names
-from claimduel.stretches import are_stretches, both_rows, entry_by, first_with, last_with
+from claimduel.stretches import are_stretches, both_rows, first_with, last_with
 from claimduel.stretches import lessened, parted_numbers, starts_in, stretch_at, tidy_rows, told_by_entry
 
 
@@ -52,9 +52,9 @@ def shared_rows(one, other):
 def sum_of(entry, other):
     if entry is None or other is None:
         return None
-    d = multiple_of([entry[2], other[2]])
-    often, more = d // entry[2], d // other[2]
-    return entry_by(entry[0] * often + other[0] * more, entry[1] * often + other[1] * more, d)
+    if entry[2] == other[2]:
+        return (entry[0] + other[0], entry[1] + other[1], entry[2])
+    return (entry[0] * other[2] + other[0] * entry[2], entry[1] * other[2] + other[1] * entry[2], entry[2] * other[2])
 
 
 def added(one, other):

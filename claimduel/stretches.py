@@ -4,17 +4,19 @@ The entry for an integer n is that whose index is the rest of n by how many entr
 for endlessly many, or (slope, constant, d) for (slope n + constant) / d.
 """
 
-from claimduel.checks import is_integer, is_list
-from claimduel.rests import common_of, multiple_of
+from math import gcd
+
+from claimduel.checks import is_integer, is_list, is_within
+from claimduel.rests import multiple_of
 from claimduel.spanclaims import divisors_of
 
 
 def is_entry(value):
     if value is None:
         return True
-    if not is_list(value) or len(value) != 3 or not all([is_integer(number) for number in value]):
+    if not is_list(value) or len(value) != 3:
         return False
-    return value[2] >= 1
+    return is_integer(value[0]) and is_integer(value[1]) and is_within(value[2], 1, None)
 
 
 def is_stretch(value):
@@ -89,8 +91,8 @@ def are_stretches(value):
 
 def entry_by(slope, constant, d):
     """The entry (slope, constant, d), with the least d that does it."""
-    common = common_of([slope, constant, d])
-    return (slope // common, constant // common, d // common)
+    common = gcd(gcd(slope, constant), d) if d > 1 else 1
+    return (slope // common, constant // common, d // common) if common > 1 else (slope, constant, d)
 
 
 def stretch_at(rows, number):
