@@ -9,6 +9,8 @@ from claimduel.thinning import parts_for
 
 # The not of a division is looked at rest by rest up to this m.
 MOST_RESTS = 500
+# Calls within calls shall not go too deep.
+MOST_DEPTH = 80
 
 
 def named(literals):
@@ -58,7 +60,7 @@ def many_cases(part):
 
 
 class Search:
-    """Looks for numbers, case by case, as long as no more cases are looked at than it may."""
+    """Looks for numbers, case by case, as long as no more cases are looked at than it may, nor one within too many."""
 
     def __init__(self, names, most):
         self.names = names
@@ -68,24 +70,24 @@ class Search:
         """Whether it has given up: nothing is told then by what it did not find."""
         return self.left == 0
 
-    def find(self, claim):
+    def find(self, claim, depth):
         """A dict of numbers for the names, at which a settled claim without others is so; None if there is none."""
         if claim == NO or self.is_spent():
             return None
-        self.left -= 1
+        self.left = 0 if depth == MOST_DEPTH else self.left - 1
         parts = parts_for("and", claim)
         found = found_for(parts)
         if found is None:
             return None
         table = {name: found.get(name, 0) for name in self.names}
         wrong = [(many_cases(part), at) for at, part in enumerate(parts) if not is_right(part, table)]
-        return self.find_case(parts, min(wrong)[1]) if wrong else table
+        return self.find_case(parts, min(wrong)[1], depth + 1) if wrong else table
 
-    def find_case(self, parts, at):
+    def find_case(self, parts, at, depth):
         """As find, for the "and" of these parts, by the cases of one of them."""
         rest = parts[:at] + parts[at + 1:]
         for case in cases_of(parts[at]):
-            found = self.find(settle(joint("and", [case] + rest)))
+            found = self.find(settle(joint("and", [case] + rest)), depth)
             if found is not None:
                 return found
         return None

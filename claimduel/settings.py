@@ -18,7 +18,7 @@ def right_setting(claim, names):
     """
     if len(free_names(claim)) > 1:
         search = Search(list(names), MOST_CASES)
-        table = search.find(claim)
+        table = search.find(claim, 0)
         if table is not None or not search.is_spent():
             return None if table is None else tuple(sorted(table.items()))
     return struck_setting(claim, names)

@@ -3,7 +3,10 @@
 import time
 import unittest
 from itertools import product
+from unittest import mock
 
+from claimduel import settings
+from claimduel.finding import Search
 from claimduel.settings import right_setting, struck_setting
 from claimduel.solving import solve
 from claimduel.thinning import settled_whole
@@ -69,6 +72,21 @@ class FindingTest(unittest.TestCase):
         far = 10 ** 31
         self.check(("and", below(-far, x=3, y=-2), below(far, x=-3, y=2), ("not", zero(-far, x=3, y=-2)),
                     rests(4, 1, x=1, y=1)), "xy")
+
+    def test_given_up(self):
+        """Where too many cases would have to be looked at, the names are struck instead."""
+        luck = chance(274)
+        for _ in range(60):
+            claim = settled_whole(random_tree(luck, [random_literal(luck, "xy", factors=(-2, -1, 1, 3)) for _ in range(4)]))
+            search = Search(["x", "y"], 1)
+            found = search.find(claim, 0)
+            whole = right_setting(claim, ("x", "y"))
+            if found is not None or not search.is_spent():
+                self.assertEqual(found is None, whole is None)
+            with mock.patch.object(settings, "MOST_CASES", 1):
+                fewer = right_setting(claim, ("x", "y"))
+            self.assertEqual(fewer is None, whole is None)
+            self.assertTrue(fewer is None or plain_so(claim, dict(fewer)))
 
     def test_solving(self):
         luck = chance(272)
