@@ -1,11 +1,12 @@
 """A setting found at which a claim is so: case by case, as far as a number that was found is not right."""
 
+from claimduel.atoms import contrary_literal
 from claimduel.plain import is_right
 from claimduel.shapes import NO
 from claimduel.solving import fresh_name, solve
 from claimduel.spreads import inner_of, joint, settle
 from claimduel.sums import form_times
-from claimduel.thinning import parts_for
+from claimduel.thinning import DUAL, parts_for
 
 # The not of a division is looked at rest by rest up to this m.
 MOST_RESTS = 500
@@ -90,4 +91,7 @@ class Search:
             found = self.find(settle(joint("and", [case] + rest)), depth)
             if found is not None:
                 return found
+            # What was looked at is not looked at again; the cases of a not have nothing in common.
+            if parts[at][0] == "or" and case[0] not in DUAL:
+                rest = rest + [contrary_literal(case)]
         return None
