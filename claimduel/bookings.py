@@ -3,14 +3,15 @@
 Claims here have no count comparisons and no endless.
 """
 
-from claimduel.atoms import slim
-from claimduel.plainly import form_by, plain_in, turned_unless, with_numbers
+from claimduel.atoms import contrary_literal, slim
+from claimduel.plainly import form_by, with_numbers
 from claimduel.rows import names_in_row, told_by_row
-from claimduel.shapes import NO, YES, free_names, joined, parts_of
-from claimduel.spreads import joint, settle, shorter
-from claimduel.striking import at_point, strike_all
+from claimduel.settings import right_setting
+from claimduel.shapes import YES, free_names, joined, parts_of
+from claimduel.spreads import changed, joint, put_form, settle
+from claimduel.striking import at_point
 from claimduel.sums import form_sum, form_times
-from claimduel.thinning import DUAL
+from claimduel.thinning import DUAL, settled_whole
 
 
 def above_mark(name, mark, by):
@@ -72,66 +73,66 @@ def row_by(row, table):
     return (side, rest, m, tuple(sorted({(d, form_by(form, table)): True for d, form in marks})))
 
 
-def is_outer(mark, marks, side):
-    """A claim that says that the mark is that which counts for a row of this side."""
-    sign = 1 if side == "left" else -1
-    parts = []
-    for d, form in marks:
-        apart = form_sum(form_times(mark[1], sign * d), form_times(form, -sign * mark[0]))
-        parts.append(slim(("below", (apart[0] - 1, apart[1]))))
-    return joint("and", parts)
+def renamed(claim, name, other):
+    """A spread claim with another name in the place of a name."""
+    form = (0, ((other, 1),))
+    return changed(claim, lambda literal: put_form(literal, name, form))
 
 
-def put_side(claim, name, row):
-    """A claim where the name has the number that a row ("left", ..) or ("right", ..) gives, settled."""
-    side, rest, m, marks = row
-    sign = 1 if side == "left" else -1
-    found = []
-    for mark in marks:
-        outer = is_outer(mark, marks, side)
-        if outer == NO:
-            continue
-        d, form = mark
-        for by in range(1, d * m + 1):
-            # The number is form / d less by / d: the nearest one that leaves the rest.
-            near = (form[0] - sign * by, form[1])
-            leaves = slim(("rests", d * m, (near[0] - d * rest, near[1]))) if d * m > 1 else YES
-            if leaves != NO:
-                found.append(settle(joint("and", [outer, leaves, at_point(claim, name, d, near)])))
-    found = joint("or", found)
-    # Of one name the many cases of rests are told much shorter together.
-    return shorter(found if len(free_names(found)) == 1 else settle(found))
+class Losing:
+    """Claims that say that a hand loses by its book, for some numbers that the other hand names.
 
+    The names of these are exchanged for such as stand nowhere else: each may be told for itself.
+    """
 
-def put_row(claim, name, row):
-    """A settled claim where the name has the number that a row gives; it is not so where the row gives none."""
-    if row[0] == "at":
-        return at_point(claim, name, row[1], row[2])
-    if not names_in_row(row):
-        return at_point(claim, name, 1, (told_by_row(row, {}), ()))
-    return put_side(claim, name, row)
+    def __init__(self, table):
+        # The rows by their places.
+        self.table = table
+        self.used = 0
 
+    def fresh(self):
+        """What is no name, nor one that numbers are found by, and was not used."""
+        self.used += 1
+        return f".{self.used}"
 
-def booked(claim, wanted, place, table):
-    """As plain_in, for the claim that stands at a place, with the rows of a dict by places written in."""
-    if not any([other[:len(place)] == place for other in table]):
-        return plain_in(claim, wanted)
-    label = claim[0]
-    if label == "not":
-        return booked(claim[1], not wanted, place + (0,), table)
-    if label in DUAL:
-        parts = []
-        for index, part in enumerate(claim[1:]):
-            parts.append(booked(part, wanted, place + (index,), table))
-        return settle(joint(label if wanted else DUAL[label], parts))
-    _, name, part = claim
-    # All are so exactly if it is not so that some are not.
-    inner = booked(part, label == "some", place + (0,), table)
-    if place in table:
-        found = shorter(settle(joint("or", [put_row(inner, name, row) for row in table[place]])))
-    else:
-        found = strike_all(inner, [name])
-    return turned_unless(wanted == (label == "some"), found)
+    def loss(self, claim, keeps, place):
+        """What says so of the claim that stands at a place, if the hand keeps it, or doubts it."""
+        label = claim[0]
+        if label == "not":
+            return self.loss(claim[1], not keeps, place + (0,))
+        if label in DUAL:
+            parts = []
+            for index, part in enumerate(claim[1:]):
+                parts.append(self.loss(part, keeps, place + (index,)))
+            return settle(joint("and" if (label == "or") == keeps else "or", parts))
+        if label not in ("some", "all"):
+            return contrary_literal(slim(claim)) if keeps else slim(claim)
+        _, name, part = claim
+        if (label == "some") == keeps:
+            return self.named(name, part, keeps, place)
+        return renamed(self.loss(part, keeps, place + (0,)), name, self.fresh())
+
+    def named(self, name, part, keeps, place):
+        """What says so where the hand names a number for the name: that it loses by each row."""
+        found, used = [], self.used
+        inner = self.loss(part, keeps, place + (0,))
+        is_shared = self.used == used
+        for row in self.table[place]:
+            found.append(self.by_row(inner, name, row))
+            if not is_shared:
+                # Behind each number the other hand may name others.
+                inner = self.loss(part, keeps, place + (0,))
+        return settle(joint("and", found))
+
+    def by_row(self, inner, name, row):
+        """What says so if the name has the number of the row, or has none by it; inner says it of the name."""
+        if row[0] == "at":
+            divides = slim(("rests", row[1], row[2])) if row[1] > 1 else YES
+            return settle(joint("or", [contrary_literal(divides), at_point(inner, name, row[1], row[2])]))
+        if not names_in_row(row):
+            return at_point(inner, name, 1, (told_by_row(row, {}), ()))
+        other = self.fresh()
+        return settle(joint("and", [settled_whole(claim_by_row(row, other)), renamed(inner, name, other)]))
 
 
 def wins_all(claim, hand, rows, table):
@@ -141,4 +142,5 @@ def wins_all(claim, hand, rows, table):
     for place, _, bound in naming_places(claim, hand):
         known = {name: table[name] for name in table if name not in bound}
         told[place] = [row_by(row, known) for row in entries[place]]
-    return booked(with_numbers(claim, table), hand == 0, (), told) == YES
+    losing = Losing(told).loss(with_numbers(claim, table), hand == 0, ())
+    return right_setting(losing, free_names(losing)) is None

@@ -107,10 +107,10 @@ def bounds_by(table, name):
 
 
 def cost_of(table, name):
-    """Whether bounds may be too near for a name to go away at once, and how many more bounds there are then."""
+    """How near, about, bounds may be for a name to go away at once, and how many more bounds there are then."""
     lows, highs = bounds_by(table, name)
-    is_near = min(max([d for d, _ in lows], default=1), max([d for d, _ in highs], default=1)) > 1
-    return (is_near, len(lows) * len(highs) - len(lows) - len(highs))
+    near = min(max([d for d, _ in lows], default=1), max([d for d, _ in highs], default=1)) - 1
+    return (near.bit_length(), len(lows) * len(highs) - len(lows) - len(highs))
 
 
 def between(lows, highs, is_dark):
@@ -133,13 +133,13 @@ def number_between(lows, highs, table):
 def solve_bounds(table, fresh):
     """As solve, for a dict of constants by pairs."""
     names = {name: True for pairs in table for name, _ in pairs}
-    (is_near, _), name = min([(cost_of(table, name), name) for name in names])
+    (near, _), name = min([(cost_of(table, name), name) for name in names])
     lows, highs = bounds_by(table, name)
     others = [(table[pairs], pairs) for pairs in table if name not in [other for other, _ in pairs]]
     found = solve(others + between(lows, highs, True), [], fresh)
     if found is not None:
         return {**found, name: number_between(lows, highs, found)}
-    if not is_near or solve(others + between(lows, highs, False), [], fresh) is None:
+    if near == 0 or solve(others + between(lows, highs, False), [], fresh) is None:
         return None
     return solve_near(table, name, fresh)
 

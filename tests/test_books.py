@@ -366,6 +366,23 @@ class ShownTest(unittest.TestCase):
                 expected = any(plain_so(claim[2], {"n": n, "x": number}) for number in numbers if number is not None)
                 self.assertIs(shows_book(claim, {"n": n}, book), expected)
 
+    def test_great_rests_at_two_levels(self):
+        """Nothing counts up to an m or a d that is passed."""
+        m, n = 10 ** 30, (0, (("n", 1),))
+        for high, is_won in ((m, True), (m - 1, False), (m + 7, True)):
+            claim = ("all", "n", ("some", "x", ("and", below(0, n=1, x=-1), below(-high - 1, n=-1, x=1))))
+            row = ("right", m - 3, m, ((1, n), (10 ** 15, (-5, (("n", 10 ** 15),)))))
+            self.assertIs(shows_book(claim, {}, Book(0, [((0,), [row])])), is_won)
+            turned = ("not", ("some", "n", ("all", "x", ("not", claim[2][2]))))
+            self.assertIs(shows_book(turned, {}, Book(0, [((0, 0), [("at", 2 * m, (1, (("n", m),))), row])])), is_won)
+        claim = ("all", "n", ("some", "x", ("and", below(0, n=-1, x=1), ("not", below(m, n=-1, x=1)))))
+        for rest, of, is_won in ((5, m, True), (0, m + 1, False), (0, m - 1, True)):
+            self.assertIs(shows_book(claim, {}, Book(0, [((0,), [("left", rest, of, ((1, n),))])])), is_won)
+        halves = ("all", "n", ("some", "x", zero(0, n=-1, x=m)))
+        self.assertIs(shows_book(halves, {}, Book(0, [((0,), [("at", m, n)])])), False)
+        self.assertIs(shows_book(("all", "n", ("some", "x", ("or", ("not", rests(m, 0, n=1)), zero(0, n=-1, x=m)))), {},
+                                 Book(0, [((0,), [("at", m, n), ("at", 1, (0, ()))])])), True)
+
     def test_rows_with_unlike_rests(self):
         claim = ("all", "n", ("some", "x", ("and", below(0, n=1, x=-1), below(-100, n=-1, x=1))))
         n = (0, (("n", 1),))
