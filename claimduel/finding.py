@@ -60,6 +60,26 @@ def many_cases(part):
     return 2 if part[1][0] == "zero" else part[1][1] - 1
 
 
+def pruned(claim, around):
+    """A spread claim that is alike where literals around it are so: without what cannot be so with them."""
+    if claim[0] not in DUAL:
+        return NO if found_for(around + [claim]) is None else claim
+    if claim[0] == "or":
+        parts = []
+        for part in claim[1:]:
+            parts.append(pruned(part, around))
+        return joint("or", parts)
+    literals = [part for part in claim[1:] if part[0] not in DUAL]
+    around = around + literals
+    if found_for(around) is None:
+        return NO
+    parts = []
+    for part in claim[1:]:
+        if part[0] in DUAL:
+            parts.append(pruned(part, around))
+    return joint("and", literals + parts)
+
+
 class Search:
     """Looks for numbers, case by case, as long as no more cases are looked at than it may, nor one within too many."""
 

@@ -3,14 +3,16 @@
 What they are is made by a maker: claims, or only the forms that stand in them as point [12] tells them.
 """
 
+from claimduel.finding import pruned
 from claimduel.shapes import NO, YES, every_form
 from claimduel.spreads import literals_in, put_form, settle, shorter
 from claimduel.sums import form_put, form_sum
 from claimduel.thinning import DUAL, parts_for, settled_whole, turned
 from claimduel.turns import loops_in
 
-# Claims of more literals are not made less.
+# Claims of more literals are not made less, and claims of fewer are not looked at again and again.
 MOST_LITERALS = 1000
+FEW_LITERALS = 300
 
 
 def flat_joined(label, claims):
@@ -42,6 +44,14 @@ def less(claim):
     return claim if len(literals_in(claim)) > MOST_LITERALS else shorter(settle(claim))
 
 
+def least(claim):
+    """As less, for claims that are twice as long as what they were made of: what cannot be so goes, too."""
+    claim = less(claim)
+    if not FEW_LITERALS < len(literals_in(claim)) <= MOST_LITERALS:
+        return claim
+    return turned(pruned(turned(pruned(claim, [])), []))
+
+
 class WantClaims:
     """Makes claims, spread."""
 
@@ -55,7 +65,7 @@ class WantClaims:
         """Of a test, what is wanted if it is so, and what if it is not."""
         if one == other:
             return one
-        return less(flat_joined("or", [flat_joined("and", [test, one]), flat_joined("and", [turned(test), other])]))
+        return least(flat_joined("or", [flat_joined("and", [test, one]), flat_joined("and", [turned(test), other])]))
 
     def both(self, claims):
         return flat_joined("and", claims)

@@ -6,7 +6,7 @@ from itertools import product
 from unittest import mock
 
 from claimduel import settings
-from claimduel.finding import Search
+from claimduel.finding import Search, pruned
 from claimduel.settings import right_setting, struck_setting
 from claimduel.solving import solve
 from claimduel.thinning import settled_whole
@@ -73,11 +73,28 @@ class FindingTest(unittest.TestCase):
         self.check(("and", below(-far, x=3, y=-2), below(far, x=-3, y=2), ("not", zero(-far, x=3, y=-2)),
                     rests(4, 1, x=1, y=1)), "xy")
 
+    def test_pruned(self):
+        """What is left says the same wherever what stands around it is so."""
+        luck = chance(275)
+        less = 0
+        for _ in range(150):
+            literals = [random_literal(luck, "xyz", factors=(-2, -1, 1, 2)) for _ in range(8)]
+            claim = settled_whole(random_tree(luck, literals[2:]))
+            around = [part for part in map(settled_whole, literals[:2]) if part[0] not in ("yes", "no")]
+            found = pruned(claim, around)
+            less += found != claim
+            for _ in range(60):
+                setting = {name: luck.randint(-9, 9) for name in "xyz"}
+                if all(plain_so(part, setting) for part in around):
+                    self.assertEqual(plain_so(found, setting), plain_so(claim, setting), (claim, around, found))
+        self.assertGreater(less, 20)
+
     def test_given_up(self):
         """Where too many cases would have to be looked at, the names are struck instead."""
         luck = chance(274)
         for _ in range(60):
-            claim = settled_whole(random_tree(luck, [random_literal(luck, "xy", factors=(-2, -1, 1, 3)) for _ in range(4)]))
+            claim = settled_whole(random_tree(luck, [random_literal(luck, "xy", factors=(-2, -1, 1, 3))
+                                                     for _ in range(4)]))
             search = Search(["x", "y"], 1)
             found = search.find(claim, 0)
             whole = right_setting(claim, ("x", "y"))
