@@ -295,6 +295,21 @@ class MovesTest(unittest.TestCase):
             self.assertEqual(told(wins, value), ("BadDuel", "duel"))
             self.assertEqual(told(best, duel=value), ("BadDuel", "duel"))
 
+    def test_a_claim_and_its_contrary(self):
+        """They are won by unlike hands, by the same moves of the other hands."""
+        luck = chance(207)
+        for _ in range(80):
+            literals = [random_literal(luck, "nxy") for _ in range(3)]
+            claim = random_bound(luck, random_tree(luck, literals), luck.choice(("x", "yx")))
+            for n in (-3, 0, 10 ** 30):
+                duel, other = Duel(claim, {"n": n, "x": 1, "y": 2}), Duel(contrary(claim), {"n": n, "x": 1, "y": 2})
+                while duel.kind != "over":
+                    self.assertEqual((wins(duel), duel.turn), (1 - wins(other), 1 - other.turn))
+                    self.assertEqual(best(duel), best(other))
+                    duel.move(best(duel))
+                    other.move(best(other))
+                self.assertEqual((duel.moves, duel.winner, other.kind), (other.moves, 1 - other.winner, "over"))
+
     def test_a_number_put_in(self):
         """A number put in for a name, and a setting that tells it, are won by the same hand."""
         luck = chance(206)
